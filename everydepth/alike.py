@@ -13,8 +13,7 @@ def alike(one, other):
 def parting(one, other):
     """None if two pictures are alike, else (depth, row, column) of the least depth and first cell that are not."""
     check_two(one, other)
-    walk = Walk([one, other])
-    return first_cell(walk, unlike_nodes(walk, one, other))
+    return first_unlike(one, other)
 
 
 def alike_at(one, other, depth):
@@ -53,6 +52,12 @@ def pairs_hold(one, other, value):
         return False
     listed = {pair: True for pair in value}
     return (one[1], other[1]) in listed and pairs_closed(listed, one, other)
+
+
+def first_unlike(one, other):
+    """None if two pictures of one base are alike, else (depth, row, column) of the least depth and first cell not."""
+    walk = Walk([one, other])
+    return first_cell(walk, unlike_nodes(walk, one, other))
 
 
 def unlike_nodes(walk, one, other):

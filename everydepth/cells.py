@@ -10,7 +10,7 @@ def letter_at(picture, depth, row, column):
     """The letter of a cell."""
     check_picture(picture)
     check_depth(depth)
-    check_place(picture, depth, row, column)
+    check_place(picture[0][0], depth, row, column)
     return found_letter(picture, depth, row, column)
 
 
@@ -41,8 +41,8 @@ def cut(picture, depth, row, column, rows, columns):
     """The list of the rows, lists of shades, of the rectangle with this first cell."""
     check_picture(picture)
     check_depth(depth)
-    check_place(picture, depth, row, column)
-    side = side_of(picture, depth)
+    check_place(picture[0][0], depth, row, column)
+    side = side_of(picture[0][0], depth)
     check_lines(rows, row, side)
     check_lines(columns, column, side)
     shades = picture[0][1]
@@ -53,9 +53,9 @@ def cut(picture, depth, row, column, rows, columns):
     return found
 
 
-def check_place(picture, depth, row, column):
+def check_place(base, depth, row, column):
     """Raises InvalidPlace for a row and a column that are no cell of the sheet."""
-    side = side_of(picture, depth)
+    side = side_of(base, depth)
     if not (0 <= row < side and 0 <= column < side):
         raise InvalidPlace((row, column))
 
@@ -66,11 +66,11 @@ def check_lines(count, first, side):
         raise InvalidNumber(count)
 
 
-def side_of(picture, depth):
+def side_of(base, depth):
     """The number of the rows, and of the columns, of a sheet."""
     side = 1
     for _ in range(depth):
-        side = side * picture[0][0]
+        side = side * base
     return side
 
 

@@ -16,6 +16,11 @@ def classes(book):
 def least(picture):
     """The alike picture with the fewest letters, named by their first ways."""
     check_picture(picture)
+    return least_picture(picture)
+
+
+def least_picture(picture):
+    """The least picture that is alike what is known to be a picture, but for the number of its letters."""
     walk = Walk([picture])
     return least_of(walk, shades_of(walk, picture))
 

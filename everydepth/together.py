@@ -12,6 +12,11 @@ def put(one, other, table):
     """The least picture whose cell has the shade table[s][t] where the one's has s and the other's t."""
     check_two(one, other)
     check_table(table)
+    return put_picture(one, other, table)
+
+
+def put_picture(one, other, table):
+    """What put returns of arguments that are checked."""
     walk = Walk([one, other])
     return small_least_of(walk, [table[s][t] for s, t in shade_pairs(walk, one, other)])
 
@@ -20,6 +25,11 @@ def mapped(picture, shades):
     """The least picture whose cell has shades[s] where the picture's has s."""
     check_picture(picture)
     check_map(shades)
+    return mapped_picture(picture, shades)
+
+
+def mapped_picture(picture, shades):
+    """What mapped returns of arguments that are checked."""
     walk = Walk([picture])
     return least_of(walk, [shades[s] for s in shades_of(walk, picture)])
 
@@ -78,6 +88,12 @@ def small_least_of(walk, marks):
     return folded(walk, marks, kinds)
 
 
+def small_least(picture):
+    """The least picture that is alike one, perhaps one of more letters than a book may have."""
+    walk = Walk([picture])
+    return small_least_of(walk, shades_of(walk, picture))
+
+
 def shade_pairs(walk, one, other):
     """For each node of two pictures the tuple of both shades."""
     return [(one[0][1][a], other[0][1][b]) for a, b in walk.nodes]
@@ -85,7 +101,7 @@ def shade_pairs(walk, one, other):
 
 def check_table(table):
     """Raises InvalidTable for any object that is no table."""
-    if not is_tuple_of(table, SHADES) or not all([is_map(row) for row in table]):
+    if not is_table(table):
         raise InvalidTable(anew(table))
 
 
@@ -93,6 +109,11 @@ def check_map(shades):
     """Raises InvalidTable for any object that is no map."""
     if not is_map(shades):
         raise InvalidTable(anew(shades))
+
+
+def is_table(value):
+    """Whether any object is a tuple of four tuples of four shades."""
+    return is_tuple_of(value, SHADES) and all([is_map(row) for row in value])
 
 
 def is_map(value):

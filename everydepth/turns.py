@@ -13,6 +13,11 @@ def turned(picture, turn):
     check_picture(picture)
     if not 0 <= turn < TURNS:
         raise InvalidNumber(turn)
+    return turned_picture(picture, turn)
+
+
+def turned_picture(picture, turn):
+    """What turned returns of arguments that are checked."""
     base, shades, blocks = picture[0]
     return ((base, shades, tuple([turned_rows(block, turn) for block in blocks])), picture[1])
 
@@ -25,6 +30,15 @@ def turned_rows(rows, turn):
         upwards = rows[::-1]
         rows = tuple(zip(*upwards))
     return rows
+
+
+def place_ahead(turn, side, row, column):
+    """The tuple (row, column) of the place that a turn brings to this one."""
+    for _ in range(turn % QUARTERS):
+        row, column = side - 1 - column, row
+    if turn >= QUARTERS:
+        column = side - 1 - column
+    return (row, column)
 
 
 def symmetries(picture):

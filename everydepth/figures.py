@@ -1,0 +1,135 @@
+"""Places told figure by figure: the first and the last place at which a machine ends in one of its goals.
+
+The machine reads the figures of a row and of a column at once, from the highest on, and may go on
+to several nodes. Sets of nodes are integers, with a bit for each node.
+"""
+
+
+class Level:
+    """Where a machine goes by one figure of the row and of the column.
+
+    For each node that is filled in it has the sets of nodes at the places of its block. What was
+    asked once is kept, as the upper figures of great depths ask the same again and again.
+    """
+
+    def __init__(self, base):
+        self.base = base
+        self._cells = {}
+        self._rows = {}
+        self._spans = {}
+        self._known = {}
+
+    def fill(self, node, cells):
+        """Tells the sets of nodes to which it goes from a node by the places of its block, in reading order."""
+        rows = [united(cells[first:first + self.base]) for first in range(0, len(cells), self.base)]
+        self._cells[node] = cells
+        self._rows[node] = rows
+        self._spans[node] = united(rows)
+        self._known = {}
+
+    def has(self, node):
+        """Whether a node is filled in."""
+        return node in self._spans
+
+    def behind(self, nodes):
+        """The nodes to which it goes from some nodes by any figures."""
+        if nodes not in self._known:
+            self._known[nodes] = united([self._spans[node] for node in nodes_in(nodes)])
+        return self._known[nodes]
+
+    def ahead(self, nodes, goals):
+        """Those of some nodes from which it goes to one of the goals."""
+        key = (nodes, goals)
+        if key not in self._known:
+            self._known[key] = united([1 << node for node in nodes_in(nodes) if self._spans[node] & goals])
+        return self._known[key]
+
+    def ahead_by_row(self, nodes, goals, i):
+        """Those of some nodes from which it goes to one of the goals by a figure of the row."""
+        key = (nodes, goals, i)
+        if key not in self._known:
+            self._known[key] = united([1 << node for node in nodes_in(nodes) if self._rows[node][i] & goals])
+        return self._known[key]
+
+    def end_row(self, nodes, goals, last):
+        """The first figure of the row, or the last one, by which it goes to a goal, and the goals to which it does."""
+        key = ("row", nodes, goals, last)
+        if key not in self._known:
+            ways = [self._rows[node] for node in nodes_in(nodes)]
+            self._known[key] = end_figure(ways, range_of(0, self.base, last), goals)
+        return self._known[key]
+
+    def end_place(self, nodes, goals, i, last):
+        """The like for the figure of the column, where that of the row is told."""
+        key = (nodes, goals, i, last)
+        if key not in self._known:
+            ways = [self._cells[node] for node in nodes_in(nodes)]
+            place, found = end_figure(ways, range_of(i * self.base, self.base, last), goals)
+            self._known[key] = (place - i * self.base, found)
+        return self._known[key]
+
+
+def range_of(first, many, last):
+    """The list of so many integers from the first on, backwards if the last one is asked for."""
+    found = list(range(first, first + many))
+    if last:
+        found.reverse()
+    return found
+
+
+def end_figure(ways, figures, goals):
+    """The first of the figures by which one of the ways, lists of sets, has goals, and these; some have."""
+    for figure in figures:
+        found = united([way[figure] for way in ways]) & goals
+        if found > 0:
+            return figure, found
+    return None
+
+
+def nodes_in(mask):
+    """The list of the nodes in a set."""
+    found = []
+    while mask > 0:
+        lowest = mask & -mask
+        found.append(lowest.bit_length() - 1)
+        mask = mask ^ lowest
+    return found
+
+
+def united(masks):
+    """The set of the nodes that are in one of some sets."""
+    found = 0
+    for mask in masks:
+        found = found | mask
+    return found
+
+
+def reached(levels, starts):
+    """The list of the sets of nodes that come behind so many levels, from 0 on."""
+    layers = [starts]
+    for level in levels:
+        layers.append(level.behind(layers[-1]))
+    return layers
+
+
+def end_place(levels, starts, goals, last):
+    """The tuple (row, column) of the first place in reading order that ends in a goal, or of the last; else None."""
+    layers = reached(levels, starts)
+    layers[-1] = layers[-1] & goals
+    for at in reversed(range(len(levels))):
+        layers[at] = levels[at].ahead(layers[at], layers[at + 1])
+    if layers[0] == 0:
+        return None
+    row = 0
+    rows = []
+    for at, level in enumerate(levels):
+        i, layers[at + 1] = level.end_row(layers[at], layers[at + 1], last)
+        rows.append(i)
+        row = row * level.base + i
+    for at in reversed(range(len(levels))):
+        layers[at] = levels[at].ahead_by_row(layers[at], layers[at + 1], rows[at])
+    column = 0
+    for at, level in enumerate(levels):
+        j, layers[at + 1] = level.end_place(layers[at], layers[at + 1], rows[at], last)
+        column = column * level.base + j
+    return (row, column)
