@@ -30,6 +30,11 @@ def sheet(picture, depth):
     """The list of the rows of a sheet, lists of shades."""
     check_picture(picture)
     check_depth(depth)
+    return shade_rows(picture, depth)
+
+
+def shade_rows(picture, depth):
+    """What sheet returns of arguments that are checked."""
     _, shades, blocks = picture[0]
     rows = [[picture[1]]]
     for _ in range(depth):

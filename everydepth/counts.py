@@ -105,7 +105,7 @@ def dependent(pictures, shade):
         raise InvalidNumber(len(pictures))
     check_shade(shade)
     sums, starts = shade_sums(pictures, shade)
-    return relations_between(sums.rows(starts), len(pictures))
+    return relations_between(sums.single_numbers(starts), len(pictures))
 
 
 def letters_met(picture):

@@ -8,12 +8,13 @@ to several nodes. Sets of nodes are integers, with a bit for each node.
 class Level:
     """Where a machine goes by one figure of the row and of the column.
 
-    For each node that is filled in it has the sets of nodes at the places of its block. What was
-    asked once is kept, as the upper figures of great depths ask the same again and again.
+    For each of the nodes that are filled in, of which filled is the set, it has the sets of nodes at
+    the places of its block. What was asked once is kept: great depths ask the same again and again.
     """
 
     def __init__(self, base):
         self.base = base
+        self.filled = 0
         self._cells = {}
         self._rows = {}
         self._spans = {}
@@ -26,10 +27,7 @@ class Level:
         self._rows[node] = rows
         self._spans[node] = united(rows)
         self._known = {}
-
-    def has(self, node):
-        """Whether a node is filled in."""
-        return node in self._spans
+        self.filled = self.filled | (1 << node)
 
     def behind(self, nodes):
         """The nodes to which it goes from some nodes by any figures."""
@@ -112,24 +110,47 @@ def reached(levels, starts):
     return layers
 
 
-def end_place(levels, starts, goals, last):
-    """The tuple (row, column) of the first place in reading order that ends in a goal, or of the last; else None."""
+def leading(levels, starts, goals):
+    """The like, without the nodes that do not lead to a goal behind the last level."""
     layers = reached(levels, starts)
     layers[-1] = layers[-1] & goals
     for at in reversed(range(len(levels))):
         layers[at] = levels[at].ahead(layers[at], layers[at + 1])
+    return layers
+
+
+def end_row(levels, starts, goals, last):
+    """The first row that has a goal, or the last one; None if there is none."""
+    layers = leading(levels, starts, goals)
     if layers[0] == 0:
         return None
     row = 0
-    rows = []
-    for at, level in enumerate(levels):
-        i, layers[at + 1] = level.end_row(layers[at], layers[at + 1], last)
-        rows.append(i)
-        row = row * level.base + i
+    for i in row_figures(levels, layers, last):
+        row = row * levels[0].base + i
+    return row
+
+
+def end_place(levels, starts, goals, last):
+    """The tuple (row, column) of the first place in reading order that ends in a goal, or of the last; else None."""
+    layers = leading(levels, starts, goals)
+    if layers[0] == 0:
+        return None
+    figures = row_figures(levels, layers, last)
     for at in reversed(range(len(levels))):
-        layers[at] = levels[at].ahead_by_row(layers[at], layers[at + 1], rows[at])
+        layers[at] = levels[at].ahead_by_row(layers[at], layers[at + 1], figures[at])
+    row = 0
     column = 0
     for at, level in enumerate(levels):
-        j, layers[at + 1] = level.end_place(layers[at], layers[at + 1], rows[at], last)
+        j, layers[at + 1] = level.end_place(layers[at], layers[at + 1], figures[at], last)
+        row = row * level.base + figures[at]
         column = column * level.base + j
     return (row, column)
+
+
+def row_figures(levels, layers, last):
+    """The figures of the first row with a goal, or of the last; of each layer the nodes in this row are left."""
+    figures = []
+    for at, level in enumerate(levels):
+        i, layers[at + 1] = level.end_row(layers[at], layers[at + 1], last)
+        figures.append(i)
+    return figures

@@ -79,6 +79,14 @@ def check_shade(shade):
         raise InvalidShade(anew(shade))
 
 
+def check_shades(shades):
+    """Raises InvalidShade for any object that is no non-empty ascending tuple of shades."""
+    if not isinstance(shades, tuple) or not shades or not all([is_shade(shade) for shade in shades]):
+        raise InvalidShade(anew(shades))
+    if list(shades) != sorted(set(shades)):
+        raise InvalidShade(anew(shades))
+
+
 def check_letter(picture, letter):
     """Raises InvalidLetter for an integer that is no letter of the book of a picture."""
     if not 0 <= letter < len(picture[0][1]):

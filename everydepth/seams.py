@@ -1,8 +1,7 @@
 """What stands beside what: neighbours, rims and borders, and pieces less holes."""
 
-from everydepth.errors import InvalidShade, anew
 from everydepth.patches import OUTSIDE, Patches
-from everydepth.pictures import check_depth, check_picture, check_shade, is_shade
+from everydepth.pictures import check_depth, check_picture, check_shade, check_shades
 from everydepth.sums import Sums
 
 
@@ -105,11 +104,3 @@ def check_neighbours(picture, depth, one, other):
     check_depth(depth)
     check_shade(one)
     check_shade(other)
-
-
-def check_shades(shades):
-    """Raises InvalidShade for any object that is no non-empty ascending tuple of shades."""
-    if not isinstance(shades, tuple) or not shades or not all([is_shade(shade) for shade in shades]):
-        raise InvalidShade(anew(shades))
-    if list(shades) != sorted(set(shades)):
-        raise InvalidShade(anew(shades))

@@ -42,7 +42,7 @@ class Sums:
             numbers = deeper(self.flows, numbers)
         return found
 
-    def rows(self, starts):
+    def single_numbers(self, starts):
         """For each depth that tells of a relation the list of the numbers of the starts, each alone."""
         # A sum of multiples of the starts has as many entries as there are kinds, so as many depths tell.
         found = []
@@ -99,13 +99,15 @@ def numbered(marks):
 
 def flows_of(children):
     """For each node the list of the tuples (child, times)."""
-    flows = []
-    for row in children:
-        times = {}
-        for child in row:
-            times[child] = times.get(child, 0) + 1
-        flows.append(list(times.items()))
-    return flows
+    return [flow_of(row) for row in children]
+
+
+def flow_of(row):
+    """The list of the tuples (child, times) of some children."""
+    times = {}
+    for child in row:
+        times[child] = times.get(child, 0) + 1
+    return list(times.items())
 
 
 def reversed_flows(flows):
@@ -139,6 +141,14 @@ def numbers_at(flows, weights, depth):
     for _ in range(depth):
         numbers = deeper(flows, numbers)
     return numbers
+
+
+def tables_of(flows, weights, depth):
+    """The list of the lists of the numbers of all nodes at the depths up to this one."""
+    tables = [weights]
+    for _ in range(depth):
+        tables.append(deeper(flows, tables[-1]))
+    return tables
 
 
 def matrix_of(flows):

@@ -1,0 +1,149 @@
+"""Two sheets of one depth, one of them moved: both letters at a place, told figure by figure.
+
+The figures of a row, and those of the row over which it lies, differ by the figures of the move
+and by carries: a figure, one of the move and a carry from the lower figures together are a figure
+of the other row, and the base more if a carry goes to the higher figures.
+"""
+
+from everydepth.figures import Level, nodes_in
+from everydepth.sums import flow_of
+
+
+class Overlay:
+    """The letters of two pictures that lie over one another, with the carries that are to come from their figures.
+
+    A node is the number of a letter of the one, one of the other, a carry of the row and one of the
+    column, these of two each. A key tells of one figure, for the row and for the column, that of
+    the move and whether a carry may come from the lower ones. size is the number of all nodes.
+    """
+
+    def __init__(self, one, other):
+        self.base = one[0][0]
+        self._shades = (one[0][1], other[0][1])
+        self._many = len(other[0][1])
+        self.size = 4 * self._many * len(one[0][1])
+        self._start = (one[1] * self._many + other[1]) * 4
+        self._blocks = blocks_times(one[0][2], 4 * self._many)
+        self._other_blocks = blocks_times(other[0][2], 4)
+        self._levels = {}
+        self._ways = {}
+
+    def start(self, row_carry, column_carry):
+        """The node of the letters of both pictures with two carries."""
+        return self._start + 2 * row_carry + column_carry
+
+    def both_shades(self, node):
+        """The tuple of the shades of both letters of a node."""
+        letter, other_letter = divmod(node // 4, self._many)
+        return (self._shades[0][letter], self._shades[1][other_letter])
+
+    def is_end(self, node):
+        """Whether a node may stand behind the lowest figures: no carry comes from there."""
+        return node % 4 == 0
+
+    def unlike(self, nodes):
+        """The set of those of some nodes that may stand behind the lowest figures and have unlike shades."""
+        found = 0
+        for node in nodes_in(nodes):
+            one, other = self.both_shades(node)
+            if self.is_end(node) and one != other:
+                found = found | (1 << node)
+        return found
+
+    def level(self, key, nodes):
+        """The level of a key, filled in for a set of nodes."""
+        if key not in self._levels:
+            self._levels[key] = Level(self.base)
+        level = self._levels[key]
+        for node in nodes_in(nodes & ~level.filled):
+            cells = [0] * (self.base * self.base)
+            for first, row, other_row, carry in self._rows(key, node):
+                for j, other_j, more in self._ways_of(key[1], node % 2):
+                    cells[first + j] = cells[first + j] | (1 << (row[j] + other_row[other_j] + carry + more))
+            level.fill(node, cells)
+        return level
+
+    def levels(self, keys, nodes):
+        """The levels of some keys, one behind the other, filled in for all that comes behind a set of nodes."""
+        found = []
+        for key in keys:
+            found.append(self.level(key, nodes))
+            nodes = found[-1].behind(nodes)
+        return found
+
+    def numbers(self, keys, starts):
+        """For each node how often it comes behind the figures of some keys."""
+        numbers = [0] * self.size
+        for start in starts:
+            numbers[start] = 1
+        flows = {key: {} for key in keys}
+        for key in keys:
+            found = [0] * len(numbers)
+            for node, times in enumerate(numbers):
+                if times > 0:
+                    if node not in flows[key]:
+                        flows[key][node] = once_and_often(flow_of(self._children(key, node)))
+                    once, often = flows[key][node]
+                    for child in once:
+                        found[child] += times
+                    for child, many in often:
+                        found[child] += times * many
+            numbers = found
+        return numbers
+
+    def _children(self, key, node):
+        columns = self._ways_of(key[1], node % 2)
+        found = []
+        for _, row, other_row, carry in self._rows(key, node):
+            found.extend([row[j] + other_row[other_j] + carry + more for j, other_j, more in columns])
+        return found
+
+    def _rows(self, key, node):
+        """The list of the tuples of the first place of a row, both rows that lie over one another, and the carry."""
+        letter, other_letter = divmod(node // 4, self._many)
+        block = self._blocks[letter]
+        other_block = self._other_blocks[other_letter]
+        ways = self._ways_of(key[0], node // 2 % 2)
+        return [(i * self.base, block[i], other_block[other_i], 2 * carry) for i, other_i, carry in ways]
+
+    def _ways_of(self, figure, carry):
+        if (figure, carry) not in self._ways:
+            self._ways[(figure, carry)] = ways_over(self.base, figure, carry)
+        return self._ways[(figure, carry)]
+
+
+def once_and_often(flow):
+    """Of the tuples (child, times) of a flow the list of the children that come once, and the list of the others."""
+    return [child for child, times in flow if times == 1], [(child, times) for child, times in flow if times > 1]
+
+
+def blocks_times(blocks, many):
+    """The blocks with each letter so many times."""
+    return [[[letter * many for letter in row] for row in block] for block in blocks]
+
+
+def ways_over(base, figure, carry):
+    """The list of the tuples (figure, other figure, carry from below) by which a carry goes to the higher figures."""
+    moved, may_carry = figure
+    found = []
+    for below in (0, 1) if may_carry else (0,):
+        for own in range(base):
+            other = own + moved + below - carry * base
+            if 0 <= other < base:
+                found.append((own, other, below))
+    return found
+
+
+def move_keys(base, depth, move):
+    """The keys of all figures, from the highest on, of a move, or of what is left of it modulo the side."""
+    axes = []
+    for moved in move:
+        axis = []
+        carries = False
+        for _ in range(depth):
+            axis.append((moved % base, carries))
+            carries = carries or moved % base > 0
+            moved = moved // base
+        axis.reverse()
+        axes.append(axis)
+    return list(zip(axes[0], axes[1]))

@@ -1,0 +1,156 @@
+"""Rows and columns all of whose cells have one of some shades."""
+
+from everydepth.cells import figures_of, side_of
+from everydepth.errors import InvalidNumber, InvalidWord, anew
+from everydepth.linesets import LineSets, letters_on, letters_without, line_masks
+from everydepth.pictures import check_depth, check_picture, check_shades, check_two
+from everydepth.walks import last_reached, merged
+
+WORDS = ("row", "column")
+
+
+def is_within(picture, depth, along, line, shades):
+    """Whether each cell of a line has one of some shades."""
+    check_picture(picture)
+    check_depth(depth)
+    check_along(along)
+    check_line(picture, depth, line)
+    check_shades(shades)
+    masks = line_masks(picture[0], along)
+    letters = 1 << picture[1]
+    for figure in figures_of(picture[0][0], depth, line):
+        letters = letters_on(masks, letters, figure)
+    return letters & letters_without(picture[0][1], shades) == 0
+
+
+def lines_within(picture, depth, along, shades):
+    """How many rows or columns have no cell but with one of some shades."""
+    check_lines_of(picture, depth, along, shades)
+    return LineSets([picture], along, shades).sums().number([0], depth)
+
+
+def nth_within(picture, depth, along, shades, number):
+    """The line with a number among those within some shades, None if there are not so many."""
+    check_lines_of(picture, depth, along, shades)
+    if number < 0:
+        raise InvalidNumber(number)
+    sets = LineSets([picture], along, shades)
+    tables = sets.tables(depth)
+    if number >= tables[depth][0]:
+        return None
+    line = 0
+    node = 0
+    for numbers in tables[-2::-1]:
+        figure = 0
+        while number >= numbers[sets.steps[node][figure]]:
+            number -= numbers[sets.steps[node][figure]]
+            figure += 1
+        line = line * sets.base + figure
+        node = sets.steps[node][figure]
+    return line
+
+
+def number_within(picture, depth, along, shades, line):
+    """How many of the lines within some shades are ahead of a line."""
+    check_lines_of(picture, depth, along, shades)
+    check_line(picture, depth, line)
+    sets = LineSets([picture], along, shades)
+    tables = sets.tables(depth)
+    number = 0
+    node = 0
+    for figure, numbers in zip(figures_of(sets.base, depth, line), tables[-2::-1]):
+        number += sum([numbers[inner] for inner in sets.steps[node][:figure]])
+        node = sets.steps[node][figure]
+    return number
+
+
+def first_depth_within(picture, along, shades):
+    """The least depth at which there is a line within some shades, None if there is none at ANY depth."""
+    check_all_depths(picture, along, shades)
+    sets = LineSets([picture], along, shades)
+    return min([sets.depths[node] for node in sets.goals()], default=None)
+
+
+def last_depth_within(picture, along, shades):
+    """The greatest depth at which there is a line within some shades, None if there is none, "endless" without end."""
+    check_all_depths(picture, along, shades)
+    sets = LineSets([picture], along, shades)
+    goals = sets.goals()
+    if not goals:
+        return None
+    last = last_reached(sets.steps, goals)
+    return "endless" if last is None else last
+
+
+def longest_within(picture, depth, along, shades):
+    """The tuple (first line, how many) of the first longest run of lines within some shades, None if there is none."""
+    check_lines_of(picture, depth, along, shades)
+    sets = LineSets([picture], along, shades)
+    kinds = merged(sets.steps, sets.full)
+    steps = [[] for kind in range(max(kinds) + 1)]
+    runs = [(0, 0, 0, 0) for row in steps]
+    for kind, row, full in zip(kinds, sets.steps, sets.full):
+        steps[kind] = [kinds[node] for node in row]
+        runs[kind] = (1, 1, 0, 1) if full else (0, 0, 0, 0)
+    side = 1
+    for _ in range(depth):
+        runs = [joined([runs[kind] for kind in row], side) for row in steps]
+        side = side * sets.base
+    _, _, first, many = runs[kinds[0]]
+    return (first, many) if many > 0 else None
+
+
+def lines_unlike(one, other, along, shades):
+    """The least depth at which two sheets do not have as many lines within some shades, None if there is none."""
+    check_two(one, other)
+    check_along(along)
+    check_shades(shades)
+    sets = LineSets([one, other], along, shades)
+    return sets.sums().first_unlike(sets.starts[:1], sets.starts[1:])
+
+
+def joined(parts, side):
+    """The runs of some parts side by side, each with a side of this length.
+
+    The runs of a part are a tuple: how many full lines it begins with, how many it ends with, and
+    the first line and the number of its first longest run.
+    """
+    begin = 0
+    open_run = 0
+    best_first, best = 0, 0
+    for at, (head, tail, first, many) in enumerate(parts):
+        if open_run == at * side:
+            begin = open_run + head
+        if open_run + head > best:
+            best_first, best = at * side - open_run, open_run + head
+        if many > best:
+            best_first, best = at * side + first, many
+        open_run = open_run + side if tail == side else tail
+    return (begin, open_run, best_first, best)
+
+
+def check_lines_of(picture, depth, along, shades):
+    """Raises the errors of a picture, a depth, a word for lines and some shades."""
+    check_picture(picture)
+    check_depth(depth)
+    check_along(along)
+    check_shades(shades)
+
+
+def check_all_depths(picture, along, shades):
+    """Raises the errors of a picture, a word for lines and some shades."""
+    check_picture(picture)
+    check_along(along)
+    check_shades(shades)
+
+
+def check_along(along):
+    """Raises InvalidWord for any object that is neither "row" nor "column"."""
+    if not isinstance(along, str) or along not in WORDS:
+        raise InvalidWord(anew(along))
+
+
+def check_line(picture, depth, line):
+    """Raises InvalidNumber for a number that no line of the sheet has."""
+    if not 0 <= line < side_of(picture[0][0], depth):
+        raise InvalidNumber(line)
