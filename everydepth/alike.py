@@ -1,13 +1,15 @@
 """Whether the sheets of two pictures are the same, and where they part."""
 
+from everydepth.orbits import PairOrbit, unlike_pairs
+from everydepth.partings import UNLIKE, are_alike, first_barred
 from everydepth.pictures import check_depth, check_two, is_int, is_tuple_of
-from everydepth.walks import Walk, first_cell, flat_blocks, last_reached, reached_at
+from everydepth.walks import Walk, flat_blocks
 
 
 def alike(one, other):
     """True if the sheets of two pictures are the same at ALL depths, otherwise False."""
     check_two(one, other)
-    return not unlike_nodes(Walk([one, other]), one, other)
+    return are_same(one, other)
 
 
 def parting(one, other):
@@ -20,21 +22,14 @@ def alike_at(one, other, depth):
     """Whether the sheets of a depth are the same."""
     check_two(one, other)
     check_depth(depth)
-    walk = Walk([one, other])
-    return not reached_at(walk.steps, unlike_nodes(walk, one, other), depth)
+    return PairOrbit(one, other).at(depth) & unlike_pairs(one, other) == 0
 
 
 def alike_from(one, other):
     """The least depth from which on, for ever, the sheets of a depth are the same, None if there is none."""
     check_two(one, other)
-    walk = Walk([one, other])
-    unlike = unlike_nodes(walk, one, other)
-    if not unlike:
-        return 0
-    last = last_reached(walk.steps, unlike)
-    if last is None:
-        return None
-    return last + 1
+    last = PairOrbit(one, other).last_with(unlike_pairs(one, other))
+    return None if last is None else last + 1
 
 
 def closed_pairs(one, other):
@@ -54,15 +49,18 @@ def pairs_hold(one, other, value):
     return (one[1], other[1]) in listed and pairs_closed(listed, one, other)
 
 
+def are_same(one, other):
+    """What alike returns of arguments that are checked."""
+    (book, letter), (other_book, other_letter) = one, other
+    return are_alike(flat_blocks(book), book[1], letter, flat_blocks(other_book), other_book[1], other_letter)
+
+
 def first_unlike(one, other):
-    """None if two pictures of one base are alike, else (depth, row, column) of the least depth and first cell not."""
-    walk = Walk([one, other])
-    return first_cell(walk, unlike_nodes(walk, one, other))
-
-
-def unlike_nodes(walk, one, other):
-    """The nodes of two pictures whose letters have unlike shades."""
-    return [node for node, pair in enumerate(walk.nodes) if not same_shades(pair, one, other)]
+    """What parting returns of arguments that are checked."""
+    # That pictures are alike is soon told, while all of their pairs may be many.
+    if are_same(one, other):
+        return None
+    return first_barred(one, other, UNLIKE)
 
 
 def same_shades(pair, one, other):

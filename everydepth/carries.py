@@ -5,7 +5,8 @@ and by carries: a figure, one of the move and a carry from the lower figures tog
 of the other row, and the base more if a carry goes to the higher figures.
 """
 
-from everydepth.figures import Level, nodes_in
+from everydepth.figures import Level
+from everydepth.masks import nodes_in
 from everydepth.sums import flow_of
 
 

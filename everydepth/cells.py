@@ -74,8 +74,12 @@ def check_lines(count, first, side):
 def side_of(base, depth):
     """The number of the rows, and of the columns, of a sheet."""
     side = 1
-    for _ in range(depth):
-        side = side * base
+    power = base
+    while depth > 0:
+        if depth % 2 == 1:
+            side = side * power
+        power = power * power
+        depth = depth // 2
     return side
 
 

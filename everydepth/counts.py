@@ -111,7 +111,7 @@ def dependent(pictures, shade):
 def letters_met(picture):
     """The list of the letters that come, by their first ways, and for each the numbers of those in its block."""
     walk = Walk([picture])
-    return [letters[0] for letters in walk.nodes], walk.steps
+    return walk.nodes, walk.steps
 
 
 def by_shade(picture, letters, numbers):

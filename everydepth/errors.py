@@ -114,11 +114,11 @@ class NotReady(SheetError):
 
 def anew(value):
     """The object with its lists and tuples built anew, for an error that is to share none with the caller."""
-    if not isinstance(value, (list, tuple)):
-        return value
-    entries = []
-    for entry in value:
-        entries.append(anew(entry))
     if isinstance(value, tuple):
-        return tuple(entries)
-    return entries
+        for entry in value:
+            if not isinstance(entry, int):
+                return tuple([anew(inner) for inner in value])
+        return (*value,)
+    if isinstance(value, list):
+        return [anew(entry) for entry in value]
+    return value

@@ -4,6 +4,8 @@ The machine reads the figures of a row and of a column at once, from the highest
 to several nodes. Sets of nodes are integers, with a bit for each node.
 """
 
+from everydepth.masks import nodes_in, united
+
 
 class Level:
     """Where a machine goes by one figure of the row and of the column.
@@ -82,24 +84,6 @@ def end_figure(ways, figures, goals):
         if found > 0:
             return figure, found
     return None
-
-
-def nodes_in(mask):
-    """The list of the nodes in a set."""
-    found = []
-    while mask > 0:
-        lowest = mask & -mask
-        found.append(lowest.bit_length() - 1)
-        mask = mask ^ lowest
-    return found
-
-
-def united(masks):
-    """The set of the nodes that are in one of some sets."""
-    found = 0
-    for mask in masks:
-        found = found | mask
-    return found
 
 
 def reached(levels, starts):

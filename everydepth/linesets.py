@@ -1,6 +1,6 @@
 """Lines read figure by figure: which letters stand on a row or on a column of a sheet, as one finite machine."""
 
-from everydepth.figures import nodes_in, united
+from everydepth.masks import nodes_in, united
 from everydepth.sums import Sums, tables_of
 
 

@@ -3,7 +3,8 @@
 from everydepth.carries import Overlay, move_keys
 from everydepth.cells import shade_rows, side_of
 from everydepth.errors import InvalidMove, anew
-from everydepth.figures import end_place, leading, reached, united
+from everydepth.figures import end_place, leading, reached
+from everydepth.masks import united
 from everydepth.pictures import check_depth, check_picture, check_two, is_int, is_tuple_of
 
 SHADES = 4

@@ -3,7 +3,7 @@
 from everydepth.errors import InvalidNumber, InvalidPattern, anew
 from everydepth.figures import Level, end_place, reached
 from everydepth.patches import Patches, crossing
-from everydepth.pictures import check_depth, check_picture, is_shade, is_tuple_of
+from everydepth.pictures import are_shades, check_depth, check_picture, is_tuple_of
 from everydepth.sums import Sums
 
 
@@ -200,7 +200,7 @@ def is_pattern(value, most):
         return False
     if not isinstance(value[0], tuple) or not 1 <= len(value[0]) <= most:
         return False
-    return all([is_tuple_of(row, len(value[0])) and all([is_shade(shade) for shade in row]) for row in value])
+    return all([is_tuple_of(row, len(value[0])) and are_shades(row) for row in value])
 
 
 def check_size(picture, number):

@@ -1,33 +1,49 @@
 """What books and pictures are, which of their letters come, and the checks of what is passed to the package."""
 
 from everydepth.errors import InvalidBook, InvalidDepth, InvalidLetter, InvalidPicture, InvalidShade, Unlike, anew
-from everydepth.walks import Walk, folded, last_reached, reached_at, way_to
+from everydepth.orbits import LetterOrbit
+from everydepth.walks import Walk, first_way_to, folded
 
 MOST_LETTERS = 64
 
 
 def is_book(value):
     """Whether any object is a book."""
+    return is_shelf(value) and are_shades(value[1]) and are_blocks(value[2], value[0])
+
+
+def is_shelf(value):
+    """Whether any object is a tuple of a base and of two tuples of as many entries, as many as a book may have."""
     if not is_tuple_of(value, 3):
         return False
     base, shades, blocks = value
-    if not is_int(base) or base not in (2, 3, 4):
+    if not is_int(base) or not 2 <= base <= 4 or not isinstance(shades, tuple):
         return False
-    if not isinstance(shades, tuple) or not 1 <= len(shades) <= MOST_LETTERS:
-        return False
-    if not is_tuple_of(blocks, len(shades)):
-        return False
-    return all([is_shade(shade) for shade in shades]) and all([is_block(block, base, len(shades)) for block in blocks])
+    return 1 <= len(shades) <= MOST_LETTERS and is_tuple_of(blocks, len(shades))
 
 
-def is_block(value, base, count):
-    """Whether any object is a block of a book with so many letters."""
-    return is_tuple_of(value, base) and all([is_block_row(row, base, count) for row in value])
+def are_shades(entries):
+    """Whether all entries of a tuple are shades."""
+    for entry in entries:
+        if not isinstance(entry, int) or entry is True or entry is False or not 0 <= entry <= 3:
+            return False
+    return True
 
 
-def is_block_row(value, base, count):
-    """Whether any object is a row of a block of a book with so many letters."""
-    return is_tuple_of(value, base) and all([is_int(letter) and 0 <= letter < count for letter in value])
+def are_blocks(entries, base):
+    """Whether all entries of a tuple are blocks of a book with as many letters as it has entries."""
+    # Each call of the package asks this of all letters of its pictures: so no function is called for each of them.
+    many = len(entries)
+    for block in entries:
+        if not isinstance(block, tuple) or len(block) != base:
+            return False
+        for row in block:
+            if not isinstance(row, tuple) or len(row) != base:
+                return False
+            for letter in row:
+                if not isinstance(letter, int) or letter is True or letter is False or not 0 <= letter < many:
+                    return False
+    return True
 
 
 def is_picture(value):
@@ -35,7 +51,10 @@ def is_picture(value):
     if not is_tuple_of(value, 2):
         return False
     book, letter = value
-    return is_book(book) and is_int(letter) and 0 <= letter < len(book[1])
+    # What is soon told goes ahead.
+    if not is_shelf(book) or not is_int(letter) or not 0 <= letter < len(book[1]):
+        return False
+    return are_shades(book[1]) and are_blocks(book[2], book[0])
 
 
 def is_shade(value):
@@ -81,7 +100,7 @@ def check_shade(shade):
 
 def check_shades(shades):
     """Raises InvalidShade for any object that is no non-empty ascending tuple of shades."""
-    if not isinstance(shades, tuple) or not shades or not all([is_shade(shade) for shade in shades]):
+    if not isinstance(shades, tuple) or not shades or not are_shades(shades):
         raise InvalidShade(anew(shades))
     if list(shades) != sorted(set(shades)):
         raise InvalidShade(anew(shades))
@@ -102,7 +121,7 @@ def check_depth(depth):
 def coming(picture):
     """The ascending list of the letters that come at some depth."""
     check_picture(picture)
-    return sorted([node[0] for node in Walk([picture]).nodes])
+    return sorted(first_depths(picture))
 
 
 def comes_at(picture, letter, depth):
@@ -110,46 +129,46 @@ def comes_at(picture, letter, depth):
     check_picture(picture)
     check_letter(picture, letter)
     check_depth(depth)
-    walk = Walk([picture])
-    return reached_at(walk.steps, nodes_of(walk, letter), depth)
+    return (LetterOrbit(picture).at(depth) >> letter) & 1 == 1
 
 
 def first_coming(picture, letter):
     """The least depth at which a letter comes, None if it never does."""
     check_picture(picture)
     check_letter(picture, letter)
-    walk = Walk([picture])
-    nodes = nodes_of(walk, letter)
-    if not nodes:
-        return None
-    return walk.depths[nodes[0]]
+    return first_depths(picture).get(letter)
 
 
 def last_coming(picture, letter):
     """The greatest depth at which a letter comes, None if it never does or if there is no greatest one."""
     check_picture(picture)
     check_letter(picture, letter)
-    walk = Walk([picture])
-    nodes = nodes_of(walk, letter)
-    if not nodes:
-        return None
-    return last_reached(walk.steps, nodes)
+    last = LetterOrbit(picture).last_with(1 << letter)
+    return None if last is None or last < 0 else last
 
 
 def first_way(picture, letter):
     """The first way of a letter as a list of places (i, j), None if it never comes."""
     check_picture(picture)
     check_letter(picture, letter)
-    walk = Walk([picture])
-    nodes = nodes_of(walk, letter)
-    if not nodes:
-        return None
-    return way_to(walk, nodes[0])
+    return first_way_to(picture, letter)
 
 
-def nodes_of(walk, letter):
-    """The list of the one node, in a walk of one picture, of a letter; empty if it never comes."""
-    return [node for node, letters in enumerate(walk.nodes) if letters == (letter,)]
+def first_depths(picture):
+    """For each letter that comes the least depth at which it does."""
+    blocks = picture[0][2]
+    depths = {picture[1]: 0}
+    ready = [picture[1]]
+    done = 0
+    while done < len(ready):
+        letter = ready[done]
+        done += 1
+        for row in blocks[letter]:
+            for inner in row:
+                if inner not in depths:
+                    depths[inner] = depths[letter] + 1
+                    ready.append(inner)
+    return depths
 
 
 def trimmed(picture):
@@ -161,4 +180,4 @@ def trimmed(picture):
 
 def shades_of(walk, picture):
     """For each node of a walk of one picture its shade."""
-    return [picture[0][1][letters[0]] for letters in walk.nodes]
+    return [picture[0][1][letter] for letter in walk.nodes]

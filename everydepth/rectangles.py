@@ -2,7 +2,8 @@
 
 from everydepth.cells import check_place, side_of
 from everydepth.errors import InvalidNumber, InvalidRectangle, anew
-from everydepth.figures import Level, end_row, united
+from everydepth.figures import Level, end_row
+from everydepth.masks import united
 from everydepth.pictures import check_depth, check_picture, check_shade, is_int, is_tuple_of
 from everydepth.sums import flow_of, flows_of, tables_of
 from everydepth.walks import Walk, block_row
@@ -55,7 +56,7 @@ def frame(picture, depth, shade):
     check_depth(depth)
     check_shade(shade)
     walk = Walk([picture])
-    goals = united([1 << node for node, letters in enumerate(walk.nodes) if picture[0][1][letters[0]] == shade])
+    goals = united([1 << node for node, letter in enumerate(walk.nodes) if picture[0][1][letter] == shade])
     rows = level_of(walk, False)
     top = end_row([rows] * depth, 1, goals, False)
     if top is None:
@@ -156,7 +157,7 @@ def add_letters(found, letters, flows, book, lines, places):
 def place_of_number(picture, depth, shade, number):
     """The place of the cell of a shade with a number from 0 on, None if there are not so many."""
     walk = Walk([picture])
-    marks = [1 if picture[0][1][letters[0]] == shade else 0 for letters in walk.nodes]
+    marks = [1 if picture[0][1][letter] == shade else 0 for letter in walk.nodes]
     tables = tables_of(flows_of(walk.steps), marks, depth)
     if number >= tables[depth][0]:
         return None

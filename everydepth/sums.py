@@ -6,6 +6,8 @@ of its children at the depth below, and at depth 0 its weight.
 
 from math import gcd
 
+from everydepth.walks import numbered
+
 # Up to so many nodes a matrix is squared for a great depth; of more it would take longer than depth by depth.
 SMALL = 20
 
@@ -89,12 +91,6 @@ def lumped(children, weights):
         if max(finer) == max(kinds):
             return kinds
         kinds = finer
-
-
-def numbered(marks):
-    """For each mark a number, from 0 on by their first places, equal ones the same."""
-    numbers = {}
-    return [numbers.setdefault(mark, len(numbers)) for mark in marks]
 
 
 def flows_of(children):

@@ -2,8 +2,9 @@
 
 from everydepth.errors import InvalidTable, TooMany, anew
 from everydepth.least import least_of
-from everydepth.pictures import MOST_LETTERS, check_picture, check_shade, check_two, is_shade, is_tuple_of, shades_of
-from everydepth.walks import Walk, first_cell, folded, merged
+from everydepth.pictures import MOST_LETTERS, are_shades, check_picture, check_shade, check_two, is_tuple_of, shades_of
+from everydepth.partings import first_barred
+from everydepth.walks import Walk, folded, merged
 
 SHADES = 4
 
@@ -43,9 +44,8 @@ def first_without(one, other, shade):
     """None if each cell with the shade in the one has it in the other, else (depth, row, column) of the first not."""
     check_two(one, other)
     check_shade(shade)
-    walk = Walk([one, other])
-    pairs = shade_pairs(walk, one, other)
-    return first_cell(walk, [node for node, (s, t) in enumerate(pairs) if s == shade and t != shade])
+    barred = [[s == shade and t != shade for t in range(SHADES)] for s in range(SHADES)]
+    return first_barred(one, other, barred)
 
 
 def solved(one, result, table):
@@ -63,9 +63,7 @@ def unsolved(one, result, table):
     """None if each cell has a solution, else (depth, row, column) of the first that has none."""
     check_two(one, result)
     check_table(table)
-    walk = Walk([one, result])
-    marks = solutions(walk, one, result, table)
-    return first_cell(walk, [node for node, mark in enumerate(marks) if mark is None])
+    return first_barred(one, result, [[shade not in row for shade in range(SHADES)] for row in table])
 
 
 def solutions(walk, one, result, table):
@@ -118,4 +116,4 @@ def is_table(value):
 
 def is_map(value):
     """Whether any object is a tuple of four shades."""
-    return is_tuple_of(value, SHADES) and all([is_shade(shade) for shade in value])
+    return is_tuple_of(value, SHADES) and are_shades(value)

@@ -1,8 +1,9 @@
 """Pictures turned and mirrored."""
 
-from everydepth.alike import alike
 from everydepth.errors import InvalidNumber
+from everydepth.partings import are_alike
 from everydepth.pictures import check_picture, check_two
+from everydepth.walks import flat_blocks
 
 TURNS = 8
 QUARTERS = 4
@@ -24,11 +25,13 @@ def turned_picture(picture, turn):
 
 def turned_rows(rows, turn):
     """The rows, tuples, turned."""
-    if turn >= QUARTERS:
+    # Each turn is made of three that are soon done: rows with columns, the first row with the last, left with right.
+    if turn % 2 == 1:
+        rows = tuple(zip(*rows))
+    if turn in (2, 3, 5, 6):
+        rows = rows[::-1]
+    if turn in (1, 2, 4, 5):
         rows = tuple([row[::-1] for row in rows])
-    for _ in range(turn % QUARTERS):
-        upwards = rows[::-1]
-        rows = tuple(zip(*upwards))
     return rows
 
 
@@ -43,10 +46,26 @@ def place_ahead(turn, side, row, column):
 
 def symmetries(picture):
     """The ascending list of the turns that leave a picture alike."""
-    return onto(picture, picture)
+    check_picture(picture)
+    return turns_onto(picture, picture)
 
 
 def onto(one, other):
     """The ascending list of the turns behind which the one is alike the other."""
     check_two(one, other)
-    return [turn for turn in range(TURNS) if alike(turned(one, turn), other)]
+    return turns_onto(one, other)
+
+
+def turns_onto(one, other):
+    """What onto returns of arguments that are checked."""
+    base, shades, _ = one[0]
+    blocks = flat_blocks(one[0])
+    others = flat_blocks(other[0])
+    places = tuple([tuple(range(first, first + base)) for first in range(0, base * base, base)])
+    found = []
+    for turn in range(TURNS):
+        sequence = [place for row in turned_rows(places, turn) for place in row]
+        turned_blocks = [[block[place] for place in sequence] for block in blocks]
+        if are_alike(turned_blocks, shades, one[1], others, other[0][1], other[1]):
+            found.append(turn)
+    return found

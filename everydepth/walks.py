@@ -1,37 +1,55 @@
-"""Walks: all depths of one picture, or of several together, as one finite machine."""
+"""Walks: all depths of one picture, or of two together, as one finite machine."""
+
+# So many rounds tell most nodes apart; where they do not, halves are split off, which no chain of nodes makes slow.
+ROUNDS = 8
 
 
 class Walk:
-    """The nodes of some pictures of one base: the tuples of letters, one of each picture, that ever stand at one cell.
+    """The letters of a picture that ever come, or the pairs of letters of two that ever stand at one cell.
 
-    base is that of the pictures. nodes has the tuples by their first ways, so that of the
-    pictures themselves is node 0. depths has the least depth of each, came has the node and the
-    place from which its first way comes (None for node 0), steps has the nodes in its block, all
-    in reading order. Nodes and places are told by their numbers.
+    base is that of the pictures. nodes has the letters, or the tuples of two, by their first ways,
+    so that of the pictures themselves is node 0. steps has for each the numbers of the nodes in its
+    block, in reading order.
     """
 
     def __init__(self, pictures):
         self.base = pictures[0][0][0]
-        self.nodes = [tuple([picture[1] for picture in pictures])]
-        self.depths = [0]
-        self.came = [None]
+        self.nodes = []
         self.steps = []
-        self._explore([flat_blocks(picture[0]) for picture in pictures])
+        if len(pictures) == 1:
+            self._explore_letters(pictures[0])
+        else:
+            self._explore_pairs(pictures[0], pictures[1])
 
-    def _explore(self, books):
-        numbers = {self.nodes[0]: 0}
-        while len(self.steps) < len(self.nodes):
-            at = len(self.steps)
-            blocks = [book[letter] for book, letter in zip(books, self.nodes[at])]
-            nexts = []
-            for place, node in enumerate(zip(*blocks)):
-                if node not in numbers:
-                    numbers[node] = len(self.nodes)
-                    self.nodes.append(node)
-                    self.depths.append(self.depths[at] + 1)
-                    self.came.append((at, place))
-                nexts.append(numbers[node])
-            self.steps.append(nexts)
+    def _explore_letters(self, picture):
+        blocks = picture[0][2]
+        numbers = {picture[1]: 0}
+        letters = [picture[1]]
+        while len(self.steps) < len(letters):
+            block = [letter for row in blocks[letters[len(self.steps)]] for letter in row]
+            for letter in block:
+                if letter not in numbers:
+                    numbers[letter] = len(letters)
+                    letters.append(letter)
+            self.steps.append([numbers[letter] for letter in block])
+        self.nodes = letters
+
+    def _explore_pairs(self, one, other):
+        many = len(other[0][1])
+        ones, others = pair_blocks(one, other)
+        # A pair is one integer here: the letter of the one, as many times as the other has letters, and its letter.
+        start = one[1] * many + other[1]
+        numbers = {start: 0}
+        pairs = [start]
+        while len(self.steps) < len(pairs):
+            letter, other_letter = divmod(pairs[len(self.steps)], many)
+            block = [a + b for a, b in zip(ones[letter], others[other_letter])]
+            for pair in block:
+                if pair not in numbers:
+                    numbers[pair] = len(pairs)
+                    pairs.append(pair)
+            self.steps.append([numbers[pair] for pair in block])
+        self.nodes = [divmod(pair, many) for pair in pairs]
 
 
 def flat_blocks(book):
@@ -39,40 +57,34 @@ def flat_blocks(book):
     return [[letter for row in block for letter in row] for block in book[2]]
 
 
-def way_to(walk, node):
-    """The first way of a node, a list of places (i, j)."""
+def pair_blocks(one, other):
+    """The blocks of two pictures in reading order, in which the sums of two entries are the integers of pairs."""
+    many = len(other[0][1])
+    return [[letter * many for row in block for letter in row] for block in one[0][2]], flat_blocks(other[0])
+
+
+def first_way_to(picture, letter):
+    """The first way of a letter, a list of places (i, j), None if it never comes."""
+    base, _, blocks = picture[0]
+    came = {picture[1]: None}
+    ready = [picture[1]]
+    done = 0
+    while done < len(ready) and letter not in came:
+        at = ready[done]
+        done += 1
+        for i, row in enumerate(blocks[at]):
+            for j, inner in enumerate(row):
+                if inner not in came:
+                    came[inner] = (at, (i, j))
+                    ready.append(inner)
+    if letter not in came:
+        return None
     places = []
-    while node > 0:
-        node, place = walk.came[node]
-        places.append(divmod(place, walk.base))
+    while came[letter] is not None:
+        letter, place = came[letter]
+        places.append(place)
     places.reverse()
     return places
-
-
-# Which nodes come at a depth, and at which depth last.
-
-
-def reached_at(steps, goals, depth):
-    """Whether one of the goals comes at exactly this depth."""
-    # The depth may have thirty digits, so the steps are squared; nodes are kept as bits.
-    jumps = [sum([1 << node for node in sorted(set(nexts))]) for nexts in steps]
-    found = 1
-    while depth > 0:
-        if depth % 2 == 1:
-            found = jumped(jumps, found)
-        depth = depth // 2
-        jumps = [jumped(jumps, bits) for bits in jumps]
-    return any([((found >> goal) & 1) == 1 for goal in goals])
-
-
-def jumped(jumps, bits):
-    """The bits of all nodes to which a jump leads from those with these bits."""
-    found = 0
-    while bits > 0:
-        lowest = bits & -bits
-        found = found | jumps[lowest.bit_length() - 1]
-        bits = bits - lowest
-    return found
 
 
 def last_reached(steps, goals):
@@ -119,111 +131,39 @@ def leading(steps, goals):
     return leads
 
 
-# The first cell at which one of some nodes stands.
-
-
-def first_cell(walk, goals):
-    """The tuple (depth, row, column) of the least depth and in it the first cell with a goal; None without goals."""
-    if not goals:
-        return None
-    depth = min([walk.depths[goal] for goal in goals])
-    leads = leading_in_time(walk, goals, depth)
-    layers, rows = first_row(walk, leads, depth)
-    columns = first_column(walk, layers, rows)
-    return (depth, number_of_figures(walk.base, rows), number_of_figures(walk.base, columns))
-
-
-def leading_in_time(walk, goals, depth):
-    """For each node whether it first comes so early that a goal comes from it at the depth, the least one of goals.
-
-    A node on the way to such a goal stands at its own least depth there, or the goal would come earlier.
-    """
-    leads = [False] * len(walk.nodes)
-    for goal in goals:
-        leads[goal] = walk.depths[goal] == depth
-    for node in reversed(range(len(walk.nodes))):
-        if not leads[node]:
-            leads[node] = any([one_on(walk, leads, node, after) for after in walk.steps[node]])
-    return leads
-
-
-def one_on(walk, leads, node, after):
-    """Whether the node after is a leading one, first coming directly behind the other node."""
-    return leads[after] and walk.depths[after] == walk.depths[node] + 1
-
-
-def first_row(walk, leads, depth):
-    """The figures of the first row with a goal, and for each depth the nodes that may stand in it."""
-    layers = [[0]]
-    figures = []
-    for _ in range(depth):
-        figure = 0
-        layer = row_layer(walk, leads, layers[-1], figure)
-        while not layer:
-            figure += 1
-            layer = row_layer(walk, leads, layers[-1], figure)
-        figures.append(figure)
-        layers.append(layer)
-    return layers, figures
-
-
-def row_layer(walk, leads, layer, figure):
-    """The leading nodes, one deeper, in the row with this figure of the blocks of the nodes of a layer."""
-    found = {}
-    for node in layer:
-        for after in block_row(walk, node, figure):
-            if one_on(walk, leads, node, after):
-                found[after] = True
-    return list(found)
-
-
 def block_row(walk, node, figure):
     """The nodes in a row of the block of a node."""
     return walk.steps[node][figure * walk.base:(figure + 1) * walk.base]
-
-
-def first_column(walk, layers, rows):
-    """The figures of the first column, in the row with these figures, with a goal: the last layer has them."""
-    alive = [{node: True for node in layers[-1]}]
-    for layer, figure in zip(layers[-2::-1], rows[::-1]):
-        ahead = alive[-1]
-        alive.append({node: True for node in layer if column_in(walk, node, figure, ahead) is not None})
-    alive.reverse()
-    node = 0
-    figures = []
-    for ahead, figure in zip(alive[1:], rows):
-        column = column_in(walk, node, figure, ahead)
-        node = block_row(walk, node, figure)[column]
-        figures.append(column)
-    return figures
-
-
-def column_in(walk, node, figure, ahead):
-    """The first column, in a row of the block of a node, with one of the nodes ahead, None if there is none."""
-    for column, after in enumerate(block_row(walk, node, figure)):
-        if after in ahead:
-            return column
-    return None
-
-
-def number_of_figures(base, figures):
-    """The number with these figures, the highest ones first."""
-    number = 0
-    for figure in figures:
-        number = number * base + figure
-    return number
 
 
 # The least picture.
 
 
 def merged(steps, marks):
-    """For each node the number of its kind: nodes are of one kind if all ways from them lead to the same marks.
+    """For each node the number of its kind: nodes are of one kind if all ways from them lead to the same marks."""
+    kinds = numbered(marks)
+    for _ in range(ROUNDS):
+        finer = numbered([(kind, tuple([kinds[node] for node in row])) for kind, row in zip(kinds, steps)])
+        if max(finer) == max(kinds):
+            return kinds
+        kinds = finer
+    return split_by_halves(steps, kinds)
+
+
+def numbered(marks):
+    """For each mark a number, from 0 on by their first places, equal ones the same."""
+    numbers = {}
+    return [numbers.setdefault(mark, len(numbers)) for mark in marks]
+
+
+def split_by_halves(steps, marks):
+    """What merged returns.
 
     Of two parts of a kind one, the smaller one, is enough to tell which nodes lead to which:
     so it takes a time of about n log n, where a refinement round by round may take n * n.
     """
-    kinds, members = kinds_of_marks(marks)
+    kinds = numbered(marks)
+    members = members_of(kinds)
     before = nodes_before(steps)
     ready = list(range(len(members)))
     waiting = {kind: True for kind in ready}
@@ -243,18 +183,12 @@ def merged(steps, marks):
     return kinds
 
 
-def kinds_of_marks(marks):
-    """For each node a kind, told by its mark alone, and for each kind its nodes, as keys."""
-    numbers = {}
-    kinds = []
-    members = []
-    for node, mark in enumerate(marks):
-        if mark not in numbers:
-            numbers[mark] = len(members)
-            members.append({})
-        kinds.append(numbers[mark])
-        members[numbers[mark]][node] = True
-    return kinds, members
+def members_of(kinds):
+    """For each kind its nodes, as keys."""
+    members = [{} for kind in range(max(kinds) + 1)]
+    for node, kind in enumerate(kinds):
+        members[kind][node] = True
+    return members
 
 
 def nodes_before(steps):
@@ -288,15 +222,14 @@ def folded(walk, marks, kinds):
 
     Nodes stand by their first ways, and the first way of a kind is that of its first node.
     """
-    names = {}
-    firsts = []
+    firsts = {}
     for node, kind in enumerate(kinds):
-        if kind not in names:
-            names[kind] = len(firsts)
-            firsts.append(node)
+        firsts.setdefault(kind, node)
+    names = {kind: name for name, kind in enumerate(firsts)}
+    letters = [names[kind] for kind in kinds]
+    base = walk.base
     blocks = []
-    for node in firsts:
-        rows = [block_row(walk, node, figure) for figure in range(walk.base)]
-        blocks.append(tuple([tuple([names[kinds[after]] for after in row]) for row in rows]))
-    shades = tuple([marks[node] for node in firsts])
-    return ((walk.base, shades, tuple(blocks)), 0)
+    for node in firsts.values():
+        block = [letters[inner] for inner in walk.steps[node]]
+        blocks.append(tuple([tuple(block[first:first + base]) for first in range(0, base * base, base)]))
+    return ((base, tuple([marks[node] for node in firsts.values()]), tuple(blocks)), 0)
