@@ -27,7 +27,6 @@ class Overlay:
         self._blocks = blocks_times(one[0][2], 4 * self._many)
         self._other_blocks = blocks_times(other[0][2], 4)
         self._levels = {}
-        self._ways = {}
 
     def start(self, row_carry, column_carry):
         """The node of the letters of both pictures with two carries."""
@@ -54,14 +53,10 @@ class Overlay:
     def level(self, key, nodes):
         """The level of a key, filled in for a set of nodes."""
         if key not in self._levels:
-            self._levels[key] = Level(self.base)
-        level = self._levels[key]
+            self._levels[key] = (Level(self.base), ways_of_key(self.base, key))
+        level, ways = self._levels[key]
         for node in nodes_in(nodes & ~level.filled):
-            cells = [0] * (self.base * self.base)
-            for first, row, other_row, carry in self._rows(key, node):
-                for j, other_j, more in self._ways_of(key[1], node % 2):
-                    cells[first + j] = cells[first + j] | (1 << (row[j] + other_row[other_j] + carry + more))
-            level.fill(node, cells)
+            level.fill(node, self._cells(ways, node))
         return level
 
     def levels(self, keys, nodes):
@@ -77,40 +72,63 @@ class Overlay:
         numbers = [0] * self.size
         for start in starts:
             numbers[start] = 1
-        flows = {key: {} for key in keys}
+        ways = {key: ways_of_key(self.base, key) for key in keys}
+        flows = {key: {} for key in ways}
+        # Where a key leads is put together if it is asked again and again, as for the upper figures of small moves.
+        often = {key: keys.count(key) > 2 for key in ways}
         for key in keys:
-            found = [0] * len(numbers)
-            for node, times in enumerate(numbers):
-                if times > 0:
-                    if node not in flows[key]:
-                        flows[key][node] = once_and_often(flow_of(self._children(key, node)))
-                    once, often = flows[key][node]
-                    for child in once:
-                        found[child] += times
-                    for child, many in often:
-                        found[child] += times * many
-            numbers = found
+            if often[key]:
+                numbers = self._behind_often(ways[key], flows[key], numbers)
+            else:
+                numbers = self._behind_once(ways[key], numbers)
         return numbers
 
-    def _children(self, key, node):
-        columns = self._ways_of(key[1], node % 2)
-        found = []
-        for _, row, other_row, carry in self._rows(key, node):
-            found.extend([row[j] + other_row[other_j] + carry + more for j, other_j, more in columns])
+    def _behind_once(self, ways, numbers):
+        found = [0] * self.size
+        for node, times in enumerate(numbers):
+            if times > 0:
+                for child in self._children(ways, node):
+                    found[child] += times
         return found
 
-    def _rows(self, key, node):
-        """The list of the tuples of the first place of a row, both rows that lie over one another, and the carry."""
-        letter, other_letter = divmod(node // 4, self._many)
+    def _behind_often(self, ways, flows, numbers):
+        found = [0] * self.size
+        for node, times in enumerate(numbers):
+            if times > 0:
+                if node not in flows:
+                    flows[node] = once_and_often(flow_of(self._children(ways, node)))
+                once, often = flows[node]
+                for child in once:
+                    found[child] += times
+                for child, many in often:
+                    found[child] += times * many
+        return found
+
+    def _children(self, ways, node):
+        pairs, carries = divmod(node, 4)
+        letter, other_letter = divmod(pairs, self._many)
         block = self._blocks[letter]
         other_block = self._other_blocks[other_letter]
-        ways = self._ways_of(key[0], node // 2 % 2)
-        return [(i * self.base, block[i], other_block[other_i], 2 * carry) for i, other_i, carry in ways]
+        found = []
+        for i, other_i, columns in ways[carries]:
+            row = block[i]
+            other_row = other_block[other_i]
+            found.extend([row[j] + other_row[other_j] + carries_below for j, other_j, carries_below in columns])
+        return found
 
-    def _ways_of(self, figure, carry):
-        if (figure, carry) not in self._ways:
-            self._ways[(figure, carry)] = ways_over(self.base, figure, carry)
-        return self._ways[(figure, carry)]
+    def _cells(self, ways, node):
+        pairs, carries = divmod(node, 4)
+        letter, other_letter = divmod(pairs, self._many)
+        block = self._blocks[letter]
+        other_block = self._other_blocks[other_letter]
+        cells = [0] * (self.base * self.base)
+        for i, other_i, columns in ways[carries]:
+            row = block[i]
+            other_row = other_block[other_i]
+            first = i * self.base
+            for j, other_j, carries_below in columns:
+                cells[first + j] = cells[first + j] | (1 << (row[j] + other_row[other_j] + carries_below))
+        return cells
 
 
 def once_and_often(flow):
@@ -121,6 +139,22 @@ def once_and_often(flow):
 def blocks_times(blocks, many):
     """The blocks with each letter so many times."""
     return [[[letter * many for letter in row] for row in block] for block in blocks]
+
+
+def ways_of_key(base, key):
+    """For each of the four pairs of carries of a node the list of its rows, each with its columns.
+
+    They are tuples (figure, other figure, columns) and (figure, other figure, both carries from below).
+    """
+    found = []
+    for row_carry in (0, 1):
+        for column_carry in (0, 1):
+            columns = ways_over(base, key[1], column_carry)
+            rows = []
+            for own, other, below in ways_over(base, key[0], row_carry):
+                rows.append((own, other, [(j, other_j, 2 * below + carry) for j, other_j, carry in columns]))
+            found.append(rows)
+    return found
 
 
 def ways_over(base, figure, carry):

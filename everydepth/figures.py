@@ -24,10 +24,17 @@ class Level:
 
     def fill(self, node, cells):
         """Tells the sets of nodes to which it goes from a node by the places of its block, in reading order."""
-        rows = [united(cells[first:first + self.base]) for first in range(0, len(cells), self.base)]
+        rows = []
+        span = 0
+        for first in range(0, len(cells), self.base):
+            row = 0
+            for cell in cells[first:first + self.base]:
+                row = row | cell
+            rows.append(row)
+            span = span | row
         self._cells[node] = cells
         self._rows[node] = rows
-        self._spans[node] = united(rows)
+        self._spans[node] = span
         self._known = {}
         self.filled = self.filled | (1 << node)
 

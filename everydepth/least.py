@@ -3,6 +3,9 @@
 from everydepth.pictures import check_book, check_picture, shades_of
 from everydepth.walks import Walk, flat_blocks, folded, merged
 
+# Up to this depth what is asked of a few letters is told sooner than which of them are alike.
+SOON = 4
+
 
 def classes(book):
     """The list, by their first letters, of the ascending lists of the letters whose pictures are alike."""
@@ -23,6 +26,13 @@ def least_picture(picture):
     """The least picture that is alike what is known to be a picture, but for the number of its letters."""
     walk = Walk([picture])
     return least_of(walk, shades_of(walk, picture))
+
+
+def fewest(picture, depth):
+    """A picture that is alike, with the fewest letters where that saves time: at great depths, or ALL (None)."""
+    if depth is not None and depth <= SOON:
+        return picture
+    return least_picture(picture)
 
 
 def least_of(walk, marks):

@@ -3,11 +3,15 @@
 
 def nodes_in(mask):
     """The ascending list of the integers in a set."""
+    # The figures of a great set are sooner read as a text than taken off one by one.
+    text = f"{mask:b}"[::-1]
+    if 4 * text.count("1") > len(text):
+        return [at for at, sign in enumerate(text) if sign == "1"]
     found = []
-    while mask > 0:
-        lowest = mask & -mask
-        found.append(lowest.bit_length() - 1)
-        mask = mask ^ lowest
+    at = text.find("1")
+    while at >= 0:
+        found.append(at)
+        at = text.find("1", at + 1)
     return found
 
 

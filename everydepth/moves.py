@@ -4,6 +4,7 @@ from everydepth.carries import Overlay, move_keys
 from everydepth.cells import shade_rows, side_of
 from everydepth.errors import InvalidMove, anew
 from everydepth.figures import end_place, leading, reached
+from everydepth.least import fewest
 from everydepth.masks import united
 from everydepth.pictures import check_depth, check_picture, check_two, is_int, is_tuple_of
 
@@ -13,14 +14,14 @@ SHADES = 4
 def pairs_at(one, other, depth, move):
     """In row s and column t how many cells of shade s of the one sheet lie over one of shade t of the other one."""
     check_moved(one, other, depth, move)
-    overlay = Overlay(one, other)
+    overlay = overlay_of(one, other, depth)
     return counted_pairs(overlay, depth, move, plain_starts(overlay, depth, move))
 
 
 def round_pairs(one, other, depth, move):
     """The same, rows and columns being taken modulo the side."""
     check_moved(one, other, depth, move)
-    overlay = Overlay(one, other)
+    overlay = overlay_of(one, other, depth)
     return counted_pairs(overlay, depth, move, round_starts(overlay))
 
 
@@ -33,14 +34,14 @@ def agreement(one, other, depth, move):
 def unlike_at(one, other, depth, move):
     """The first place of the one sheet that lies over one of another shade, None if there is none."""
     check_moved(one, other, depth, move)
-    overlay = Overlay(one, other)
+    overlay = overlay_of(one, other, depth)
     return first_unlike_place(overlay, depth, move, plain_starts(overlay, depth, move))
 
 
 def round_unlike_at(one, other, depth, move):
     """The same, rows and columns being taken modulo the side."""
     check_moved(one, other, depth, move)
-    overlay = Overlay(one, other)
+    overlay = overlay_of(one, other, depth)
     return first_unlike_place(overlay, depth, move, round_starts(overlay))
 
 
@@ -48,7 +49,7 @@ def moved_parting(one, other, move):
     """None if at ALL depths no place lies over one of another shade, else the first (depth, row, column) that does."""
     check_two(one, other)
     check_move(move)
-    overlay = Overlay(one, other)
+    overlay = overlay_of(one, other, None)
     # No place lies over another one ahead of the depth with a side greater than the move.
     lowest = 0
     side = 1
@@ -103,6 +104,11 @@ def lie_over(rows, others, right):
         if not other.startswith(row, right):
             return False
     return True
+
+
+def overlay_of(one, other, depth):
+    """The letters of two pictures, or of ones that are alike, over one another at a depth, or at ALL if it is None."""
+    return Overlay(fewest(one, depth), fewest(other, depth))
 
 
 def plain_start(overlay, move):

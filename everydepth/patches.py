@@ -4,41 +4,48 @@ What has no more rows and columns than a base and one more lies in the unfolding
 patch of all whose letters it has a cell: it stands across each seam of that patch.
 """
 
+from everydepth.least import fewest
+
 # Stands around a sheet, and unfolds into itself alone. So it is the place of its block, too: the last one.
 OUTSIDE = -1
 
 
 class Patches:
-    """All patches of a picture that ever come about, as one finite machine.
+    """The patches of a picture that come about up to some depth, or at any if it is None, as one finite machine.
 
-    No patch has more than so many rows and columns, each 1 or 2. nodes has the patches, tuples of
-    rows of letters, by the depths at which they first come, which depths tells; those of depth 0
-    are the starts. steps has for each the tuples (place, child): the place, by its number in
-    reading order in the block of the first letter of the patch, of the first letter of the child.
+    The letters may be those of another picture that is alike. No patch has more than so many rows
+    and columns, each 1 or 2. nodes has the patches, tuples of rows of letters, by the depths at
+    which they first come, which depths tells; those of depth 0 are the starts. steps has for each,
+    but for those that first come at the last depth, the tuples (place, child): the place, by its
+    number in reading order in the block of the first letter of the patch, of the first letter of
+    the child.
     """
 
-    def __init__(self, picture, rows, columns, ringed):
-        self.base, self.shades, blocks = picture[0]
+    def __init__(self, picture, rows, columns, ringed, last):
+        book, letter = fewest(picture, last)
+        self.base, self.shades, blocks = book
         self.rows = rows
         self.columns = columns
         self._blocks = blocks + (((OUTSIDE,) * self.base,) * self.base,)
         self._shaded = {}
-        self.nodes = first_patches(picture[1], rows, columns, ringed)
+        self.nodes = first_patches(letter, rows, columns, ringed)
         self.starts = list(range(len(self.nodes)))
         self.depths = [0] * len(self.nodes)
         self.steps = []
-        self._explore()
+        self._explore(last)
 
-    def _explore(self):
-        numbers = {node: at for at, node in enumerate(self.nodes)}
-        while len(self.steps) < len(self.nodes):
-            depth = self.depths[len(self.steps)] + 1
+    def _explore(self, last):
+        nodes = self.nodes
+        numbers = {node: at for at, node in enumerate(nodes)}
+        while len(self.steps) < len(nodes):
+            depth = self.depths[len(self.steps)]
             steps = []
-            for place, child in self._children(self.nodes[len(self.steps)]):
+            inner = [] if depth == last else self._children(nodes[len(self.steps)])
+            for place, child in inner:
                 if child not in numbers:
-                    numbers[child] = len(self.nodes)
-                    self.nodes.append(child)
-                    self.depths.append(depth)
+                    numbers[child] = len(nodes)
+                    nodes.append(child)
+                    self.depths.append(depth + 1)
                 steps.append((place, numbers[child]))
             self.steps.append(steps)
 

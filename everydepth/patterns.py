@@ -40,7 +40,7 @@ def first_depth(picture, pattern):
     check_pattern(picture, pattern)
     if is_cell(picture, pattern):
         return 0
-    patches = patches_of(picture, len(pattern), len(pattern[0]))
+    patches = patches_of(picture, len(pattern), len(pattern[0]), None)
     finder = Finder(patches, pattern)
     # They stand by the depths at which they first come.
     for patch, depth in zip(patches.nodes, patches.depths):
@@ -54,7 +54,7 @@ def pattern_at(picture, depth, pattern):
     check_all(picture, depth, pattern)
     if depth == 0:
         return is_cell(picture, pattern)
-    patches = patches_of(picture, len(pattern), len(pattern[0]))
+    patches = patches_of(picture, len(pattern), len(pattern[0]), depth - 1)
     finder = Finder(patches, pattern)
     for patch in patches_at(patches, depth - 1):
         if finder.places(patch):
@@ -67,7 +67,7 @@ def patterns(picture, rows, columns):
     check_picture(picture)
     check_size(picture, rows)
     check_size(picture, columns)
-    patches = patches_of(picture, rows, columns)
+    patches = patches_of(picture, rows, columns, None)
     found = all_across(patches, patches.nodes, rows, columns)
     if rows == 1 and columns == 1:
         found[cell_of(picture)] = True
@@ -82,7 +82,7 @@ def patterns_at(picture, depth, rows, columns):
     check_size(picture, columns)
     if depth == 0:
         return [cell_of(picture)] if rows == 1 and columns == 1 else []
-    patches = patches_of(picture, rows, columns)
+    patches = patches_of(picture, rows, columns, depth - 1)
     return sorted(all_across(patches, patches_at(patches, depth - 1), rows, columns))
 
 
@@ -101,14 +101,14 @@ def pattern_count(picture, depth, pattern):
     check_all(picture, depth, pattern)
     if depth == 0:
         return 1 if is_cell(picture, pattern) else 0
-    return pattern_sums(picture, pattern).number([0], depth - 1)
+    return pattern_sums(picture, pattern, depth - 1).number([0], depth - 1)
 
 
 def pattern_rule(picture, pattern):
     """The shortest list of fractions by which each number of places, but that at depth 0, comes of those ahead."""
     check_picture(picture)
     check_pattern(picture, pattern)
-    return [(times, 1) for times in pattern_sums(picture, pattern).rule([0])]
+    return [(times, 1) for times in pattern_sums(picture, pattern, None).rule([0])]
 
 
 def place_of(picture, depth, pattern, last):
@@ -116,7 +116,7 @@ def place_of(picture, depth, pattern, last):
     check_all(picture, depth, pattern)
     if depth == 0:
         return (0, 0) if is_cell(picture, pattern) else None
-    patches = patches_of(picture, len(pattern), len(pattern[0]))
+    patches = patches_of(picture, len(pattern), len(pattern[0]), depth - 1)
     # All figures but the lowest ones lead to a patch; by these the pattern lies across it, which is the one goal.
     finder = Finder(patches, pattern)
     lowest = Level(patches.base)
@@ -128,9 +128,9 @@ def place_of(picture, depth, pattern, last):
     return end_place([level_of(patches)] * (depth - 1) + [lowest], 1, 1, last)
 
 
-def patches_of(picture, rows, columns):
-    """The patches of a picture across which what has so many rows and columns may lie."""
-    return Patches(picture, min(rows, 2), min(columns, 2), False)
+def patches_of(picture, rows, columns, last):
+    """The patches of a picture, up to some depth, across which what has so many rows and columns may lie."""
+    return Patches(picture, min(rows, 2), min(columns, 2), False, last)
 
 
 def patches_at(patches, depth):
@@ -164,9 +164,9 @@ def all_across(patches, nodes, rows, columns):
     return found
 
 
-def pattern_sums(picture, pattern):
+def pattern_sums(picture, pattern, last):
     """The sums that tell, for each patch, at how many places of its sheets, one depth more, a pattern comes."""
-    patches = patches_of(picture, len(pattern), len(pattern[0]))
+    patches = patches_of(picture, len(pattern), len(pattern[0]), last)
     finder = Finder(patches, pattern)
     return Sums(patches.children(), [len(finder.places(patch)) for patch in patches.nodes])
 

@@ -3,6 +3,7 @@
 from everydepth.cells import check_place, side_of
 from everydepth.errors import InvalidNumber, InvalidRectangle, anew
 from everydepth.figures import Level, end_row
+from everydepth.least import fewest
 from everydepth.masks import united
 from everydepth.pictures import check_depth, check_picture, check_shade, is_int, is_tuple_of
 from everydepth.sums import flow_of, flows_of, tables_of
@@ -79,6 +80,7 @@ def level_of(walk, mirrored):
 
 def counted_in(picture, depth, rectangle):
     """The tuple of the numbers of cells of the four shades in a rectangle of the sheet."""
+    picture = fewest(picture, depth)
     found = [0] * SHADES
     for letter, times in letters_in(picture, depth, rectangle).items():
         found[picture[0][1][letter]] += times
@@ -137,11 +139,20 @@ def parts_of(share, base, side):
     first, behind = share
     if first == 0 and behind == base * side:
         return [((0, side), (0, base))]
-    found = {}
-    for part in range(first // side, (behind - 1) // side + 1):
-        inner = (max(0, first - part * side), min(side, behind - part * side))
-        found.setdefault(inner, []).append(part)
-    return [(inner, (parts[0], parts[-1] + 1)) for inner, parts in found.items()]
+    low, start = divmod(first, side)
+    high, last = divmod(behind - 1, side)
+    if low == high:
+        return [((start, last + 1), (low, low + 1))]
+    found = []
+    if start > 0:
+        found.append(((start, side), (low, low + 1)))
+        low += 1
+    if last + 1 < side:
+        found.append(((0, last + 1), (high, high + 1)))
+        high -= 1
+    if low <= high:
+        found.append(((0, side), (low, high + 1)))
+    return found
 
 
 def add_letters(found, letters, flows, book, lines, places):
@@ -156,6 +167,7 @@ def add_letters(found, letters, flows, book, lines, places):
 
 def place_of_number(picture, depth, shade, number):
     """The place of the cell of a shade with a number from 0 on, None if there are not so many."""
+    picture = fewest(picture, depth)
     walk = Walk([picture])
     marks = [1 if picture[0][1][letter] == shade else 0 for letter in walk.nodes]
     tables = tables_of(flows_of(walk.steps), marks, depth)

@@ -8,13 +8,13 @@ from everydepth.sums import Sums
 def beside(picture, depth, one, other):
     """The number of places where a cell of the one shade stands directly left of one of the other."""
     check_neighbours(picture, depth, one, other)
-    return weighed(Patches(picture, 1, 2, False), depth, lambda shades: shades == [one, other])
+    return weighed(Patches(picture, 1, 2, False, depth), depth, lambda shades: shades == [one, other])
 
 
 def above(picture, depth, one, other):
     """The number of places where a cell of the one shade stands directly above one of the other."""
     check_neighbours(picture, depth, one, other)
-    return weighed(Patches(picture, 2, 1, False), depth, lambda shades: shades == [one, other])
+    return weighed(Patches(picture, 2, 1, False, depth), depth, lambda shades: shades == [one, other])
 
 
 def rim(picture, depth, shade):
@@ -38,7 +38,8 @@ def pieces_less_holes(picture, depth, shades, corners):
     check_picture(picture)
     check_depth(depth)
     check_shades(shades)
-    return weighed(ringed_patches(picture, corners), depth, pieces_weight(shades, corners))
+    # Where pieces are joined by corners, windows over the rim tell of them, too.
+    return weighed(Patches(picture, 2, 2, corners, depth), depth, pieces_weight(shades, corners))
 
 
 def first_unlike_pieces(one, other, shades, corners):
@@ -46,20 +47,15 @@ def first_unlike_pieces(one, other, shades, corners):
     check_picture(one)
     check_picture(other)
     check_shades(shades)
-    both = [ringed_patches(one, corners), ringed_patches(other, corners)]
+    both = [Patches(picture, 2, 2, corners, None) for picture in (one, other)]
     sums, starts = sums_of(both, pieces_weight(shades, corners))
     return sums.first_unlike(starts[0], starts[1])
 
 
 def sides(picture, depth, weight):
     """How much all sides of cells weigh together: a side lies between two cells, or one and what is outside."""
-    across = weighed(Patches(picture, 1, 2, True), depth, weight)
-    return across + weighed(Patches(picture, 2, 1, True), depth, weight)
-
-
-def ringed_patches(picture, corners):
-    """The patches that tell of pieces: those over the rim, too, if pieces are joined by corners."""
-    return Patches(picture, 2, 2, corners)
+    across = weighed(Patches(picture, 1, 2, True, depth), depth, weight)
+    return across + weighed(Patches(picture, 2, 1, True, depth), depth, weight)
 
 
 def pieces_weight(inside, corners):
