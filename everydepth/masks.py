@@ -4,7 +4,8 @@
 def nodes_in(mask):
     """The ascending list of the integers in a set."""
     # The figures of a great set are sooner read as a text than taken off one by one.
-    text = f"{mask:b}"[::-1]
+    text = f"{mask:b}"
+    text = text[::-1]
     if 4 * text.count("1") > len(text):
         return [at for at, sign in enumerate(text) if sign == "1"]
     found = []

@@ -51,12 +51,10 @@ class Orbit:
 
     def _behind(self, nodes):
         found = 0
-        while nodes > 0:
-            lowest = nodes & -nodes
-            if lowest not in self._inner:
-                self._inner[lowest] = self.inner(lowest.bit_length() - 1)
-            found = found | self._inner[lowest]
-            nodes = nodes ^ lowest
+        for node in nodes_in(nodes):
+            if node not in self._inner:
+                self._inner[node] = self.inner(node)
+            found = found | self._inner[node]
         return found
 
     def _all(self):

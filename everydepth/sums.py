@@ -198,8 +198,7 @@ def rule_modulo(numbers, prime):
         else:
             lag += 1
         now = better
-    now = now + [0] * (length + 1 - len(now))
-    return solved_for_first(now[:length + 1], prime)
+    return solved_for_first(now, prime)
 
 
 def combined(left, times, right, others, prime):

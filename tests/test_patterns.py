@@ -7,7 +7,7 @@ from everydepth.patterns import (
     comes, first_depth, first_place, last_place, pattern_at, pattern_count, pattern_rule, patterns, patterns_at,
 )
 from tests.helper import PromiseCase
-from tests.model import CARPET, STAIRS, chain, made_picture, ring, sparse_picture
+from tests.model import CARPET, STAIRS, chain, made_picture, ring, shade_sheet, sparse_picture
 from tests.model_numbers import pattern_places, patterns_in, plain_rule
 
 DEPTHS = {2: 6, 3: 4, 4: 3}
@@ -77,6 +77,22 @@ class PatternsTest(PromiseCase):
                 # What comes later alone is told with its depth.
                 for pattern in set(told) - found:
                     self.assertGreaterEqual(first_depth(picture, pattern), DEPTHS[base])
+
+    def test_first_and_last_places_of_all_patterns(self):
+        # Of two rows or columns, and of one more than the base: most of them stand across seams of great blocks alone.
+        for picture in few_letters(74, 30):
+            base = picture[0][0]
+            depth = DEPTHS[base] - 1
+            for rows, columns in [(1, 2), (2, 1), (2, 2), (1, base + 1), (base + 1, 1)]:
+                sheet = shade_sheet(picture, depth)
+                places = {}
+                for r, c in product(range(len(sheet) - rows + 1), range(len(sheet) - columns + 1)):
+                    pattern = tuple(tuple(row[c:c + columns]) for row in sheet[r:r + rows])
+                    places.setdefault(pattern, []).append((r, c))
+                for pattern, found in places.items():
+                    self.assertEqual(first_place(picture, depth, pattern), found[0])
+                    self.assertEqual(last_place(picture, depth, pattern), found[-1])
+                    self.assertEqual(pattern_count(picture, depth, pattern), len(found))
 
     def test_one_cell(self):
         self.assertEqual(patterns(STAIRS, 1, 1), [((0,),), ((1,),)])
