@@ -104,11 +104,14 @@ class Overlay:
                     found[child] += times * many
         return found
 
-    def _children(self, ways, node):
+    def _parts(self, node):
+        """The tuple of both blocks of a node and the number of its pair of carries."""
         pairs, carries = divmod(node, 4)
         letter, other_letter = divmod(pairs, self._many)
-        block = self._blocks[letter]
-        other_block = self._other_blocks[other_letter]
+        return self._blocks[letter], self._other_blocks[other_letter], carries
+
+    def _children(self, ways, node):
+        block, other_block, carries = self._parts(node)
         found = []
         for i, other_i, columns in ways[carries]:
             row = block[i]
@@ -117,10 +120,7 @@ class Overlay:
         return found
 
     def _cells(self, ways, node):
-        pairs, carries = divmod(node, 4)
-        letter, other_letter = divmod(pairs, self._many)
-        block = self._blocks[letter]
-        other_block = self._other_blocks[other_letter]
+        block, other_block, carries = self._parts(node)
         cells = [0] * (self.base * self.base)
         for i, other_i, columns in ways[carries]:
             row = block[i]
