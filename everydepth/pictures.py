@@ -14,12 +14,14 @@ def is_book(value):
 
 def is_shelf(value):
     """Whether any object is a tuple of a base and of two tuples of as many entries, as many as a book may have."""
-    if not is_tuple_of(value, 3):
+    if not isinstance(value, tuple) or len(value) != 3:
         return False
     base, shades, blocks = value
-    if not is_int(base) or not 2 <= base <= 4 or not isinstance(shades, tuple):
+    if not isinstance(base, int) or isinstance(base, bool) or not 2 <= base <= 4:
         return False
-    return 1 <= len(shades) <= MOST_LETTERS and is_tuple_of(blocks, len(shades))
+    if not isinstance(shades, tuple) or not isinstance(blocks, tuple):
+        return False
+    return 1 <= len(shades) <= MOST_LETTERS and len(blocks) == len(shades)
 
 
 def are_shades(entries):
@@ -48,7 +50,7 @@ def are_blocks(entries, base):
 
 def is_picture(value):
     """Whether any object is a picture."""
-    if not is_tuple_of(value, 2):
+    if not isinstance(value, tuple) or len(value) != 2:
         return False
     book, letter = value
     # What is soon told goes ahead.

@@ -23,33 +23,38 @@ class Walk:
 
     def _explore_letters(self, picture):
         blocks = picture[0][2]
-        numbers = {picture[1]: 0}
         letters = [picture[1]]
-        while len(self.steps) < len(letters):
-            block = [letter for row in blocks[letters[len(self.steps)]] for letter in row]
+        numbers = [-1] * len(blocks)
+        numbers[picture[1]] = 0
+        steps = []
+        while len(steps) < len(letters):
+            block = [letter for row in blocks[letters[len(steps)]] for letter in row]
             for letter in block:
-                if letter not in numbers:
+                if numbers[letter] < 0:
                     numbers[letter] = len(letters)
                     letters.append(letter)
-            self.steps.append([numbers[letter] for letter in block])
+            steps.append([numbers[letter] for letter in block])
         self.nodes = letters
+        self.steps = steps
 
     def _explore_pairs(self, one, other):
         many = len(other[0][1])
         ones, others = pair_blocks(one, other)
         # A pair is one integer here: the letter of the one, as many times as the other has letters, and its letter.
-        start = one[1] * many + other[1]
-        numbers = {start: 0}
-        pairs = [start]
-        while len(self.steps) < len(pairs):
-            letter, other_letter = divmod(pairs[len(self.steps)], many)
+        pairs = [one[1] * many + other[1]]
+        numbers = [-1] * (many * len(ones))
+        numbers[pairs[0]] = 0
+        steps = []
+        while len(steps) < len(pairs):
+            letter, other_letter = divmod(pairs[len(steps)], many)
             block = [a + b for a, b in zip(ones[letter], others[other_letter])]
             for pair in block:
-                if pair not in numbers:
+                if numbers[pair] < 0:
                     numbers[pair] = len(pairs)
                     pairs.append(pair)
-            self.steps.append([numbers[pair] for pair in block])
+            steps.append([numbers[pair] for pair in block])
         self.nodes = [divmod(pair, many) for pair in pairs]
+        self.steps = steps
 
 
 def flat_blocks(book):
@@ -144,8 +149,8 @@ def merged(steps, marks):
     kinds = numbered(marks)
     for _ in range(ROUNDS):
         finer = numbered([(kind, tuple([kinds[node] for node in row])) for kind, row in zip(kinds, steps)])
-        if max(finer) == max(kinds):
-            return kinds
+        if max(finer) == max(kinds) or max(finer) == len(finer) - 1:
+            return finer
         kinds = finer
     return split_by_halves(steps, kinds)
 
@@ -225,11 +230,15 @@ def folded(walk, marks, kinds):
     firsts = {}
     for node, kind in enumerate(kinds):
         firsts.setdefault(kind, node)
-    names = {kind: name for name, kind in enumerate(firsts)}
-    letters = [names[kind] for kind in kinds]
+    steps = walk.steps
+    if len(firsts) < len(kinds):
+        names = {kind: name for name, kind in enumerate(firsts)}
+        letters = [names[kind] for kind in kinds]
+        steps = [[letters[inner] for inner in steps[node]] for node in firsts.values()]
     base = walk.base
+    rows = [(first, first + base) for first in range(0, base * base, base)]
     blocks = []
-    for node in firsts.values():
-        block = [letters[inner] for inner in walk.steps[node]]
-        blocks.append(tuple([tuple(block[first:first + base]) for first in range(0, base * base, base)]))
+    for step in steps:
+        block = tuple(step)
+        blocks.append(tuple([block[first:behind] for first, behind in rows]))
     return ((base, tuple([marks[node] for node in firsts.values()]), tuple(blocks)), 0)
