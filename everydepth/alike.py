@@ -1,7 +1,7 @@
 """Whether the sheets of two pictures are the same, and where they part."""
 
 from everydepth.orbits import PairOrbit, unlike_pairs
-from everydepth.partings import UNLIKE, are_alike, first_barred
+from everydepth.partings import UNLIKE, are_alike, first_barred_place, machine_of
 from everydepth.pictures import check_depth, check_two, is_int, is_tuple_of
 from everydepth.walks import Walk, flat_blocks
 
@@ -51,16 +51,20 @@ def pairs_hold(one, other, value):
 
 def are_same(one, other):
     """What alike returns of arguments that are checked."""
-    (book, letter), (other_book, other_letter) = one, other
-    return are_alike(flat_blocks(book), book[1], letter, flat_blocks(other_book), other_book[1], other_letter)
+    return are_alike(machine_of(one), machine_of(other))
 
 
 def first_unlike(one, other):
     """What parting returns of arguments that are checked."""
-    # That pictures are alike is soon told, while all of their pairs may be many.
-    if are_same(one, other):
+    return first_unlike_place(machine_of(one), machine_of(other), one[0][0])
+
+
+def first_unlike_place(one, other, base):
+    """The like for two machines, whose blocks have rows of so many places."""
+    # That machines are alike is soon told, while all of their pairs may be many.
+    if are_alike(one, other):
         return None
-    return first_barred(one, other, UNLIKE)
+    return first_barred_place(one, other, UNLIKE, base)
 
 
 def same_shades(pair, one, other):

@@ -23,7 +23,8 @@ class Overlay:
         self._shades = (one[0][1], other[0][1])
         self._many = len(other[0][1])
         self.size = 4 * self._many * len(one[0][1])
-        self._start = (one[1] * self._many + other[1]) * 4
+        self._first = 4 * self._many * one[1]
+        self._start = self._first + 4 * other[1]
         self._blocks = blocks_times(one[0][2], 4 * self._many)
         self._other_blocks = blocks_times(other[0][2], 4)
         self._levels = {}
@@ -31,6 +32,10 @@ class Overlay:
     def start(self, row_carry, column_carry):
         """The node of the letters of both pictures with two carries."""
         return self._start + 2 * row_carry + column_carry
+
+    def node_over(self, letter, carries):
+        """The node of the letter of the one over a letter of the other, with the number of a pair of carries."""
+        return self._first + 4 * letter + carries
 
     def both_shades(self, node):
         """The tuple of the shades of both letters of a node."""

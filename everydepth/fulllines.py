@@ -4,6 +4,7 @@ from everydepth.cells import figures_of, side_of
 from everydepth.errors import InvalidNumber, InvalidWord, anew
 from everydepth.linesets import LineSets, letters_on, letters_without, line_masks
 from everydepth.pictures import check_depth, check_picture, check_shades, check_two
+from everydepth.runs import joined, whole_run
 from everydepth.walks import last_reached, merged
 
 WORDS = ("row", "column")
@@ -88,10 +89,10 @@ def longest_within(picture, depth, along, shades):
     sets = LineSets([picture], along, shades)
     kinds = merged(sets.steps, sets.full)
     steps = [[] for kind in range(max(kinds) + 1)]
-    runs = [(0, 0, 0, 0) for row in steps]
+    runs = [whole_run(0) for row in steps]
     for kind, row, full in zip(kinds, sets.steps, sets.full):
         steps[kind] = [kinds[node] for node in row]
-        runs[kind] = (1, 1, 0, 1) if full else (0, 0, 0, 0)
+        runs[kind] = whole_run(int(full))
     side = 1
     for _ in range(depth):
         runs = [joined([runs[kind] for kind in row], side) for row in steps]
@@ -107,26 +108,6 @@ def lines_unlike(one, other, along, shades):
     check_shades(shades)
     sets = LineSets([one, other], along, shades)
     return sets.sums().first_unlike(sets.starts[:1], sets.starts[1:])
-
-
-def joined(parts, side):
-    """The runs of some parts side by side, each with a side of this length.
-
-    The runs of a part are a tuple: how many full lines it begins with, how many it ends with, and
-    the first line and the number of its first longest run.
-    """
-    begin = 0
-    open_run = 0
-    best_first, best = 0, 0
-    for at, (head, tail, first, many) in enumerate(parts):
-        if open_run == at * side:
-            begin = open_run + head
-        if open_run + head > best:
-            best_first, best = at * side - open_run, open_run + head
-        if many > best:
-            best_first, best = at * side + first, many
-        open_run = open_run + side if tail == side else tail
-    return (begin, open_run, best_first, best)
 
 
 def check_lines_of(picture, depth, along, shades):

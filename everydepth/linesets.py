@@ -55,13 +55,16 @@ class LineSets:
         return [[numbers[kind] for kind in sums.kinds] for numbers in tables_of(sums.flows, sums.weights, depth)]
 
 
+def line_blocks(book, along):
+    """For each letter the lines of its block: its rows, or its columns, tuples of letters."""
+    if along == "row":
+        return list(book[2])
+    return [tuple(zip(*block)) for block in book[2]]
+
+
 def line_masks(book, along):
     """For each letter, for each line of its block, the set of the letters there."""
-    found = []
-    for block in book[2]:
-        lines = block if along == "row" else list(zip(*block))
-        found.append([united([1 << letter for letter in line]) for line in lines])
-    return found
+    return [[united([1 << letter for letter in line]) for line in lines] for lines in line_blocks(book, along)]
 
 
 def letters_on(masks, letters, figure):

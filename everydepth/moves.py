@@ -168,5 +168,10 @@ def check_moved(one, other, depth, move):
 
 def check_move(move):
     """Raises InvalidMove for any object that is none."""
-    if not is_tuple_of(move, 2) or not is_int(move[0]) or not is_int(move[1]):
+    if not is_move(move):
         raise InvalidMove(anew(move))
+
+
+def is_move(value):
+    """Whether any object is a tuple of two integers."""
+    return is_tuple_of(value, 2) and is_int(value[0]) and is_int(value[1])

@@ -1,29 +1,42 @@
-"""Whether two pictures have a pair of letters at one cell that they are not to have, and the first such cell."""
+"""Whether two pictures have a pair of letters at one cell that they are not to have, and the first such cell.
 
-from everydepth.walks import pair_blocks
+What is asked of the letters of two pictures is asked of the nodes of other machines, too, such as
+the letters on one line: a machine is a tuple (blocks, shades, start), with the nodes in the block
+of each node in reading order, a shade for each node, and the node that stands for the whole.
+"""
 
-# For each pair of shades whether they are unlike.
-UNLIKE = ((False, True, True, True), (True, False, True, True), (True, True, False, True), (True, True, True, False))
+from everydepth.walks import flat_blocks
+
+# For each pair of shades whether they are unlike; the last one stands for what is no cell.
+UNLIKE = (
+    (False, True, True, True, True),
+    (True, False, True, True, True),
+    (True, True, False, True, True),
+    (True, True, True, False, True),
+    (True, True, True, True, False),
+)
 
 
-def are_alike(blocks, shades, letter, other_blocks, other_shades, other_letter):
-    """Whether two letters have the same sheets at ALL depths, in two lists of blocks in reading order.
+def are_alike(one, other):
+    """Whether two machines have the same sheets at ALL depths.
 
-    Letters that are to be alike are put together, so that no more pairs are looked at than both
-    have letters: what is asked of a pair that is together already is asked of others ahead of it.
+    Nodes that are to be alike are put together, so that no more pairs are looked at than both have
+    nodes: what is asked of a pair that is together already is asked of others ahead of it.
     """
+    blocks, shades, start = one
+    other_blocks, other_shades, other_start = other
     many = len(blocks)
     heads = list(range(many + len(other_blocks)))
-    ready = [(letter, other_letter)]
+    ready = [(start, other_start)]
     while ready:
-        letter, other_letter = ready.pop()
-        head = head_of(heads, letter)
-        other_head = head_of(heads, many + other_letter)
+        node, other_node = ready.pop()
+        head = head_of(heads, node)
+        other_head = head_of(heads, many + other_node)
         if head != other_head:
-            if shades[letter] != other_shades[other_letter]:
+            if shades[node] != other_shades[other_node]:
                 return False
             heads[other_head] = head
-            ready.extend(list(zip(blocks[letter], other_blocks[other_letter])))
+            ready.extend(list(zip(blocks[node], other_blocks[other_node])))
     return True
 
 
@@ -40,28 +53,38 @@ def first_barred(one, other, barred):
 
     A cell is barred by barred[s][t], with the shade s of the one and the shade t of the other one there.
     """
-    layers = PairLayers(one, other, barred)
+    return first_barred_place(machine_of(one), machine_of(other), barred, one[0][0])
+
+
+def machine_of(picture):
+    """The letters of a picture as a machine."""
+    return (flat_blocks(picture[0]), picture[0][1], picture[1])
+
+
+def first_barred_place(one, other, barred, base):
+    """The like for two machines; base is the number of places in a row of their blocks, which may have one row."""
+    layers = PairLayers(one, other, barred, base)
     if not layers.goals:
         return None
     return layers.first_cell()
 
 
 class PairLayers:
-    """The pairs of letters at one cell by the depths at which they first come, up to the first barred ones, the goals.
+    """The pairs of nodes at one cell by the depths at which they first come, up to the first barred ones, the goals.
 
-    A pair is the letter of the one as many times as the other has letters, and that of the other.
+    A pair is the node of the one as many times as the other has nodes, and that of the other.
     On the way to a goal each pair stands at the depth at which it first comes, or the goal would come earlier.
     """
 
-    def __init__(self, one, other, barred):
-        self._base = one[0][0]
-        self._many = len(other[0][1])
-        self._shades = one[0][1]
-        self._others = other[0][1]
+    def __init__(self, one, other, barred, base):
+        blocks, self._shades, first = one
+        self._other_blocks, self._others, second = other
+        self._base = base
+        self._many = len(self._others)
         self._barred = barred
-        self._blocks = pair_blocks(one, other)
+        self._blocks = [[node * self._many for node in block] for block in blocks]
         self._inner = {}
-        start = one[1] * self._many + other[1]
+        start = first * self._many + second
         self._layers = [[start]]
         self.goals = self._barred_of([start])
         seen = {start: True}
@@ -79,16 +102,15 @@ class PairLayers:
         """The list of the barred ones of some pairs."""
         found = []
         for pair in pairs:
-            letter, other_letter = divmod(pair, self._many)
-            if self._barred[self._shades[letter]][self._others[other_letter]]:
+            node, other_node = divmod(pair, self._many)
+            if self._barred[self._shades[node]][self._others[other_node]]:
                 found.append(pair)
         return found
 
     def _block(self, pair):
         if pair not in self._inner:
-            letter, other_letter = divmod(pair, self._many)
-            ones, others = self._blocks
-            self._inner[pair] = [a + b for a, b in zip(ones[letter], others[other_letter])]
+            node, other_node = divmod(pair, self._many)
+            self._inner[pair] = [a + b for a, b in zip(self._blocks[node], self._other_blocks[other_node])]
         return self._inner[pair]
 
     def _row(self, pair, i):

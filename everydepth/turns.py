@@ -1,9 +1,8 @@
 """Pictures turned and mirrored."""
 
 from everydepth.errors import InvalidNumber
-from everydepth.partings import are_alike
+from everydepth.partings import are_alike, machine_of
 from everydepth.pictures import check_picture, check_two
-from everydepth.walks import flat_blocks
 
 TURNS = 8
 QUARTERS = 4
@@ -58,14 +57,14 @@ def onto(one, other):
 
 def turns_onto(one, other):
     """What onto returns of arguments that are checked."""
-    base, shades, _ = one[0]
-    blocks = flat_blocks(one[0])
-    others = flat_blocks(other[0])
+    base = one[0][0]
+    blocks, shades, start = machine_of(one)
+    others = machine_of(other)
     places = tuple([tuple(range(first, first + base)) for first in range(0, base * base, base)])
     found = []
     for turn in range(TURNS):
         sequence = [place for row in turned_rows(places, turn) for place in row]
         turned_blocks = [[block[place] for place in sequence] for block in blocks]
-        if are_alike(turned_blocks, shades, one[1], others, other[0][1], other[1]):
+        if are_alike((turned_blocks, shades, start), others):
             found.append(turn)
     return found
