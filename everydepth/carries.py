@@ -5,9 +5,18 @@ and by carries: a figure, one of the move and a carry from the lower figures tog
 of the other row, and the base more if a carry goes to the higher figures.
 """
 
+from everydepth.adding import Sources
 from everydepth.figures import Level
 from everydepth.masks import nodes_in
-from everydepth.sums import flow_of
+
+# The pairs of a carry of the row and one of the column: their number is twice the one and the other.
+CARRIES = 4
+
+# Up to so many figures, and while few nodes come, it is not worth while to put together those that lead to each pair.
+FEW_FIGURES = 6
+
+# Behind so many figures of one kind those are left out that never come, if they are many.
+LONG_RUN = 8
 
 
 class Overlay:
@@ -28,10 +37,13 @@ class Overlay:
         self._blocks = blocks_times(one[0][2], 4 * self._many)
         self._other_blocks = blocks_times(other[0][2], 4)
         self._levels = {}
+        self._sources = {}
+        self._key_sources = {}
+        self._known_ways = {}
 
-    def start(self, row_carry, column_carry):
-        """The node of the letters of both pictures with two carries."""
-        return self._start + 2 * row_carry + column_carry
+    def start(self, carries):
+        """The node of the letters of both pictures with the number of a pair of carries."""
+        return self._start + carries
 
     def node_over(self, letter, carries):
         """The node of the letter of the one over a letter of the other, with the number of a pair of carries."""
@@ -58,11 +70,16 @@ class Overlay:
     def level(self, key, nodes):
         """The level of a key, filled in for a set of nodes."""
         if key not in self._levels:
-            self._levels[key] = (Level(self.base), ways_of_key(self.base, key))
-        level, ways = self._levels[key]
+            self._levels[key] = Level(self.base)
+        level = self._levels[key]
         for node in nodes_in(nodes & ~level.filled):
-            level.fill(node, self._cells(ways, node))
+            level.fill(node, self._cells_at(self._ways(key), node))
         return level
+
+    def _ways(self, key):
+        if key not in self._known_ways:
+            self._known_ways[key] = ways_of_key(self.base, key)
+        return self._known_ways[key]
 
     def levels(self, keys, nodes):
         """The levels of some keys, one behind the other, filled in for all that comes behind a set of nodes."""
@@ -72,41 +89,90 @@ class Overlay:
             nodes = found[-1].behind(nodes)
         return found
 
-    def numbers(self, keys, starts):
-        """For each node how often it comes behind the figures of some keys."""
-        numbers = [0] * self.size
-        for start in starts:
-            numbers[start] = 1
-        ways = {key: ways_of_key(self.base, key) for key in keys}
-        flows = {key: {} for key in ways}
-        # Where a key leads is put together if it is asked again and again, as for the upper figures of small moves.
-        often = {key: keys.count(key) > 2 for key in ways}
-        for key in keys:
-            if often[key]:
-                numbers = self._behind_often(ways[key], flows[key], numbers)
-            else:
-                numbers = self._behind_once(ways[key], numbers)
-        return numbers
+    def numbers(self, keys, carries):
+        """For each pair of letters how often it comes behind the figures of some keys, from some pairs of carries on.
 
-    def _behind_once(self, ways, numbers):
+        A pair is the letter of the one as many times as the other has letters, and that of the other.
+        """
+        pairs = self.size // CARRIES
+        numbers = [0] * self.size
+        for carry in carries:
+            numbers[carry * pairs + self._start // CARRIES] = 1
+        few = len(keys) <= FEW_FIGURES
+        for key, many in runs_of(keys):
+            sources = None
+            for done in range(many):
+                # Where few nodes come, these are followed; else those that lead to it are put together for each pair.
+                if few or few_come(numbers, 3):
+                    numbers = self._pushed(key, numbers)
+                    continue
+                if done == LONG_RUN and few_come(numbers, 2):
+                    sources = self._living_sources(key, numbers)
+                elif sources is None:
+                    sources = self._sources_of_key(key)
+                behind = []
+                for below, first in sources:
+                    behind.extend(below.sums(numbers[first:]))
+                numbers = behind
+        return numbers[:pairs]
+
+    def _pushed(self, key, numbers):
+        ways = self._ways(key)
+        pairs = self.size // CARRIES
         found = [0] * self.size
-        for node, times in enumerate(numbers):
+        for at, times in enumerate(numbers):
             if times > 0:
-                for child in self._children(ways, node):
-                    found[child] += times
+                carry, pair = divmod(at, pairs)
+                for node in self._children(ways, CARRIES * pair + carry):
+                    found[node % CARRIES * pairs + node // CARRIES] += times
         return found
 
-    def _behind_often(self, ways, flows, numbers):
-        found = [0] * self.size
-        for node, times in enumerate(numbers):
-            if times > 0:
-                if node not in flows:
-                    flows[node] = once_and_often(flow_of(self._children(ways, node)))
-                once, often = flows[node]
-                for child in once:
-                    found[child] += times
-                for child, many in often:
-                    found[child] += times * many
+    def _sources_of_key(self, key):
+        """For each pair of carries the tuple of the sources of all pairs, by a key, and their first place.
+
+        Where a figure with its carry is the base, what leads to a pair stands as many places further as where it is 0.
+        """
+        if key not in self._key_sources:
+            self._key_sources[key] = self._told_sources(key)
+        return self._key_sources[key]
+
+    def _told_sources(self, key):
+        pairs = self.size // CARRIES
+        found = []
+        for figures in figures_below(key):
+            first = 0
+            if figures is not None:
+                down, right = figures
+                first = (2 * (down // self.base) + right // self.base) * pairs
+                figures = (down % self.base, right % self.base)
+            if figures not in self._sources:
+                self._sources[figures] = Sources(self._places(figures))
+            found.append((self._sources[figures], first))
+        return found
+
+    def _living_sources(self, key, numbers):
+        """The like, without the nodes that never come behind some that do, while the figures stay the same."""
+        places = [terms for figures in figures_below(key) for terms in self._places(figures)]
+        places = living_places(places, numbers)
+        pairs = self.size // CARRIES
+        return [(Sources(places[at:at + pairs]), 0) for at in range(0, self.size, pairs)]
+
+    def _places(self, figures):
+        """For each pair the places, in the list of numbers, of the nodes that lead to it.
+
+        figures are those of the move, each with the carry from below, None if there is no such carry.
+        """
+        pairs = self.size // CARRIES
+        found = [[] for _ in range(pairs)]
+        if figures is None:
+            return found
+        for i in range(self.base):
+            row_carry, other_i = divmod(i + figures[0], self.base)
+            for j in range(self.base):
+                column_carry, other_j = divmod(j + figures[1], self.base)
+                letters = [block[i][j] // CARRIES for block in self._blocks]
+                others = [block[other_i][other_j] // CARRIES for block in self._other_blocks]
+                add_places(found, (2 * row_carry + column_carry) * pairs, letters, others)
         return found
 
     def _parts(self, node):
@@ -124,7 +190,7 @@ class Overlay:
             found.extend([row[j] + other_row[other_j] + carries_below for j, other_j, carries_below in columns])
         return found
 
-    def _cells(self, ways, node):
+    def _cells_at(self, ways, node):
         block, other_block, carries = self._parts(node)
         cells = [0] * (self.base * self.base)
         for i, other_i, columns in ways[carries]:
@@ -136,9 +202,51 @@ class Overlay:
         return cells
 
 
-def once_and_often(flow):
-    """Of the tuples (child, times) of a flow the list of the children that come once, and the list of the others."""
-    return [child for child, times in flow if times == 1], [(child, times) for child, times in flow if times > 1]
+def runs_of(keys):
+    """The list of the tuples (key, many) of the runs of one key in a list of keys."""
+    found = []
+    first = 0
+    for at in range(1, len(keys) + 1):
+        if at == len(keys) or keys[at] != keys[first]:
+            found.append((keys[first], at - first))
+            first = at
+    return found
+
+
+def few_come(numbers, part):
+    """Whether less than one of so many numbers is not 0."""
+    return not all(numbers) and (len(numbers) - numbers.count(0)) * part < len(numbers)
+
+
+def figures_below(key):
+    """For each pair of carries the tuple of both figures of a key with these carries from below, None if none comes."""
+    (down, row_carries), (right, column_carries) = key
+    found = []
+    for row_carry in (0, 1):
+        for column_carry in (0, 1):
+            if row_carry <= row_carries and column_carry <= column_carries:
+                found.append((down + row_carry, right + column_carry))
+            else:
+                found.append(None)
+    return found
+
+
+def add_places(found, place, letters, others):
+    """Adds to each pair of letters the places, from the first on with one pair of carries, of what leads to it."""
+    for letter in letters:
+        for other in others:
+            found[letter + other].append(place)
+            place += 1
+
+
+def living_places(places, numbers):
+    """The places without those of nodes that never come behind some numbers, while the figures stay the same."""
+    alive = [number > 0 for number in numbers]
+    before = 0
+    while before < alive.count(True):
+        before = alive.count(True)
+        alive = [own or any([alive[place] for place in terms]) for own, terms in zip(alive, places)]
+    return [[place for place in terms if alive[place]] for terms in places]
 
 
 def blocks_times(blocks, many):

@@ -2,12 +2,17 @@
 
 from everydepth.cells import figures_of, side_of
 from everydepth.errors import InvalidNumber, InvalidWord, anew
-from everydepth.linesets import LineSets, letters_on, letters_without, line_masks
+from everydepth.linemasks import LineMasks
+from everydepth.linesets import LineSets, all_full_lines, line_blocks
+from everydepth.masks import nodes_in
 from everydepth.pictures import check_depth, check_picture, check_shades, check_two
 from everydepth.runs import joined, whole_run
 from everydepth.walks import last_reached, merged
 
 WORDS = ("row", "column")
+
+# Sheets with so many rows are soon looked at line by line.
+FEW_LINES = 64
 
 
 def is_within(picture, depth, along, line, shades):
@@ -17,16 +22,14 @@ def is_within(picture, depth, along, line, shades):
     check_along(along)
     check_line(picture, depth, line)
     check_shades(shades)
-    masks = line_masks(picture[0], along)
-    letters = 1 << picture[1]
-    for figure in figures_of(picture[0][0], depth, line):
-        letters = letters_on(masks, letters, figure)
-    return letters & letters_without(picture[0][1], shades) == 0
+    return all([picture[0][1][letter] in shades for letter in letters_on_line(picture, depth, along, line)])
 
 
 def lines_within(picture, depth, along, shades):
     """How many rows or columns have no cell but with one of some shades."""
     check_lines_of(picture, depth, along, shades)
+    if has_few_lines(picture, depth):
+        return len(nodes_in(all_full_lines(picture, depth, along, shades)))
     return LineSets([picture], along, shades).sums().number([0], depth)
 
 
@@ -35,6 +38,9 @@ def nth_within(picture, depth, along, shades, number):
     check_lines_of(picture, depth, along, shades)
     if number < 0:
         raise InvalidNumber(number)
+    if has_few_lines(picture, depth):
+        lines = nodes_in(all_full_lines(picture, depth, along, shades))
+        return lines[number] if number < len(lines) else None
     sets = LineSets([picture], along, shades)
     tables = sets.tables(depth)
     if number >= tables[depth][0]:
@@ -55,6 +61,8 @@ def number_within(picture, depth, along, shades, line):
     """How many of the lines within some shades are ahead of a line."""
     check_lines_of(picture, depth, along, shades)
     check_line(picture, depth, line)
+    if has_few_lines(picture, depth):
+        return len(nodes_in(all_full_lines(picture, depth, along, shades) & ((1 << line) - 1)))
     sets = LineSets([picture], along, shades)
     tables = sets.tables(depth)
     number = 0
@@ -86,6 +94,8 @@ def last_depth_within(picture, along, shades):
 def longest_within(picture, depth, along, shades):
     """The tuple (first line, how many) of the first longest run of lines within some shades, None if there is none."""
     check_lines_of(picture, depth, along, shades)
+    if has_few_lines(picture, depth):
+        return longest_run(nodes_in(all_full_lines(picture, depth, along, shades)))
     sets = LineSets([picture], along, shades)
     kinds = merged(sets.steps, sets.full)
     steps = [[] for kind in range(max(kinds) + 1)]
@@ -108,6 +118,44 @@ def lines_unlike(one, other, along, shades):
     check_shades(shades)
     sets = LineSets([one, other], along, shades)
     return sets.sums().first_unlike(sets.starts[:1], sets.starts[1:])
+
+
+def letters_on_line(picture, depth, along, line):
+    """The list of the letters that stand on a line."""
+    base, _, blocks = picture[0]
+    figures = figures_of(base, depth, line)
+    if not has_few_lines(picture, depth):
+        # At great depths the same sets of letters come again and again.
+        masks = LineMasks(base, line_blocks(picture[0], along))
+        found = 1 << picture[1]
+        for figure in figures:
+            found = masks.behind(found, figure)
+        return nodes_in(found)
+    letters = [picture[1]]
+    for figure in figures:
+        if along == "row":
+            inners = {inner: True for letter in letters for inner in blocks[letter][figure]}
+        else:
+            inners = {row[figure]: True for letter in letters for row in blocks[letter]}
+        letters = list(inners)
+    return letters
+
+
+def has_few_lines(picture, depth):
+    """Whether a sheet has so few rows that they may be looked at one by one."""
+    return depth <= FEW_LINES and side_of(picture[0][0], depth) <= FEW_LINES
+
+
+def longest_run(lines):
+    """The tuple (first line, how many) of the first longest run of ascending lines, None if there are none."""
+    best = None
+    first = 0
+    for at, line in enumerate(lines):
+        if at > 0 and lines[at - 1] + 1 < line:
+            first = at
+        if best is None or at + 1 - first > best[1]:
+            best = (lines[first], at + 1 - first)
+    return best
 
 
 def check_lines_of(picture, depth, along, shades):

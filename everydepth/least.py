@@ -32,7 +32,16 @@ def fewest(picture, depth):
     """A picture that is alike, with the fewest letters where that saves time: at great depths, or ALL (None)."""
     if depth is not None and depth <= SOON:
         return picture
-    return least_picture(picture)
+    walk = Walk([picture])
+    marks = shades_of(walk, picture)
+    all_come = len(walk.nodes) == len(picture[0][1])
+    # Letters with unlike shades are not alike.
+    if all_come and len(set(marks)) == len(marks):
+        return picture
+    kinds = merged(walk.steps, marks)
+    if all_come and max(kinds) + 1 == len(kinds):
+        return picture
+    return folded(walk, marks, kinds)
 
 
 def least_of(walk, marks):

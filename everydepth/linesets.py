@@ -55,6 +55,30 @@ class LineSets:
         return [[numbers[kind] for kind in sums.kinds] for numbers in tables_of(sums.flows, sums.weights, depth)]
 
 
+def all_full_lines(picture, depth, along, shades):
+    """The set of the lines of a sheet of small depth all of whose cells have one of some shades: a bit for each."""
+    blocks = line_blocks(picture[0], along)
+    full = [int(shade in shades) for shade in picture[0][1]]
+    side = 1
+    for _ in range(depth):
+        full = [full_lines_of(lines, full, side) for lines in blocks]
+        side = side * picture[0][0]
+    return full[picture[1]]
+
+
+def full_lines_of(lines, full, side):
+    """The set of the full lines of what the lines of a block have inside, each letter so many with such a set."""
+    found = 0
+    at = 0
+    for line in lines:
+        here = -1
+        for inner in line:
+            here = here & full[inner]
+        found = found | (here << at)
+        at += side
+    return found
+
+
 def line_blocks(book, along):
     """For each letter the lines of its block: its rows, or its columns, tuples of letters."""
     if along == "row":

@@ -1,6 +1,6 @@
 """Two sheets, one of them moved: what lies over what, and which moves leave a sheet as it is."""
 
-from everydepth.carries import Overlay, move_keys
+from everydepth.carries import CARRIES, Overlay, move_keys
 from everydepth.cells import shade_rows, side_of
 from everydepth.errors import InvalidMove, anew
 from everydepth.figures import end_place, leading, reached
@@ -14,15 +14,16 @@ SHADES = 4
 def pairs_at(one, other, depth, move):
     """In row s and column t how many cells of shade s of the one sheet lie over one of shade t of the other one."""
     check_moved(one, other, depth, move)
-    overlay = overlay_of(one, other, depth)
-    return counted_pairs(overlay, depth, move, plain_starts(overlay, depth, move))
+    if is_beyond(one[0][0], depth, move):
+        return ((0,) * SHADES,) * SHADES
+    return counted_pairs(one, other, depth, move, [plain_carries(move)])
 
 
 def round_pairs(one, other, depth, move):
     """The same, rows and columns being taken modulo the side."""
     check_moved(one, other, depth, move)
-    overlay = overlay_of(one, other, depth)
-    return counted_pairs(overlay, depth, move, round_starts(overlay))
+    # Carries that go to higher figures are lost.
+    return counted_pairs(one, other, depth, move, list(range(CARRIES)))
 
 
 def agreement(one, other, depth, move):
@@ -34,15 +35,15 @@ def agreement(one, other, depth, move):
 def unlike_at(one, other, depth, move):
     """The first place of the one sheet that lies over one of another shade, None if there is none."""
     check_moved(one, other, depth, move)
-    overlay = overlay_of(one, other, depth)
-    return first_unlike_place(overlay, depth, move, plain_starts(overlay, depth, move))
+    if is_beyond(one[0][0], depth, move):
+        return None
+    return first_unlike_place(overlay_of(one, other, depth), depth, move, [plain_carries(move)])
 
 
 def round_unlike_at(one, other, depth, move):
     """The same, rows and columns being taken modulo the side."""
     check_moved(one, other, depth, move)
-    overlay = overlay_of(one, other, depth)
-    return first_unlike_place(overlay, depth, move, round_starts(overlay))
+    return first_unlike_place(overlay_of(one, other, depth), depth, move, list(range(CARRIES)))
 
 
 def moved_parting(one, other, move):
@@ -60,7 +61,7 @@ def moved_parting(one, other, move):
     keys = move_keys(overlay.base, lowest + 1, move)
     # Most pictures part soon, so few depths are tried ahead of all that tell.
     for most in (1, 3, overlay.size):
-        layers = some_layers(overlay, keys[0], 1 << plain_start(overlay, move), most)
+        layers = some_layers(overlay, keys[0], 1 << overlay.start(plain_carries(move)), most)
         found = parting_behind(overlay, keys, layers)
         if found is not None:
             more, row, column = found
@@ -111,36 +112,29 @@ def overlay_of(one, other, depth):
     return Overlay(fewest(one, depth), fewest(other, depth))
 
 
-def plain_start(overlay, move):
-    """The node of a move that is less than the side: where it is below 0 it begins with a carry."""
-    return overlay.start(int(move[0] < 0), int(move[1] < 0))
+def is_beyond(base, depth, move):
+    """Whether a move leads out of the sheet from each place."""
+    return max(abs(move[0]), abs(move[1])) >= side_of(base, depth)
 
 
-def plain_starts(overlay, depth, move):
-    """The list of the nodes with which a move begins, none if it leads out of the sheet from each place."""
-    if max(abs(move[0]), abs(move[1])) >= side_of(overlay.base, depth):
-        return []
-    return [plain_start(overlay, move)]
+def plain_carries(move):
+    """The number of the pair of carries with which a move less than the side begins: one where it is below 0."""
+    return 2 * int(move[0] < 0) + int(move[1] < 0)
 
 
-def round_starts(overlay):
-    """The list of the nodes with which a move of a round sheet begins: carries that go to higher figures are lost."""
-    return [overlay.start(row_carry, column_carry) for row_carry in (0, 1) for column_carry in (0, 1)]
-
-
-def counted_pairs(overlay, depth, move, starts):
-    """The numbers of the pairs of shades, as pairs_at tells them, of what begins with some nodes."""
+def counted_pairs(one, other, depth, move, carries):
+    """The numbers of the pairs of shades, as pairs_at tells them, of what begins with some pairs of carries."""
+    overlay = overlay_of(one, other, depth)
     pairs = [[0] * SHADES for _ in range(SHADES)]
-    for node, times in enumerate(overlay.numbers(move_keys(overlay.base, depth, move), starts)):
-        if times > 0 and overlay.is_end(node):
-            one, other = overlay.both_shades(node)
-            pairs[one][other] += times
+    for pair, times in enumerate(overlay.numbers(move_keys(overlay.base, depth, move), carries)):
+        shade, other_shade = overlay.both_shades(CARRIES * pair)
+        pairs[shade][other_shade] += times
     return tuple([tuple(row) for row in pairs])
 
 
-def first_unlike_place(overlay, depth, move, starts):
-    """The first place that lies over one of another shade, of what begins with some nodes; None if there is none."""
-    nodes = united([1 << start for start in starts])
+def first_unlike_place(overlay, depth, move, carries):
+    """The first place over one of another shade, of what begins with some pairs of carries; None if there is none."""
+    nodes = united([1 << overlay.start(carry) for carry in carries])
     levels = overlay.levels(move_keys(overlay.base, depth, move), nodes)
     return end_place(levels, nodes, overlay.unlike(reached(levels, nodes)[-1]), False)
 

@@ -5,6 +5,7 @@ the letters on one line: a machine is a tuple (blocks, shades, start), with the 
 of each node in reading order, a shade for each node, and the node that stands for the whole.
 """
 
+from everydepth.linemasks import number_of_figures
 from everydepth.walks import flat_blocks
 
 # For each pair of shades whether they are unlike; the last one stands for what is no cell.
@@ -64,13 +65,13 @@ def machine_of(picture):
 def first_barred_place(one, other, barred, base):
     """The like for two machines; base is the number of places in a row of their blocks, which may have one row."""
     layers = PairLayers(one, other, barred, base)
-    if not layers.goals:
+    if not layers.barred_pairs:
         return None
     return layers.first_cell()
 
 
 class PairLayers:
-    """The pairs of nodes at one cell by the depths at which they first come, up to the first barred ones, the goals.
+    """The pairs of nodes at one cell by the depths at which they first come, up to the first barred ones.
 
     A pair is the node of the one as many times as the other has nodes, and that of the other.
     On the way to a goal each pair stands at the depth at which it first comes, or the goal would come earlier.
@@ -86,9 +87,9 @@ class PairLayers:
         self._inner = {}
         start = first * self._many + second
         self._layers = [[start]]
-        self.goals = self._barred_of([start])
+        self.barred_pairs = self._barred_of([start])
         seen = {start: True}
-        while self._layers[-1] and not self.goals:
+        while self._layers[-1] and not self.barred_pairs:
             layer = []
             for pair in self._layers[-1]:
                 for inner in self._block(pair):
@@ -96,7 +97,7 @@ class PairLayers:
                         seen[inner] = True
                         layer.append(inner)
             self._layers.append(layer)
-            self.goals = self._barred_of(layer)
+            self.barred_pairs = self._barred_of(layer)
 
     def _barred_of(self, pairs):
         """The list of the barred ones of some pairs."""
@@ -118,7 +119,7 @@ class PairLayers:
 
     def first_cell(self):
         """The tuple (depth, row, column) of the first goal in reading order, at the depth of all goals."""
-        ways = [{goal: True for goal in self.goals}]
+        ways = [{goal: True for goal in self.barred_pairs}]
         for layer in self._layers[-2::-1]:
             ahead = ways[-1]
             ways.append({pair: True for pair in layer if any([inner in ahead for inner in self._block(pair)])})
@@ -161,11 +162,3 @@ class PairLayers:
             columns.append(column)
             pair = inners[column]
         return columns
-
-
-def number_of_figures(base, figures):
-    """The number with these figures, the highest ones first."""
-    number = 0
-    for figure in figures:
-        number = number * base + figure
-    return number

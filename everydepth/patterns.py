@@ -1,32 +1,14 @@
 """Which small patterns come about, where and how often."""
 
 from everydepth.errors import InvalidNumber, InvalidPattern, anew
-from everydepth.figures import Level, end_place, reached
-from everydepth.patches import Patches, crossing
+from everydepth.least import fewest
+from everydepth.masks import nodes_in, united
+from everydepth.patches import Patches, explored
+from everydepth.patchlines import PatchLines, end_place_in
 from everydepth.pictures import are_shades, check_depth, check_picture, is_tuple_of
-from everydepth.sums import Sums
-
-
-class Finder:
-    """Finds a pattern in the unfoldings of patches, where it lies across all of their seams."""
-
-    def __init__(self, patches, pattern):
-        self.patches = patches
-        self.pattern = pattern
-        self._begins = {}
-
-    def places(self, patch):
-        """The list of the places (i, j) at which the pattern begins in a patch."""
-        pattern = self.pattern
-        width = len(pattern[0])
-        size = (len(patch), len(patch[0]))
-        if size not in self._begins:
-            self._begins[size] = crossing(self.patches.base, patch, len(pattern), width)
-        shades = self.patches.unfolded_shades(patch)
-        found = [(i, j) for i, j in self._begins[size] if shades[i][j:j + width] == pattern[0]]
-        for line in range(1, len(pattern)):
-            found = [(i, j) for i, j in found if shades[i + line][j:j + width] == pattern[line]]
-        return found
+from everydepth.sums import Sums, flows_of, numbers_at
+from everydepth.walks import leading
+from everydepth.windows import Finder, Windows
 
 
 def comes(picture, pattern):
@@ -40,12 +22,14 @@ def first_depth(picture, pattern):
     check_pattern(picture, pattern)
     if is_cell(picture, pattern):
         return 0
-    patches = patches_of(picture, len(pattern), len(pattern[0]), None)
+    # They stand by the depths at which they first come, and each is looked at ahead of what lies in it.
+    patches = Patches(picture, min(len(pattern), 2), min(len(pattern[0]), 2), False)
     finder = Finder(patches, pattern)
-    # They stand by the depths at which they first come.
-    for patch, depth in zip(patches.nodes, patches.depths):
-        if finder.places(patch):
-            return depth + 1
+    while len(patches.children) < len(patches.nodes):
+        node = len(patches.children)
+        if finder.begins_in(patches.nodes[node]):
+            return patches.depths[node] + 1
+        patches.unfold()
     return None
 
 
@@ -55,9 +39,9 @@ def pattern_at(picture, depth, pattern):
     if depth == 0:
         return is_cell(picture, pattern)
     patches = patches_of(picture, len(pattern), len(pattern[0]), depth - 1)
-    finder = Finder(patches, pattern)
-    for patch in patches_at(patches, depth - 1):
-        if finder.places(patch):
+    places = Finder(patches, pattern).all_places()
+    for node in nodes_at(patches, depth - 1):
+        if node in places:
             return True
     return False
 
@@ -67,11 +51,11 @@ def patterns(picture, rows, columns):
     check_picture(picture)
     check_size(picture, rows)
     check_size(picture, columns)
-    patches = patches_of(picture, rows, columns, None)
-    found = all_across(patches, patches.nodes, rows, columns)
-    if rows == 1 and columns == 1:
-        found[cell_of(picture)] = True
-    return sorted(found)
+    patches = Patches(fewest(picture, None), min(rows, 2), min(columns, 2), False)
+    found = Windows(patches, rows, columns).all_in(patches.all_patches())
+    if rows == 1 and columns == 1 and cell_of(picture) not in found:
+        found = sorted(found + [cell_of(picture)])
+    return found
 
 
 def patterns_at(picture, depth, rows, columns):
@@ -83,7 +67,7 @@ def patterns_at(picture, depth, rows, columns):
     if depth == 0:
         return [cell_of(picture)] if rows == 1 and columns == 1 else []
     patches = patches_of(picture, rows, columns, depth - 1)
-    return sorted(all_across(patches, patches_at(patches, depth - 1), rows, columns))
+    return Windows(patches, rows, columns).all_in([patches.nodes[node] for node in nodes_at(patches, depth - 1)])
 
 
 def first_place(picture, depth, pattern):
@@ -101,14 +85,16 @@ def pattern_count(picture, depth, pattern):
     check_all(picture, depth, pattern)
     if depth == 0:
         return 1 if is_cell(picture, pattern) else 0
-    return pattern_sums(picture, pattern, depth - 1).number([0], depth - 1)
+    children, weights = living_patches(picture, pattern, depth - 1)
+    return numbers_at(flows_of(children), weights, depth - 1)[0] if children else 0
 
 
 def pattern_rule(picture, pattern):
     """The shortest list of fractions by which each number of places, but that at depth 0, comes of those ahead."""
     check_picture(picture)
     check_pattern(picture, pattern)
-    return [(times, 1) for times in pattern_sums(picture, pattern, None).rule([0])]
+    children, weights = living_patches(picture, pattern, None)
+    return [(times, 1) for times in Sums(children, weights).rule([0])] if children else []
 
 
 def place_of(picture, depth, pattern, last):
@@ -117,58 +103,51 @@ def place_of(picture, depth, pattern, last):
     if depth == 0:
         return (0, 0) if is_cell(picture, pattern) else None
     patches = patches_of(picture, len(pattern), len(pattern[0]), depth - 1)
-    # All figures but the lowest ones lead to a patch; by these the pattern lies across it, which is the one goal.
-    finder = Finder(patches, pattern)
-    lowest = Level(patches.base)
-    for node, patch in enumerate(patches.nodes):
-        cells = [0] * (patches.base * patches.base)
-        for i, j in finder.places(patch):
-            cells[i * patches.base + j] = 1
-        lowest.fill(node, cells)
-    return end_place([level_of(patches)] * (depth - 1) + [lowest], 1, 1, last)
+    places = Finder(patches, pattern).all_places()
+    leads = leading(patches.children, places)
+    if not leads[0]:
+        return None
+    # All figures but the lowest ones lead to a patch; by these the pattern lies across it.
+    return end_place_in(PatchLines(patches, leads), places, depth - 1, last)
 
 
 def patches_of(picture, rows, columns, last):
     """The patches of a picture, up to some depth, across which what has so many rows and columns may lie."""
-    return Patches(picture, min(rows, 2), min(columns, 2), False, last)
+    return explored(picture, min(rows, 2), min(columns, 2), False, last)
 
 
-def patches_at(patches, depth):
-    """The list of the patches that come at exactly this depth."""
-    nodes = reached([level_of(patches)] * depth, 1)[-1]
-    return [patch for node, patch in enumerate(patches.nodes) if (nodes >> node) & 1]
+def nodes_at(patches, depth):
+    """The list of the nodes of the patches that come at exactly this depth."""
+    nodes = 1
+    inside = {}
+    told = {}
+    for _ in range(depth):
+        if nodes not in inside:
+            members = nodes_in(nodes)
+            for node in members:
+                if node not in told:
+                    told[node] = united([1 << child for child in patches.children[node]])
+            inside[nodes] = united([told[node] for node in members])
+        nodes = inside[nodes]
+    return nodes_in(nodes)
 
 
-def level_of(patches):
-    """The level that leads from each patch to those in it at one more depth."""
-    level = Level(patches.base)
-    for node, steps in enumerate(patches.steps):
-        cells = [0] * (patches.base * patches.base)
-        for place, child in steps:
-            cells[place] = cells[place] | (1 << child)
-        level.fill(node, cells)
-    return level
+def living_patches(picture, pattern, last):
+    """For each patch the numbers of those in it, one more depth, and at how many places the pattern begins in each.
 
-
-def all_across(patches, nodes, rows, columns):
-    """All patterns with so many rows and columns in the unfoldings of some patches, across them, as keys."""
-    places = {}
-    found = {}
-    for patch in nodes:
-        size = (len(patch), len(patch[0]))
-        if size not in places:
-            places[size] = crossing(patches.base, patch, rows, columns)
-        shades = patches.unfolded_shades(patch)
-        for i, j in places[size]:
-            found[tuple([row[j:j + columns] for row in shades[i:i + rows]])] = True
-    return found
-
-
-def pattern_sums(picture, pattern, last):
-    """The sums that tell, for each patch, at how many places of its sheets, one depth more, a pattern comes."""
+    Patches in which it never comes are left out; both lists are empty if the first one is such.
+    """
     patches = patches_of(picture, len(pattern), len(pattern[0]), last)
-    finder = Finder(patches, pattern)
-    return Sums(patches.children(), [len(finder.places(patch)) for patch in patches.nodes])
+    places = Finder(patches, pattern).all_places()
+    leads = leading(patches.children, places)
+    if not leads[0]:
+        return [], []
+    numbers = {}
+    for node, own in enumerate(leads):
+        if own:
+            numbers[node] = len(numbers)
+    children = [[numbers[child] for child in patches.children[node] if leads[child]] for node in numbers]
+    return children, [len(places.get(node, ())) for node in numbers]
 
 
 def cell_of(picture):

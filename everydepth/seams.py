@@ -1,6 +1,6 @@
 """What stands beside what: neighbours, rims and borders, and pieces less holes."""
 
-from everydepth.patches import OUTSIDE, Patches
+from everydepth.patches import OUTSIDE, explored
 from everydepth.pictures import check_depth, check_picture, check_shade, check_shades
 from everydepth.sums import Sums
 
@@ -8,13 +8,13 @@ from everydepth.sums import Sums
 def beside(picture, depth, one, other):
     """The number of places where a cell of the one shade stands directly left of one of the other."""
     check_neighbours(picture, depth, one, other)
-    return weighed(Patches(picture, 1, 2, False, depth), depth, lambda shades: shades == [one, other])
+    return weighed(explored(picture, 1, 2, False, depth), depth, lambda shades: shades == [one, other])
 
 
 def above(picture, depth, one, other):
     """The number of places where a cell of the one shade stands directly above one of the other."""
     check_neighbours(picture, depth, one, other)
-    return weighed(Patches(picture, 2, 1, False, depth), depth, lambda shades: shades == [one, other])
+    return weighed(explored(picture, 2, 1, False, depth), depth, lambda shades: shades == [one, other])
 
 
 def rim(picture, depth, shade):
@@ -39,7 +39,7 @@ def pieces_less_holes(picture, depth, shades, corners):
     check_depth(depth)
     check_shades(shades)
     # Where pieces are joined by corners, windows over the rim tell of them, too.
-    return weighed(Patches(picture, 2, 2, corners, depth), depth, pieces_weight(shades, corners))
+    return weighed(explored(picture, 2, 2, corners, depth), depth, pieces_weight(shades, corners))
 
 
 def first_unlike_pieces(one, other, shades, corners):
@@ -47,15 +47,15 @@ def first_unlike_pieces(one, other, shades, corners):
     check_picture(one)
     check_picture(other)
     check_shades(shades)
-    both = [Patches(picture, 2, 2, corners, None) for picture in (one, other)]
+    both = [explored(picture, 2, 2, corners, None) for picture in (one, other)]
     sums, starts = sums_of(both, pieces_weight(shades, corners))
     return sums.first_unlike(starts[0], starts[1])
 
 
 def sides(picture, depth, weight):
     """How much all sides of cells weigh together: a side lies between two cells, or one and what is outside."""
-    across = weighed(Patches(picture, 1, 2, True, depth), depth, weight)
-    return across + weighed(Patches(picture, 2, 1, True, depth), depth, weight)
+    across = weighed(explored(picture, 1, 2, True, depth), depth, weight)
+    return across + weighed(explored(picture, 2, 1, True, depth), depth, weight)
 
 
 def pieces_weight(inside, corners):
@@ -86,11 +86,8 @@ def sums_of(several, weight):
     for patches in several:
         first = len(children)
         starts.append([first + node for node in patches.starts])
-        children.extend([[first + child for child in row] for row in patches.children()])
-        for patch in patches.nodes:
-            letters = [letter for row in patch for letter in row]
-            shades = [OUTSIDE if letter == OUTSIDE else patches.shades[letter] for letter in letters]
-            weights.append(int(weight(shades)))
+        children.extend([[first + child for child in row] for row in patches.children])
+        weights.extend([int(weight(patches.shades_of(patch))) for patch in patches.nodes])
     return Sums(children, weights), starts
 
 

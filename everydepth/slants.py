@@ -45,11 +45,11 @@ def number_on(picture, depth, slant, shade, row, column):
     if slant[1] == 0:
         return number_on_row(picture, depth, row_on(slant), shade, (row, column))
     walk = SlantWalk(picture, depth, slant, False)
-    above, strip = {}, walk.starts()
+    above, strip = {}, walk.once()
     for figure, i in zip(walk.figures, figures_of(picture[0][0], depth, row)):
         above = walk.deeper(figure, above)
         for node, times in strip.items():
-            for line in walk.rows(figure, node)[:i]:
+            for line in walk.inner_rows(figure, node)[:i]:
                 add_times(above, line, times)
         strip = strip_behind(walk, figure, strip, i)
     found = walk.of_shade(above, shade)
@@ -69,10 +69,10 @@ def nth_on(picture, depth, slant, shade, number):
         return nth_on_row(picture, depth, row_on(slant), shade, number)
     walk = SlantWalk(picture, depth, slant, False)
     tables = walk.tables(shade)
-    if walk.start is None or number >= tables[depth][walk.start]:
+    if walk.first is None or number >= tables[depth][walk.first]:
         return None
     row = 0
-    strip = walk.starts()
+    strip = walk.once()
     for figure, numbers in zip(walk.figures, tables[-2::-1]):
         i = 0
         inner_strip = strip_behind(walk, figure, strip, i)
@@ -120,7 +120,8 @@ def corner_shades(picture, slope):
     seen = {start: True}
     ready = [start]
     while ready:
-        for inner in blocks[ready.pop()]:
+        node = ready.pop()
+        for inner in blocks[node]:
             if inner not in seen:
                 seen[inner] = True
                 ready.append(inner)
@@ -129,7 +130,7 @@ def corner_shades(picture, slope):
 
 def numbers_behind(walk):
     """For each node of a walk how often it comes behind all figures."""
-    numbers = walk.starts()
+    numbers = walk.once()
     for figure in walk.figures:
         numbers = walk.deeper(figure, numbers)
     return numbers
@@ -139,7 +140,7 @@ def strip_behind(walk, figure, strip, i):
     """For each node how often it comes in a row of the blocks of a strip, by a figure of k and one of the row."""
     found = {}
     for node, times in strip.items():
-        add_times(found, walk.rows(figure, node)[i], times)
+        add_times(found, walk.inner_rows(figure, node)[i], times)
     return found
 
 

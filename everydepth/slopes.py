@@ -24,7 +24,7 @@ class SlantWalk:
     """The letters of a picture with their leads, read from the highest figures on, for a slant at a depth.
 
     A node is a letter and as many times the number of the letters as its lead is greater than the
-    least one. figures are those of k, start is the node of the whole sheet, None if it has no place
+    least one. figures are those of k, first is the node of the whole sheet, None if it has no place
     of the slant; nodes of which all places are ahead of it have one lead more, if they are told at all.
     """
 
@@ -36,7 +36,7 @@ class SlantWalk:
         self._high = max(self._p, 0) + max(self._q, 0)
         self._ahead = ahead
         self.figures = figures_of(self._base, depth, k)
-        self.start = self._node(letter, k // side_of(self._base, depth))
+        self.first = self._node(letter, k // side_of(self._base, depth))
         self._rows = {}
         self._flows = {}
 
@@ -50,7 +50,7 @@ class SlantWalk:
         lead, letter = divmod(node, self._many)
         return (lead + self._low, letter)
 
-    def rows(self, figure, node):
+    def inner_rows(self, figure, node):
         """The list of the rows of the nodes in the block of a node, by a figure of k, without those that are none."""
         key = (figure, node)
         if key not in self._rows:
@@ -70,7 +70,7 @@ class SlantWalk:
         """The list of the tuples (node, times) of the nodes in the block of a node."""
         key = (figure, node)
         if key not in self._flows:
-            self._flows[key] = flow_of([inner for row in self.rows(figure, node) for inner in row])
+            self._flows[key] = flow_of([inner for row in self.inner_rows(figure, node) for inner in row])
         return self._flows[key]
 
     def deeper(self, figure, numbers):
@@ -81,9 +81,9 @@ class SlantWalk:
                 found[inner] = found.get(inner, 0) + times * many
         return found
 
-    def starts(self):
-        """For the node of the whole sheet, if it has one, that it comes once."""
-        return {} if self.start is None else {self.start: 1}
+    def once(self):
+        """For the node of the whole sheet, if there is one, that it comes once."""
+        return {} if self.first is None else {self.first: 1}
 
     def of_shade(self, numbers, shade):
         """How many of some nodes are cells of a shade on the slant."""
@@ -96,7 +96,7 @@ class SlantWalk:
 
     def tables(self, shade):
         """For each depth, from 0 on, for each node that comes there, how many cells of a shade on the slant it has."""
-        layers = [self.starts()]
+        layers = [self.once()]
         for figure in self.figures:
             layers.append({inner: True for node in layers[-1] for inner, _ in self.flow(figure, node)})
         found = [{node: self.of_shade({node: 1}, shade) for node in layers[-1]}]

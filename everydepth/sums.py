@@ -6,10 +6,15 @@ of its children at the depth below, and at depth 0 its weight.
 
 from math import gcd
 
+from everydepth.adding import Flows
+from everydepth.remainders import power_of_x
 from everydepth.walks import numbered
 
 # Up to so many nodes a matrix is squared for a great depth; of more it would take longer than depth by depth.
-SMALL = 20
+SMALL = 5
+
+# Up to this depth it would take longer to write the sums out.
+SOON = 6
 
 # Tried one behind the other: greater ones for greater coefficients. 0 stands for no prime, but exact integers.
 PRIMES = (2 ** 61 - 1, (2 ** 64) ** 8 * 2 ** 9 - 1, 0)
@@ -123,6 +128,8 @@ def deeper(flows, numbers):
 def numbers_at(flows, weights, depth):
     """For each node its number at a depth."""
     numbers = weights
+    if len(flows) == 2:
+        return pair_at(matrix_of(flows), numbers, depth)
     if len(flows) <= SMALL and depth > 2 * len(flows):
         matrix = matrix_of(flows)
         while depth > 2 * len(flows):
@@ -134,9 +141,28 @@ def numbers_at(flows, weights, depth):
         for _ in range(depth):
             numbers = applied(matrix, numbers)
         return numbers
+    if depth <= SOON:
+        for _ in range(depth):
+            numbers = deeper(flows, numbers)
+        return numbers
+    told = Flows(flows)
     for _ in range(depth):
-        numbers = deeper(flows, numbers)
+        numbers = told.sums(numbers)
     return numbers
+
+
+def pair_at(matrix, numbers, depth):
+    """The numbers of two nodes at a depth."""
+    (a, b), (c, d) = matrix
+    x, y = numbers
+    while depth > 0:
+        if depth % 2 == 1:
+            x, y = a * x + b * y, c * x + d * y
+        # The square of the matrix is told by what both of its sides have in common.
+        both, trace = b * c, a + d
+        a, b, c, d = a * a + both, b * trace, c * trace, d * d + both
+        depth = depth // 2
+    return [x, y]
 
 
 def tables_of(flows, weights, depth):
@@ -244,35 +270,8 @@ def holds(rule, numbers):
 
 def rest_by_rule(rule, numbers, depth, modulus):
     """The remainder of the number at a depth, by a rule and at least as many first numbers as it is long."""
-    # The power of x with the depth as its exponent, modulo the polynomial of the rule, is squared up to the depth.
-    power = [1 % modulus]
-    for place in reversed(range(depth.bit_length())):
-        power = reduced(squared_power(power), rule, modulus)
-        if (depth >> place) & 1 == 1:
-            power = reduced([0] + power, rule, modulus)
+    power = power_of_x(rule, depth, modulus)
     return sum([x * y for x, y in zip(power, numbers)]) % modulus
-
-
-def squared_power(power):
-    """The coefficients of the square of a polynomial, the lowest ones first."""
-    many = len(power)
-    backwards = power[::-1]
-    found = []
-    for at in range(2 * many - 1):
-        low = max(0, at - many + 1)
-        found.append(sum([x * y for x, y in zip(power[low:at + 1], backwards[many - 1 - at + low:])]))
-    return found
-
-
-def reduced(power, rule, modulus):
-    """The polynomial with a degree below the length of the rule, coefficients modulo a number."""
-    power = list(power)
-    while len(power) > len(rule):
-        top = power.pop() % modulus
-        if top != 0:
-            for back, times in enumerate(rule):
-                power[-1 - back] += top * times
-    return [x % modulus for x in power]
 
 
 # All linear relations between several sequences.

@@ -136,11 +136,6 @@ def leading(steps, goals):
     return leads
 
 
-def block_row(walk, node, figure):
-    """The nodes in a row of the block of a node."""
-    return walk.steps[node][figure * walk.base:(figure + 1) * walk.base]
-
-
 # The least picture.
 
 

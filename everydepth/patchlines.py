@@ -1,0 +1,87 @@
+"""The first and the last place at which a patch, with what lies in it, has something."""
+
+from everydepth.linemasks import LineMasks, all_figures, number_of_figures
+from everydepth.masks import nodes_in, united
+
+
+class PatchLines(LineMasks):
+    """The rows of the blocks of patches as one machine over figures, and the cells in them.
+
+    leads tells for each patch whether it is to be told at all.
+    """
+
+    def __init__(self, patches, leads):
+        base = patches.base
+        LineMasks.__init__(self, base, None)
+        self._patches = patches
+        self._cells = {}
+        self._ends = {}
+        self._bits = [1 << node if own else 0 for node, own in enumerate(leads)]
+        for i in range(base):
+            self._masks[i] = []
+        self._spans = []
+        for bit, spots, children in zip(self._bits, patches.spots, patches.children):
+            if bit > 0:
+                rows = [0] * base
+                for spot, child in zip(spots, children):
+                    rows[spot // base] = rows[spot // base] | self._bits[child]
+                span = 0
+                for i, row in enumerate(rows):
+                    if row > 0:
+                        self._masks[i].append((bit, row))
+                        span = span | row
+                self._spans.append((bit, span))
+
+    def _cells_of(self, node):
+        """For each place of the block of a patch the set of the patches there."""
+        if node not in self._cells:
+            found = [0] * (self.base * self.base)
+            for spot, child in zip(self._patches.spots[node], self._patches.children[node]):
+                found[spot] = found[spot] | self._bits[child]
+            self._cells[node] = found
+        return self._cells[node]
+
+    def end_cell(self, nodes, i, goals, last):
+        """The first figure of the column, or the last one, by which some patches have goals, and the set of these."""
+        key = (nodes, i, goals, last)
+        if key not in self._ends:
+            cells = [self._cells_of(node) for node in nodes_in(nodes)]
+            for j in all_figures(self.base, last):
+                found = united([own[i * self.base + j] for own in cells]) & goals
+                if found:
+                    break
+            self._ends[key] = (j, found)
+        return self._ends[key]
+
+
+def end_place_in(lines, places, depth, last):
+    """The tuple (row, column) of the first place, or of the last one, in the sheet of a depth, or None.
+
+    places has, for each patch that has what is asked for, the places (i, j), by one more figure each, where it does.
+    """
+    goals = sum([1 << node for node in places])
+    layers = lines.with_goals(goals, depth)
+    if not layers[-1] & 1:
+        return None
+    rows, goals = lines.end_figures(1, layers, last)
+    members = nodes_in(goals)
+    lowest = end_of([i for node in members for i, _ in places[node]], last)
+    goals = sum([1 << node for node in members if lowest in [i for i, _ in places[node]]])
+    columns = []
+    nodes = 1
+    ahead = None
+    for i, goals in zip(rows, lines.on_line(goals, rows)[-2::-1]):
+        if (nodes, i, goals) != ahead:
+            ahead = (nodes, i, goals)
+            j, inner = lines.end_cell(nodes, i, goals, last)
+        columns.append(j)
+        nodes = inner
+    if not rows:
+        nodes = goals
+    columns.append(end_of([j for node in nodes_in(nodes) for i, j in places[node] if i == lowest], last))
+    return (number_of_figures(lines.base, rows + [lowest]), number_of_figures(lines.base, columns))
+
+
+def end_of(numbers, last):
+    """The least of some numbers, or the greatest one."""
+    return max(numbers) if last else min(numbers)
