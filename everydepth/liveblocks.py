@@ -5,6 +5,7 @@ parts. So two blocks of one depth have the same letters exactly if their nodes a
 may stand for blocks of several depths; that of the block is always told.
 """
 
+from everydepth.adding import Sources
 from everydepth.sums import flow_of
 
 SHADES = 4
@@ -24,7 +25,7 @@ class LiveBlocks:
         self.rows = list(blocks)
         self._numbers = {}
         self._counts = {}
-        self._unlike = {}
+        self._unlike = None
         # A block has at most 16 ** depth cells.
         self._width = 4 * depth + 1
         # For each depth the least letter whose sheet is as that of a letter, and such ones by their rows of parts.
@@ -88,34 +89,54 @@ class LiveBlocks:
 
     def unlike(self, node, other_node, depth):
         """How many cells of two blocks of a depth have unlike shades."""
-        return unlike_cells_of(self, self, (node, other_node, depth), len(self.rows), self._unlike)
-
-    def unlike_to(self, others, node, other_node, depth):
-        """The like for a block and one that others, of the same base, have."""
-        # Where both have one book, its letters are the nodes that both have.
-        same = self.many if self.rows[:self.many] == others.rows[:others.many] and self.shades == others.shades else 0
-        return unlike_cells_of(self, others, (node, other_node, depth), same, {})
+        if self._unlike is None:
+            self._unlike = UnlikeCells(self, self, True)
+        return self._unlike.number(node, other_node, depth)
 
 
-def unlike_cells_of(blocks, others, key, same, known):
-    """How many cells of two blocks have unlike shades, key being their nodes and their depth.
+class UnlikeCells:
+    """The numbers of cells with unlike shades in two blocks of one depth, of two LiveBlocks or of one.
 
-    Nodes below same stand for the same in both. known keeps what was told of the parts.
+    The sheets of two letters are told by tables: for each depth, for each pair of letters, the letter
+    of the one as many times as the other has letters, and that of the other.
     """
-    node, other_node, depth = key
-    if node == other_node and node < same:
-        return 0
-    if depth == 0:
-        return int(blocks.shades[node] != others.shades[other_node])
-    if key not in known:
-        pairs = []
-        for row, other_row in zip(blocks.rows[node], others.rows[other_node]):
-            pairs.extend(list(zip(row, other_row)))
-        found = 0
-        for (inner, other_inner), times in flow_of(pairs):
-            found += times * unlike_cells_of(blocks, others, (inner, other_inner, depth - 1), same, known)
-        known[key] = found
-    return known[key]
+
+    def __init__(self, blocks, others, are_one):
+        self._blocks = blocks
+        self._others = others
+        self._are_one = are_one
+        self._known = {}
+        unlike = []
+        places = []
+        for shade, block in zip(blocks.shades, blocks.rows):
+            for other_shade, other_block in zip(others.shades, others.rows):
+                unlike.append(int(shade != other_shade))
+                pairs = both_cells(block, other_block)
+                places.append([inner * others.many + other_inner for inner, other_inner in pairs])
+        self._tables = [unlike]
+        self._sources = Sources(places)
+
+    def number(self, node, other_node, depth):
+        """The number of two blocks, told by their nodes and their depth."""
+        if self._are_one and node == other_node:
+            return 0
+        if node < self._blocks.many and other_node < self._others.many:
+            while len(self._tables) <= depth:
+                self._tables.append(self._sources.sums(self._tables[-1]))
+            return self._tables[depth][node * self._others.many + other_node]
+        key = (node, other_node, depth)
+        if key not in self._known:
+            pairs = flow_of(both_cells(self._blocks.rows[node], self._others.rows[other_node]))
+            self._known[key] = sum([times * self.number(pair[0], pair[1], depth - 1) for pair, times in pairs])
+        return self._known[key]
+
+
+def both_cells(rows, other_rows):
+    """The list of the pairs of the nodes at the same places of two blocks."""
+    found = []
+    for row, other_row in zip(rows, other_rows):
+        found.extend(list(zip(row, other_row)))
+    return found
 
 
 def same_letters(blocks, others, node, other_node):
@@ -128,9 +149,8 @@ def same_letters(blocks, others, node, other_node):
             if node != other_node:
                 return False
         else:
-            for row, other_row in zip(blocks.rows[node], others.rows[other_node]):
-                for pair in zip(row, other_row):
-                    if pair not in seen:
-                        seen[pair] = True
-                        ready.append(pair)
+            for pair in both_cells(blocks.rows[node], others.rows[other_node]):
+                if pair not in seen:
+                    seen[pair] = True
+                    ready.append(pair)
     return True

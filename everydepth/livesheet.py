@@ -2,7 +2,7 @@
 
 from everydepth.cells import check_place, figures_of
 from everydepth.errors import InvalidAddress, InvalidLetter, NoPart, Nothing, Unlike, anew
-from everydepth.liveblocks import LiveBlocks, same_letters
+from everydepth.liveblocks import LiveBlocks, UnlikeCells, same_letters
 from everydepth.pictures import check_depth, check_picture, is_int, is_tuple_of
 from everydepth.rectangles import check_rectangle
 from everydepth.strips import whole_blocks
@@ -159,7 +159,8 @@ class Sheet:
             raise Unlike(other._blocks.base)
         if other._depth != self._depth:
             raise Unlike(other._depth)
-        return self._blocks.unlike_to(other._blocks, self._wholes[-1], other._wholes[-1], self._depth)
+        cells = UnlikeCells(self._blocks, other._blocks, False)
+        return cells.number(self._wholes[-1], other._wholes[-1], self._depth)
 
     def _add_deed(self, deed, whole):
         self._deeds.append(deed)

@@ -87,8 +87,8 @@ class LineEnd(End):
             if many != 0:
                 sums = shifted_sums(base, many, places * base, squares * base * base)
                 for strip, line in zip(strips, self._lines[node]):
-                    for inner, (places, squares) in zip(line, sums):
-                        add_on_strip(strip, inner, many, places, squares)
+                    for inner, (moved, moved_squares) in zip(line, sums):
+                        add_on_strip(strip, inner, many, moved, moved_squares)
         self.strip = strips.pop()
         for strip in strips:
             self._add_line(found, strip)
