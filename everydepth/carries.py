@@ -163,17 +163,15 @@ class Overlay:
         figures are those of the move, each with the carry from below, None if there is no such carry.
         """
         pairs = self.size // CARRIES
-        found = [[] for _ in range(pairs)]
-        if figures is None:
-            return found
-        for i in range(self.base):
+        rows = [[[] for _ in range(self._many)] for _ in range(pairs // self._many)]
+        for i in range(self.base) if figures is not None else []:
             row_carry, other_i = divmod(i + figures[0], self.base)
             for j in range(self.base):
                 column_carry, other_j = divmod(j + figures[1], self.base)
-                letters = [block[i][j] // CARRIES for block in self._blocks]
+                letters = [block[i][j] // (CARRIES * self._many) for block in self._blocks]
                 others = [block[other_i][other_j] // CARRIES for block in self._other_blocks]
-                add_places(found, (2 * row_carry + column_carry) * pairs, letters, others)
-        return found
+                add_places(rows, (2 * row_carry + column_carry) * pairs, letters, others)
+        return [places for row in rows for places in row]
 
     def _parts(self, node):
         """The tuple of both blocks of a node and the number of its pair of carries."""
@@ -231,11 +229,12 @@ def figures_below(key):
     return found
 
 
-def add_places(found, place, letters, others):
+def add_places(rows, place, letters, others):
     """Adds to each pair of letters the places, from the first on with one pair of carries, of what leads to it."""
     for letter in letters:
+        row = rows[letter]
         for other in others:
-            found[letter + other].append(place)
+            row[other].append(place)
             place += 1
 
 

@@ -163,8 +163,9 @@ class Finder:
             rows, columns = self._text_rows(half)
             found = 0
             for i in self._first_rows[many - 1]:
-                # Of two halves the first one has as many of the rows as are left in it.
-                found = found | places_of(rows[i:], self._texts, columns, WIDTH * i)
+                if self._texts[0] in rows[i]:
+                    # Of two halves the first one has as many of the rows as are left in it.
+                    found = found | places_of(rows[i:], self._texts, columns, WIDTH * i)
             self._begins[key] = found
         return self._begins[key]
 
@@ -175,7 +176,8 @@ class Finder:
             rows, columns = self._text_rows(half)
             found = 0
             for i in self._first_rows[1]:
-                found = found | places_of(rows, self._texts[len(rows) - i:], columns, WIDTH * i)
+                if self._texts[len(rows) - i] in rows[0]:
+                    found = found | places_of(rows, self._texts[len(rows) - i:], columns, WIDTH * i)
             self._begins[key] = found
         return self._begins[key]
 
