@@ -163,8 +163,10 @@ class Overlay:
         figures are those of the move, each with the carry from below, None if there is no such carry.
         """
         pairs = self.size // CARRIES
+        if figures is None:
+            return [[] for _ in range(pairs)]
         rows = [[[] for _ in range(self._many)] for _ in range(pairs // self._many)]
-        for i in range(self.base) if figures is not None else []:
+        for i in range(self.base):
             row_carry, other_i = divmod(i + figures[0], self.base)
             for j in range(self.base):
                 column_carry, other_j = divmod(j + figures[1], self.base)
