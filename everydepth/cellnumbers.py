@@ -5,30 +5,33 @@ from everydepth.cells import figures_of
 
 
 class LineSums:
-    """Sums over the blocks of all letters, and over some lines of theirs, of a number that each letter has."""
+    """Sums over the blocks of all letters, and over some of their lines, of a number that each letter has.
 
-    def __init__(self, blocks):
-        self._blocks = blocks
+    lines has for each letter the lines of its block: its rows, or its columns, which are told as rows then.
+    """
+
+    def __init__(self, lines):
+        self.lines = lines
         self._wholes = None
-        self._lines = {}
+        self._told_lines = {}
         self._upper = {}
 
     def of_blocks(self, numbers):
         """For each letter the sum of the numbers of all letters in its block."""
         if self._wholes is None:
-            self._wholes = [tuple([inner for row in block for inner in row]) for block in self._blocks]
+            self._wholes = [tuple([inner for row in block for inner in row]) for block in self.lines]
         return added(numbers, self._wholes)
 
     def of_row(self, numbers, i):
         """For each letter the sum of the numbers of the letters in a row of its block."""
-        if i not in self._lines:
-            self._lines[i] = [block[i] for block in self._blocks]
-        return added(numbers, self._lines[i])
+        if i not in self._told_lines:
+            self._told_lines[i] = [block[i] for block in self.lines]
+        return added(numbers, self._told_lines[i])
 
     def above_row(self, numbers, i):
         """For each letter the sum of the numbers of the letters ahead of a row of its block, which is not the first."""
         if i not in self._upper:
-            self._upper[i] = [tuple([inner for row in block[:i] for inner in row]) for block in self._blocks]
+            self._upper[i] = [tuple([inner for row in block[:i] for inner in row]) for block in self.lines]
         return added(numbers, self._upper[i])
 
 
@@ -67,7 +70,7 @@ def place_of_number(picture, depth, shade, number):
     if number >= tables[depth][letter]:
         return None
     row, figures, number = row_of_number(picture, sums, tables, number)
-    return (row, column_of_number(picture, sums, tables[0], figures, number))
+    return (row, place_on_line(sums, letter, tables[0], figures, number))
 
 
 def row_of_number(picture, sums, tables, number):
@@ -100,19 +103,23 @@ def number_on_strip(strip, numbers):
     return sum([times * number for times, number in zip(strip, numbers) if times > 0])
 
 
-def column_of_number(picture, sums, marks, figures, number):
-    """The column of the cell with a number in the row with these figures; marks tells which letters have the shade."""
-    (base, _, blocks), letter = picture
+def place_on_line(sums, letter, marks, figures, number):
+    """The place, on the row with these figures, of its cell with a number, None if there are not so many.
+
+    The rows are those of the lines that the sums are told for; marks has 1 for the letters that count, 0 for others.
+    """
     tables = [marks]
     for i in reversed(figures):
         tables.append(sums.of_row(tables[-1], i))
-    column = 0
+    if number >= tables[-1][letter]:
+        return None
+    place = 0
     for i, numbers in zip(figures, tables[-2::-1]):
-        line = blocks[letter][i]
+        line = sums.lines[letter][i]
         j = 0
         while number >= numbers[line[j]]:
             number -= numbers[line[j]]
             j += 1
-        column = column * base + j
+        place = place * len(line) + j
         letter = line[j]
-    return column
+    return place

@@ -110,61 +110,6 @@ def leading(levels, starts, goals):
     return layers
 
 
-def end_place(self, nodes, goals, i, last):
-        """The like for the figure of the column, where that of the row is told."""
-        key = (nodes, goals, i, last)
-        if key not in self._known:
-            ways = [self._cells[node] for node in nodes_in(nodes)]
-            place, found = end_figure(ways, range_of(i * self.base, self.base, last), goals)
-            self._known[key] = (place - i * self.base, found)
-        return self._known[key]
-
-
-def range_of(first, many, last):
-    """The list of so many integers from the first on, backwards if the last one is asked for."""
-    found = list(range(first, first + many))
-    if last:
-        found.reverse()
-    return found
-
-
-def end_figure(ways, figures, goals):
-    """The first of the figures by which one of the ways, lists of sets, has goals, and these; some have."""
-    for figure in figures:
-        found = united([way[figure] for way in ways]) & goals
-        if found > 0:
-            return figure, found
-    return None
-
-
-def reached(levels, starts):
-    """The list of the sets of nodes that come behind so many levels, from 0 on."""
-    layers = [starts]
-    for level in levels:
-        layers.append(level.behind(layers[-1]))
-    return layers
-
-
-def leading(levels, starts, goals):
-    """The like, without the nodes that do not lead to a goal behind the last level."""
-    layers = reached(levels, starts)
-    layers[-1] = layers[-1] & goals
-    for at in reversed(range(len(levels))):
-        layers[at] = levels[at].ahead(layers[at], layers[at + 1])
-    return layers
-
-
-def end_row(levels, starts, goals, last):
-    """The first row that has a goal, or the last one; None if there is none."""
-    layers = leading(levels, starts, goals)
-    if layers[0] == 0:
-        return None
-    row = 0
-    for i in row_figures(levels, layers, last):
-        row = row * levels[0].base + i
-    return row
-
-
 def end_place(levels, starts, goals, last):
     """The tuple (row, column) of the first place in reading order that ends in a goal, or of the last; else None."""
     layers = leading(levels, starts, goals)

@@ -1,6 +1,7 @@
 """Single rows and columns: what stands on them, where, and whether two of them are alike."""
 
 from everydepth.alike import first_unlike_place
+from everydepth.cellnumbers import LineSums, place_on_line
 from everydepth.cells import figures_of, side_of
 from everydepth.errors import InvalidNumber
 from everydepth.fulllines import check_along, check_line
@@ -109,25 +110,9 @@ def letters_ahead(picture, depth, row, behind):
 
 def cell_on_line(picture, depth, along, line, shade, number):
     """What line_cell returns of arguments that are checked."""
-    blocks = line_blocks(picture[0], along)
-    figures = figures_of(picture[0][0], depth, line)
-    tables = [[int(own == shade) for own in picture[0][1]]]
-    for figure in reversed(figures):
-        numbers = tables[-1]
-        tables.append([sum([numbers[inner] for inner in lines[figure]]) for lines in blocks])
-    letter = picture[1]
-    if number >= tables[depth][letter]:
-        return None
-    place = 0
-    for figure, numbers in zip(figures, tables[-2::-1]):
-        inners = blocks[letter][figure]
-        at = 0
-        while number >= numbers[inners[at]]:
-            number -= numbers[inners[at]]
-            at += 1
-        place = place * picture[0][0] + at
-        letter = inners[at]
-    return place
+    sums = LineSums(line_blocks(picture[0], along))
+    marks = [int(own == shade) for own in picture[0][1]]
+    return place_on_line(sums, picture[1], marks, figures_of(picture[0][0], depth, line), number)
 
 
 def first_unlike_on(one, other, along, figures):
