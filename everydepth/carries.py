@@ -15,7 +15,8 @@ CARRIES = 4
 # Up to so many figures, and while few nodes come, it is not worth while to put together those that lead to each pair.
 FEW_FIGURES = 6
 
-# Behind so many figures of one kind those are left out that never come, if they are many.
+# Behind so many figures of one kind, with many more to come, the sources of all carries are put together; where only
+# few nodes come, the others are left out.
 LONG_RUN = 8
 
 
@@ -106,8 +107,8 @@ class Overlay:
                 if few or few_come(numbers, 3):
                     numbers = self._pushed(key, numbers)
                     continue
-                if done == LONG_RUN and few_come(numbers, 2):
-                    sources = self._living_sources(key, numbers)
+                if done == LONG_RUN and many > 3 * LONG_RUN:
+                    sources = self._run_sources(key, numbers)
                 elif sources is None:
                     sources = self._sources_of_key(key)
                 behind = []
@@ -150,12 +151,12 @@ class Overlay:
             found.append((self._sources[figures], first))
         return found
 
-    def _living_sources(self, key, numbers):
-        """The like, without the nodes that never come behind some that do, while the figures stay the same."""
+    def _run_sources(self, key, numbers):
+        """The like in one, for many figures of one key that are behind some numbers."""
         places = [terms for figures in figures_below(key) for terms in self._places(figures)]
-        places = living_places(places, numbers)
-        pairs = self.size // CARRIES
-        return [(Sources(places[at:at + pairs]), 0) for at in range(0, self.size, pairs)]
+        if few_come(numbers, 2):
+            places = living_places(places, numbers)
+        return [(Sources(places), 0)]
 
     def _places(self, figures):
         """For each pair the places, in the list of numbers, of the nodes that lead to it.
