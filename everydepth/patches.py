@@ -39,7 +39,6 @@ class Patches:
         self._above = self._beside + self._pairs
         self._four = self._above + self._pairs
         self._seams = {}
-        self._shaded = {}
         self._shape_spots = {}
         self._four_spots = [self.base * self.base - 1]
         self.nodes = self._first_patches(letter, ringed)
@@ -187,12 +186,13 @@ class Patches:
         """The list of the shades of the letters of a patch in reading order."""
         return [self.shades[letter] for half in self.halves(patch) for letter in self.letters_of(half)]
 
-    def shaded(self, letter):
-        """The list of the rows of the block of a letter, tuples of shades."""
-        if letter not in self._shaded:
-            shades = self.shades
-            self._shaded[letter] = [tuple([shades[inner] for inner in row]) for row in self.letter_blocks[letter]]
-        return self._shaded[letter]
+    def by_rows(self, some):
+        """The list of those of some patches that have one row of letters, and that of the tuples of two rows."""
+        above, four, many, pairs, beside = self._above, self._four, self._many, self._pairs, self._beside
+        found = [divmod(patch - above, many) for patch in some if above <= patch < four]
+        fours = [divmod(patch - four, pairs) for patch in some if patch >= four]
+        found.extend([(beside + upper, beside + lower) for upper, lower in fours])
+        return [patch for patch in some if patch < above], found
 
     def one_row_patches(self):
         """The list of the patches of one letter, and that of those of two letters beside one another."""

@@ -25,31 +25,31 @@ class Windows:
         self._many = rows
         self._width = BITS * columns
         self._first_rows = crossing_lines(patches.base, rows)
-        self._first_columns = crossing_lines(patches.base, columns)
-        self._rows = {}
-        self._uppers = {}
-        self._lowers = {}
+        # By how many bits the rows of one letter, and those of two, are to be moved for each column.
+        firsts = crossing_lines(patches.base, columns)
+        self._shifts = [
+            [BITS * (letters * patches.base - columns - j) for j in firsts[letters - 1]] for letters in (1, 2)]
+        self._letter_rows = {}
+        self._halves = {}
 
     def all_in(self, some):
         """The ascending list of all patterns that some patches have."""
+        singles, doubles = self._patches.by_rows(some)
         found = {}
-        for patch in some:
-            halves = self._patches.halves(patch)
-            if len(halves) == 1:
-                for i in self._first_rows[0]:
-                    for number in self._numbers_of(patch, i, i + self._many):
-                        found[number] = True
-            else:
-                upper, lower = halves
-                if upper not in self._uppers:
-                    self._uppers[upper] = self._upper_numbers(upper)
-                if lower not in self._lowers:
-                    self._lowers[lower] = self._lower_numbers(lower)
-                for number, below in zip(self._uppers[upper], self._lowers[lower]):
-                    found[number + below] = True
-        return self.told(sorted(found))
+        for half in singles:
+            for number in self._whole_numbers(half):
+                found[number] = True
+        known = self._halves
+        for upper, lower in doubles:
+            if upper not in known:
+                known[upper] = self._half_numbers(upper)
+            if lower not in known:
+                known[lower] = self._half_numbers(lower)
+            for number, below in zip(known[upper][0], known[lower][1]):
+                found[number + below] = True
+        return self._told(sorted(found))
 
-    def told(self, numbers):
+    def _told(self, numbers):
         """The list of the patterns that are told by some integers."""
         width = self._width
         places = [width * row for row in reversed(range(self._many))]
@@ -64,49 +64,62 @@ class Windows:
             found.append(tuple([rows[part] for part in parts]))
         return found
 
-    def _upper_numbers(self, half):
-        """For each place at which a pattern may begin in an upper half its rows there, moved to the front."""
+    def _whole_numbers(self, half):
+        """All patterns that lie in the unfolding of a half alone, across its seam."""
         found = []
+        rows = self._parts(half) if self._first_rows[0] else []
+        for i in self._first_rows[0]:
+            numbers = rows[i]
+            for row in rows[i + 1:i + self._many]:
+                numbers = [(above << self._width) + number for above, number in zip(numbers, row)]
+            found.extend(numbers)
+        return found
+
+    def _half_numbers(self, half):
+        """What a half has of patterns that begin in it as the upper one, and of those as the lower one.
+
+        Both lists have the same places, one behind the other, at which a pattern may begin; what
+        belongs to the upper half is moved to the front.
+        """
+        width = self._width
         base = self._patches.base
-        for i in self._first_rows[1]:
-            below = self._width * (i + self._many - base)
-            found.extend([number << below for number in self._numbers_of(half, i, base)])
-        return found
+        rows = self._parts(half)
+        uppers, lowers = [], []
+        # A pattern that begins one row later has one row less in the upper half, and one more in the lower one.
+        below = [0] * len(rows[0])
+        for at in range(len(self._first_rows[1])):
+            below = [(number << width) + part for number, part in zip(below, rows[at])]
+            lowers.append(below)
+        above = [0] * len(rows[0])
+        for i in reversed(self._first_rows[1]):
+            above = [(part << (width * (base - 1 - i))) + number for number, part in zip(above, rows[i])]
+            uppers.append([number << (width * (i + self._many - base)) for number in above])
+        uppers.reverse()
+        return [[number for row in numbers for number in row] for numbers in (uppers, lowers)]
 
-    def _lower_numbers(self, half):
-        """The like for the rows that it has in a lower half."""
-        found = []
-        for i in self._first_rows[1]:
-            found.extend(self._numbers_of(half, 0, i + self._many - self._patches.base))
-        return found
-
-    def _numbers_of(self, half, first, behind):
-        """For each column in which a pattern may begin what some rows of a half have of it."""
-        if half not in self._rows:
-            self._rows[half] = self._told_rows(half)
-        rows = self._rows[half][first:behind]
-        found = rows[0]
-        for row in rows[1:]:
-            found = [(above << self._width) + number for above, number in zip(found, row)]
-        return found
-
-    def _told_rows(self, half):
+    def _parts(self, half):
         """For each row of the unfolding of a half its parts, by the columns in which a pattern may begin."""
         letters = self._patches.letters_of(half)
-        firsts = self._first_columns[len(letters) - 1]
-        rows = self._patches.shaded(letters[0])
+        numbers = self._numbers_of(letters[0])
         if len(letters) == 2:
-            rows = [left + right for left, right in zip(rows, self._patches.shaded(letters[1]))]
+            more = BITS * self._patches.base
+            numbers = [(left << more) + right for left, right in zip(numbers, self._numbers_of(letters[1]))]
         mask = (1 << self._width) - 1
-        found = []
-        for row in rows:
-            # The row as one number: its parts are some of its figures, those of the last column the lowest.
-            number = 0
-            for shade in row:
-                number = (number << BITS) + shade
-            last = BITS * len(row) - self._width
-            found.append([(number >> (last - BITS * j)) & mask for j in firsts])
-        return found
+        shifts = self._shifts[len(letters) - 1]
+        return [[(number >> shift) & mask for shift in shifts] for number in numbers]
+
+    def _numbers_of(self, letter):
+        """The rows of the block of a letter, each as one number."""
+        if letter not in self._letter_rows:
+            shades = self._patches.shades
+            found = []
+            for row in self._patches.letter_blocks[letter]:
+                number = 0
+                for inner in row:
+                    number = (number << BITS) + shades[inner]
+                found.append(number)
+            self._letter_rows[letter] = found
+        return self._letter_rows[letter]
 
 
 class Finder:
