@@ -120,5 +120,5 @@ def anew(value):
                 return tuple([anew(inner) for inner in value])
         return (*value,)
     if isinstance(value, list):
-        return [anew(entry) for entry in value]
+        return [entry if isinstance(entry, int) else anew(entry) for entry in value]
     return value
