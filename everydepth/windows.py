@@ -29,7 +29,7 @@ class Windows:
         firsts = crossing_lines(patches.base, columns)
         self._shifts = [
             [BITS * (letters * patches.base - columns - j) for j in firsts[letters - 1]] for letters in (1, 2)]
-        self._letter_rows = {}
+        self._row_numbers = {}
         self._halves = {}
 
     def all_in(self, some):
@@ -110,7 +110,7 @@ class Windows:
 
     def _numbers_of(self, letter):
         """The rows of the block of a letter, each as one number."""
-        if letter not in self._letter_rows:
+        if letter not in self._row_numbers:
             shades = self._patches.shades
             found = []
             for row in self._patches.letter_blocks[letter]:
@@ -118,8 +118,8 @@ class Windows:
                 for inner in row:
                     number = (number << BITS) + shades[inner]
                 found.append(number)
-            self._letter_rows[letter] = found
-        return self._letter_rows[letter]
+            self._row_numbers[letter] = found
+        return self._row_numbers[letter]
 
 
 class Finder:
