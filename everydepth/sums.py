@@ -10,8 +10,9 @@ from everydepth.adding import Flows
 from everydepth.remainders import power_of_x
 from everydepth.walks import numbered
 
-# Up to so many nodes a matrix is squared for a great depth; of more it would take longer than depth by depth.
-SMALL = 5
+# Of more nodes, or with more children of each, it takes longer to make two depths one than to take them one by one.
+SMALL = 12
+CHILDREN = 6
 
 # Up to this depth it would take longer to write the sums out.
 SOON = 6
@@ -130,17 +131,17 @@ def numbers_at(flows, weights, depth):
     numbers = weights
     if len(flows) == 2:
         return pair_at(matrix_of(flows), numbers, depth)
-    if len(flows) <= SMALL and depth > 2 * len(flows):
-        matrix = matrix_of(flows)
-        while depth > 2 * len(flows):
-            if depth % 2 == 1:
-                numbers = applied(matrix, numbers)
-            columns = list(zip(*matrix))
-            matrix = [applied(columns, row) for row in matrix]
-            depth = depth // 2
-        for _ in range(depth):
-            numbers = applied(matrix, numbers)
-        return numbers
+    # Of few nodes two depths are made one, again and again, as long as what leads there does not grow much.
+    terms = terms_of(flows)
+    while depth > SOON and len(flows) <= SMALL and terms <= CHILDREN * len(flows):
+        twice = twice_deeper(flows)
+        if terms_of(twice) > 2 * terms:
+            break
+        if depth % 2 == 1:
+            numbers = deeper(flows, numbers)
+        depth = depth // 2
+        flows = twice
+        terms = terms_of(flows)
     if depth <= SOON:
         for _ in range(depth):
             numbers = deeper(flows, numbers)
@@ -149,6 +150,23 @@ def numbers_at(flows, weights, depth):
     for _ in range(depth):
         numbers = told.sums(numbers)
     return numbers
+
+
+def terms_of(flows):
+    """How many tuples all flows have together."""
+    return sum([len(flow) for flow in flows])
+
+
+def twice_deeper(flows):
+    """The flows by which two depths more are told at once."""
+    found = []
+    for flow in flows:
+        times = {}
+        for child, many in flow:
+            for inner, more in flows[child]:
+                times[inner] = times.get(inner, 0) + many * more
+        found.append(list(times.items()))
+    return found
 
 
 def pair_at(matrix, numbers, depth):
@@ -182,11 +200,6 @@ def matrix_of(flows):
             row[child] = times
         matrix.append(row)
     return matrix
-
-
-def applied(matrix, numbers):
-    """The sums of the products of each row with numbers."""
-    return [sum([times * number for times, number in zip(row, numbers)]) for row in matrix]
 
 
 # The shortest linear rule of a sequence.
