@@ -34,26 +34,40 @@ class Sources:
 
     def __init__(self, places):
         self._many = len(places)
+        self._singles = []
+        self._firsts = []
         self._eights = []
         self._fours = []
         self._twos = []
         self._ones = []
         for at, terms in enumerate(places):
-            while len(terms) >= 8:
-                self._eights.append((at, *terms[:8]))
-                terms = terms[8:]
-            if len(terms) >= 4:
-                self._fours.append((at, *terms[:4]))
-                terms = terms[4:]
-            if len(terms) >= 2:
-                self._twos.append((at, *terms[:2]))
-                terms = terms[2:]
-            if terms:
-                self._ones.append((at, terms[0]))
+            many = len(terms)
+            if many == 1:
+                self._singles.append((at, terms[0]))
+                continue
+            first = 0
+            if many >= 8:
+                self._firsts.append((at, *terms[:8]))
+                first = 8
+                while many - first >= 8:
+                    self._eights.append((at, *terms[first:first + 8]))
+                    first += 8
+            if many - first >= 4:
+                self._fours.append((at, *terms[first:first + 4]))
+                first += 4
+            if many - first >= 2:
+                self._twos.append((at, terms[first], terms[first + 1]))
+                first += 2
+            if first < many:
+                self._ones.append((at, terms[first]))
 
     def sums(self, n):
         """The list of the sums of the numbers at the places."""
         found = [0] * self._many
+        for at, a in self._singles:
+            found[at] = n[a]
+        for at, a, b, c, d, e, f, g, h in self._firsts:
+            found[at] = n[a] + n[b] + n[c] + n[d] + n[e] + n[f] + n[g] + n[h]
         for at, a, b, c, d, e, f, g, h in self._eights:
             found[at] += n[a] + n[b] + n[c] + n[d] + n[e] + n[f] + n[g] + n[h]
         for at, a, b, c, d in self._fours:

@@ -35,6 +35,8 @@ class Overlay:
         self.size = 4 * self._many * len(one[0][1])
         self._first = 4 * self._many * one[1]
         self._start = self._first + 4 * other[1]
+        self._letter_blocks = one[0][2]
+        self._other_letter_blocks = other[0][2]
         self._blocks = blocks_times(one[0][2], 4 * self._many)
         self._other_blocks = blocks_times(other[0][2], 4)
         self._levels = {}
@@ -113,19 +115,25 @@ class Overlay:
                     sources = self._sources_of_key(key)
                 behind = []
                 for below, first in sources:
-                    behind.extend(below.sums(numbers[first:]))
+                    behind.extend(below.sums(numbers[first:] if first > 0 else numbers))
                 numbers = behind
         return numbers[:pairs]
 
     def _pushed(self, key, numbers):
-        ways = self._ways(key)
+        many = self._many
         pairs = self.size // CARRIES
+        ways = self._ways(key)
         found = [0] * self.size
         for at, times in enumerate(numbers):
             if times > 0:
                 carry, pair = divmod(at, pairs)
-                for node in self._children(ways, CARRIES * pair + carry):
-                    found[node % CARRIES * pairs + node // CARRIES] += times
+                letter, other_letter = divmod(pair, many)
+                block, other_block = self._letter_blocks[letter], self._other_letter_blocks[other_letter]
+                for i, other_i, columns in ways[carry]:
+                    row = block[i]
+                    other_row = other_block[other_i]
+                    for j, other_j, carries_below in columns:
+                        found[carries_below * pairs + row[j] * many + other_row[other_j]] += times
         return found
 
     def _sources_of_key(self, key):
@@ -171,8 +179,8 @@ class Overlay:
             row_carry, other_i = divmod(i + figures[0], self.base)
             for j in range(self.base):
                 column_carry, other_j = divmod(j + figures[1], self.base)
-                letters = [block[i][j] // (CARRIES * self._many) for block in self._blocks]
-                others = [block[other_i][other_j] // CARRIES for block in self._other_blocks]
+                letters = [block[i][j] for block in self._letter_blocks]
+                others = [block[other_i][other_j] for block in self._other_letter_blocks]
                 add_places(rows, (2 * row_carry + column_carry) * pairs, letters, others)
         return [places for row in rows for places in row]
 

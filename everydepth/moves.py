@@ -124,11 +124,15 @@ def plain_carries(move):
 
 def counted_pairs(one, other, depth, move, carries):
     """The numbers of the pairs of shades, as pairs_at tells them, of what begins with some pairs of carries."""
-    overlay = overlay_of(one, other, depth)
+    one, other = fewest(one, depth), fewest(other, depth)
+    numbers = Overlay(one, other).numbers(move_keys(one[0][0], depth, move), carries)
     pairs = [[0] * SHADES for _ in range(SHADES)]
-    for pair, times in enumerate(overlay.numbers(move_keys(overlay.base, depth, move), carries)):
-        shade, other_shade = overlay.both_shades(CARRIES * pair)
-        pairs[shade][other_shade] += times
+    at = 0
+    for shade in one[0][1]:
+        row = pairs[shade]
+        for other_shade in other[0][1]:
+            row[other_shade] += numbers[at]
+            at += 1
     return tuple([tuple(row) for row in pairs])
 
 

@@ -4,8 +4,12 @@ Which letters have a cell of the shade in their sheets, or on one line of these,
 known.
 """
 
-from everydepth.cells import figures_of
+from everydepth.cells import figures_of, side_of
 from everydepth.linemasks import LineMasks, all_figures, number_of_figures
+
+# Sheets with so many rows, which have so many figures at most, are soon looked at row by row.
+FEW_LINES = 16
+FEW_FIGURES = 4
 
 
 def figures_beside(figure, base, last):
@@ -20,25 +24,77 @@ def goals_of(picture, shade):
 
 def frame_of(picture, depth, shade):
     """The least rectangle that has all cells of a shade, None if there is no such cell."""
-    blocks = picture[0][2]
+    base, shades, blocks = picture[0]
+    if shade not in shades:
+        return None
+    if has_few_lines(base, depth):
+        return frame_line_by_line(picture, depth, shade)
     start = 1 << picture[1]
-    rows = LineMasks(picture[0][0], blocks)
+    rows = LineMasks(base, blocks)
     layers = rows.with_goals(goals_of(picture, shade), depth)
     if not layers[-1] & start:
         return None
-    columns = LineMasks(rows.base, [tuple(zip(*block)) for block in blocks])
+    columns = LineMasks(base, [tuple(zip(*block)) for block in blocks])
     top, left, last_row, last_column = [
-        number_of_figures(rows.base, lines.end_figures(start, layers, last)[0])
+        number_of_figures(base, lines.end_figures(start, layers, last)[0])
         for last in (False, True) for lines in (rows, columns)]
     return (top, left, last_row + 1, last_column + 1)
 
 
+def has_few_lines(base, depth):
+    """Whether a sheet has so few rows that they may be unfolded one by one."""
+    return depth <= FEW_FIGURES and side_of(base, depth) <= FEW_LINES
+
+
+def frame_line_by_line(picture, depth, shade):
+    """What frame_of tells, where there are few lines: each is looked at from all four sides on."""
+    base = picture[0][0]
+    lines = [figures_of(base, depth, line) for line in range(side_of(base, depth))]
+    top = first_line_with(picture, shade, row_of_letters, lines)
+    if top is None:
+        return None
+    left = first_line_with(picture, shade, column_of_letters, lines)
+    behind = len(lines)
+    lines.reverse()
+    below = behind - first_line_with(picture, shade, row_of_letters, lines)
+    return (top, left, below, behind - first_line_with(picture, shade, column_of_letters, lines))
+
+
+def first_line_with(picture, shade, told, lines):
+    """The place, among lines with such figures, of the first one with a shade, None if there is none."""
+    shades = picture[0][1]
+    for at, figures in enumerate(lines):
+        if shade in [shades[letter] for letter in told(picture, figures)]:
+            return at
+    return None
+
+
+def row_of_letters(picture, figures):
+    """The list of the letters in the row of a sheet with such figures."""
+    blocks = picture[0][2]
+    letters = [picture[1]]
+    for i in figures:
+        letters = [inner for letter in letters for inner in blocks[letter][i]]
+    return letters
+
+
+def column_of_letters(picture, figures):
+    """The like for a column."""
+    blocks = picture[0][2]
+    letters = [picture[1]]
+    for j in figures:
+        letters = [row[j] for letter in letters for row in blocks[letter]]
+    return letters
+
+
 def nearest_cell(picture, depth, shade, place, last):
     """The place of the first cell of a shade behind a place, or of the last one ahead of it; None if there is none."""
-    base, _, blocks = picture[0]
-    goals = goals_of(picture, shade)
-    if goals == 0:
+    base, shades, blocks = picture[0]
+    if shade not in shades:
         return None
+    if has_few_lines(base, depth):
+        return nearest_row_by_row(picture, depth, shade, place, last)
+    goals = goals_of(picture, shade)
     rows, columns = figures_of(base, depth, place[0]), figures_of(base, depth, place[1])
     lines = LineMasks(base, blocks)
     path = [picture[1]]
@@ -52,6 +108,26 @@ def nearest_cell(picture, depth, shade, place, last):
         return None
     columns = columns_in_row(lines, path[0], lines.on_line(goals, rows), rows, last)
     return (number_of_figures(base, rows), number_of_figures(base, columns))
+
+
+def nearest_row_by_row(picture, depth, shade, place, last):
+    """What nearest_cell tells, where there are few rows: they are unfolded from that of the place on."""
+    base, shades, _ = picture[0]
+    row, column = place
+    behind = side_of(base, depth)
+    for line in list(range(row, -1, -1)) if last else list(range(row, behind)):
+        found = [shades[letter] for letter in row_of_letters(picture, figures_of(base, depth, line))]
+        if last:
+            if line == row:
+                found = found[:column]
+            if shade in found:
+                found.reverse()
+                return (line, len(found) - 1 - found.index(shade))
+        else:
+            first = column if line == row else 0
+            if shade in found[first:]:
+                return (line, found.index(shade, first))
+    return None
 
 
 def nearest_in_row(lines, goals, path, rows, columns, last):

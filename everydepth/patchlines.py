@@ -5,39 +5,35 @@ from everydepth.masks import nodes_in, united
 
 
 class PatchLines(LineMasks):
-    """The rows of the blocks of patches as one machine over figures, and the cells in them.
+    """The rows of the blocks of patches, with their children and spots, as one machine, and the cells in them."""
 
-    leads tells for each patch whether it is to be told at all.
-    """
-
-    def __init__(self, patches, leads):
+    def __init__(self, patches):
         base = patches.base
         LineMasks.__init__(self, base, None)
         self._patches = patches
         self._cells = {}
         self._ends = {}
-        self._bits = [1 << node if own else 0 for node, own in enumerate(leads)]
         for i in range(base):
             self._masks[i] = []
         self._spans = []
-        for bit, spots, children in zip(self._bits, patches.spots, patches.children):
-            if bit > 0:
-                rows = [0] * base
-                for spot, child in zip(spots, children):
-                    rows[spot // base] = rows[spot // base] | self._bits[child]
-                span = 0
-                for i, row in enumerate(rows):
-                    if row > 0:
-                        self._masks[i].append((bit, row))
-                        span = span | row
-                self._spans.append((bit, span))
+        bits = [1 << node for node in range(len(patches.children))]
+        for bit, spots, children in zip(bits, patches.spots, patches.children):
+            rows = [0] * base
+            for spot, child in zip(spots, children):
+                rows[spot // base] = rows[spot // base] | bits[child]
+            span = 0
+            for i, row in enumerate(rows):
+                if row > 0:
+                    self._masks[i].append((bit, row))
+                    span = span | row
+            self._spans.append((bit, span))
 
     def _cells_of(self, node):
         """For each place of the block of a patch the set of the patches there."""
         if node not in self._cells:
             found = [0] * (self.base * self.base)
             for spot, child in zip(self._patches.spots[node], self._patches.children[node]):
-                found[spot] = found[spot] | self._bits[child]
+                found[spot] = found[spot] | (1 << child)
             self._cells[node] = found
         return self._cells[node]
 
@@ -57,9 +53,9 @@ class PatchLines(LineMasks):
 def end_place_in(lines, places, depth, last):
     """The tuple (row, column) of the first place, or of the last one, in the sheet of a depth, or None.
 
-    places has, for each patch that has what is asked for, the places (i, j), by one more figure each, where it does.
+    places has for each patch the list of the places (i, j), by one more figure each, of what is asked for.
     """
-    goals = sum([1 << node for node in places])
+    goals = sum([1 << node for node, told in enumerate(places) if told])
     layers = lines.with_goals(goals, depth)
     if not layers[-1] & 1:
         return None

@@ -1,13 +1,12 @@
 """Which small patterns come about, where and how often."""
 
+from everydepth.cells import side_of
 from everydepth.errors import InvalidNumber, InvalidPattern, anew
-from everydepth.least import fewest
-from everydepth.masks import nodes_in, united
-from everydepth.patches import Patches, explored
+from everydepth.livingpatches import LivingPatches
+from everydepth.patches import few_letters, patches_of
 from everydepth.patchlines import PatchLines, end_place_in
 from everydepth.pictures import are_shades, check_depth, check_picture, is_tuple_of
 from everydepth.sums import Sums, flows_of, numbers_at
-from everydepth.walks import leading
 from everydepth.windows import Finder, Windows
 
 
@@ -22,14 +21,17 @@ def first_depth(picture, pattern):
     check_pattern(picture, pattern)
     if is_cell(picture, pattern):
         return 0
-    # They stand by the depths at which they first come, and each is looked at ahead of what lies in it.
-    patches = Patches(picture, min(len(pattern), 2), min(len(pattern[0]), 2), False)
+    patches = patches_of(few_letters(picture, 0), len(pattern), len(pattern[0]), False)
     finder = Finder(patches, pattern)
-    while len(patches.children) < len(patches.nodes):
-        node = len(patches.children)
-        if finder.begins_in(patches.nodes[node]):
-            return patches.depths[node] + 1
-        patches.unfold()
+    seen = {patch: True for patch in patches.first_patches}
+    ready = patches.first_patches
+    depth = 1
+    while ready:
+        for patch in ready:
+            if finder.begins_in(patch):
+                return depth
+        ready = patches.add_deeper(seen, ready)
+        depth += 1
     return None
 
 
@@ -38,12 +40,9 @@ def pattern_at(picture, depth, pattern):
     check_all(picture, depth, pattern)
     if depth == 0:
         return is_cell(picture, pattern)
-    patches = patches_of(picture, len(pattern), len(pattern[0]), depth - 1)
-    places = Finder(patches, pattern).all_places()
-    for node in nodes_at(patches, depth - 1):
-        if node in places:
-            return True
-    return False
+    patches = patches_of(few_letters(picture, depth - 1), len(pattern), len(pattern[0]), False)
+    come = patches.patches_at(depth - 1)
+    return len(Finder(patches, pattern).all_places(come, come)) > 0
 
 
 def patterns(picture, rows, columns):
@@ -51,7 +50,10 @@ def patterns(picture, rows, columns):
     check_picture(picture)
     check_size(picture, rows)
     check_size(picture, columns)
-    patches = Patches(fewest(picture, None), min(rows, 2), min(columns, 2), False)
+    few = few_letters(picture, None)
+    if has_one_letter(few):
+        return [(few[0][1] * columns,) * rows]
+    patches = patches_of(few, rows, columns, False)
     found = Windows(patches, rows, columns).all_in(patches.all_patches())
     if rows == 1 and columns == 1 and cell_of(picture) not in found:
         found = sorted(found + [cell_of(picture)])
@@ -66,8 +68,11 @@ def patterns_at(picture, depth, rows, columns):
     check_size(picture, columns)
     if depth == 0:
         return [cell_of(picture)] if rows == 1 and columns == 1 else []
-    patches = patches_of(picture, rows, columns, depth - 1)
-    return Windows(patches, rows, columns).all_in([patches.nodes[node] for node in nodes_at(patches, depth - 1)])
+    few = few_letters(picture, depth - 1)
+    if has_one_letter(few):
+        return [(few[0][1] * columns,) * rows] if max(rows, columns) <= side_of(few[0][0], depth) else []
+    patches = patches_of(few, rows, columns, False)
+    return Windows(patches, rows, columns).all_in(patches.patches_at(depth - 1))
 
 
 def first_place(picture, depth, pattern):
@@ -85,16 +90,25 @@ def pattern_count(picture, depth, pattern):
     check_all(picture, depth, pattern)
     if depth == 0:
         return 1 if is_cell(picture, pattern) else 0
-    children, weights = living_patches(picture, pattern, depth - 1)
-    return numbers_at(flows_of(children), weights, depth - 1)[0] if children else 0
+    few = few_letters(picture, depth - 1)
+    if has_one_letter(few):
+        rows, columns = even_places(few, depth, pattern)
+        return rows * columns
+    living = LivingPatches(few, pattern, depth - 1)
+    if not living.children:
+        return 0
+    return numbers_at(flows_of(living.children), [len(places) for places in living.places], depth - 1)[0]
 
 
 def pattern_rule(picture, pattern):
     """The shortest list of fractions by which each number of places, but that at depth 0, comes of those ahead."""
     check_picture(picture)
     check_pattern(picture, pattern)
-    children, weights = living_patches(picture, pattern, None)
-    return [(times, 1) for times in Sums(children, weights).rule([0])] if children else []
+    living = LivingPatches(few_letters(picture, None), pattern, None)
+    if not living.children:
+        return []
+    sums = Sums(living.children, [len(places) for places in living.places])
+    return [(times, 1) for times in sums.rule([0])]
 
 
 def place_of(picture, depth, pattern, last):
@@ -102,52 +116,31 @@ def place_of(picture, depth, pattern, last):
     check_all(picture, depth, pattern)
     if depth == 0:
         return (0, 0) if is_cell(picture, pattern) else None
-    patches = patches_of(picture, len(pattern), len(pattern[0]), depth - 1)
-    places = Finder(patches, pattern).all_places()
-    leads = leading(patches.children, places)
-    if not leads[0]:
+    few = few_letters(picture, depth - 1)
+    if has_one_letter(few):
+        rows, columns = even_places(few, depth, pattern)
+        if rows == 0 or columns == 0:
+            return None
+        return (rows - 1, columns - 1) if last else (0, 0)
+    living = LivingPatches(few, pattern, depth - 1)
+    if not living.children:
         return None
     # All figures but the lowest ones lead to a patch; by these the pattern lies across it.
-    return end_place_in(PatchLines(patches, leads), places, depth - 1, last)
+    return end_place_in(PatchLines(living), living.places, depth - 1, last)
 
 
-def patches_of(picture, rows, columns, last):
-    """The patches of a picture, up to some depth, across which what has so many rows and columns may lie."""
-    return explored(picture, min(rows, 2), min(columns, 2), False, last)
+def has_one_letter(picture):
+    """Whether a picture has one letter alone, so that all of its cells have one shade."""
+    return len(picture[0][1]) == 1
 
 
-def nodes_at(patches, depth):
-    """The list of the nodes of the patches that come at exactly this depth."""
-    nodes = 1
-    inside = {}
-    told = {}
-    for _ in range(depth):
-        if nodes not in inside:
-            members = nodes_in(nodes)
-            for node in members:
-                if node not in told:
-                    told[node] = united([1 << child for child in patches.children[node]])
-            inside[nodes] = united([told[node] for node in members])
-        nodes = inside[nodes]
-    return nodes_in(nodes)
-
-
-def living_patches(picture, pattern, last):
-    """For each patch the numbers of those in it, one more depth, and at how many places the pattern begins in each.
-
-    Patches in which it never comes are left out; both lists are empty if the first one is such.
-    """
-    patches = patches_of(picture, len(pattern), len(pattern[0]), last)
-    places = Finder(patches, pattern).all_places()
-    leads = leading(patches.children, places)
-    if not leads[0]:
-        return [], []
-    numbers = {}
-    for node, own in enumerate(leads):
-        if own:
-            numbers[node] = len(numbers)
-    children = [[numbers[child] for child in patches.children[node] if leads[child]] for node in numbers]
-    return children, [len(places.get(node, ())) for node in numbers]
+def even_places(picture, depth, pattern):
+    """How many rows, and how many columns, of places a pattern has in the sheet of a picture of one letter."""
+    rows, columns = len(pattern), len(pattern[0])
+    if pattern != (picture[0][1] * columns,) * rows:
+        return (0, 0)
+    side = side_of(picture[0][0], depth)
+    return (max(0, side - rows + 1), max(0, side - columns + 1))
 
 
 def cell_of(picture):

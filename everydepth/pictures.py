@@ -27,7 +27,7 @@ def is_shelf(value):
 def are_shades(entries):
     """Whether all entries of a tuple are shades."""
     for entry in entries:
-        if not isinstance(entry, int) or entry is True or entry is False or not 0 <= entry <= 3:
+        if entry is True or entry is False or not isinstance(entry, int) or entry < 0 or entry > 3:
             return False
     return True
 
@@ -43,7 +43,7 @@ def are_blocks(entries, base):
             if not isinstance(row, tuple) or len(row) != base:
                 return False
             for letter in row:
-                if not isinstance(letter, int) or letter is True or letter is False or not 0 <= letter < many:
+                if letter is True or letter is False or not isinstance(letter, int) or letter < 0 or letter >= many:
                     return False
     return True
 

@@ -1,4 +1,9 @@
-"""What has some rows and columns in the unfoldings of patches, where it lies across all of their seams."""
+"""What has some rows and columns in the unfoldings of patches, where it lies across all of their seams.
+
+Rows of shades are texts here, with a sign for each shade: they are soon compared and put together,
+and stand in the same sequence as the shades. A half is a row of letters of a patch, told as a patch
+of its own.
+"""
 
 from everydepth.masks import nodes_in
 from everydepth.patches import crossing_lines
@@ -6,218 +11,208 @@ from everydepth.patches import crossing_lines
 # One more than the greatest column of a place in a block.
 WIDTH = 4
 
-# The signs of the shades, that of what is outside last.
+# The signs of the shades, that of what is outside last, and what they stand for.
 SIGNS = "0123-"
+SHADES = {"0": 0, "1": 1, "2": 2, "3": 3}
 
-# So many bits tell a shade.
-BITS = 2
+
+class HalfTexts:
+    """The texts of the rows of the unfoldings of the halves of patches."""
+
+    def __init__(self, patches):
+        self._patches = patches
+        self._signs = [SIGNS[shade] for shade in patches.shades]
+        self._letter_rows = {}
+        self._rows = {}
+
+    def rows_of(self, half):
+        """The list of the texts of the rows of a half."""
+        if half not in self._rows:
+            letters = self._patches.letters_of(half)
+            rows = self._rows_of_letter(letters[0])
+            if len(letters) == 2:
+                rows = [row + other for row, other in zip(rows, self._rows_of_letter(letters[1]))]
+            self._rows[half] = rows
+        return self._rows[half]
+
+    def _rows_of_letter(self, letter):
+        if letter not in self._letter_rows:
+            signs = self._signs
+            block = self._patches.letter_blocks[letter]
+            self._letter_rows[letter] = ["".join([signs[inner] for inner in row]) for row in block]
+        return self._letter_rows[letter]
 
 
 class Windows:
     """All patterns with so many rows and columns in the unfoldings of patches, where they lie across all seams.
 
-    A pattern is told as an integer, with BITS bits for each shade, those of the first one the highest;
-    so are some of its rows. A half is a row of letters of a patch, told as a patch of its own.
+    A pattern is told as the text of all of its rows, one behind the other; so is a part of it that
+    has some of its rows.
     """
 
     def __init__(self, patches, rows, columns):
         self._patches = patches
+        self._texts = HalfTexts(patches)
         self._many = rows
-        self._width = BITS * columns
+        self._columns = columns
         self._first_rows = crossing_lines(patches.base, rows)
-        # By how many bits the rows of one letter, and those of two, are to be moved for each column.
-        firsts = crossing_lines(patches.base, columns)
-        self._shifts = [
-            [BITS * (letters * patches.base - columns - j) for j in firsts[letters - 1]] for letters in (1, 2)]
-        self._row_numbers = {}
-        self._halves = {}
+        self._first_columns = crossing_lines(patches.base, columns)
+        self._known_columns = {}
+        self._known_parts = {}
+        self._row_tuples = {}
 
     def all_in(self, some):
         """The ascending list of all patterns that some patches have."""
-        singles, doubles = self._patches.by_rows(some)
+        halves, doubles = self._patches.by_rows(some)
         found = {}
-        for half in singles:
-            for number in self._whole_numbers(half):
-                found[number] = True
-        known = self._halves
+        for half in halves if self._first_rows[0] else []:
+            for text, pattern in self._whole_parts(half):
+                found[text] = pattern
+        uppers, lowers = {}, {}
         for upper, lower in doubles:
-            if upper not in known:
-                known[upper] = self._half_numbers(upper)
-            if lower not in known:
-                known[lower] = self._half_numbers(lower)
-            for number, below in zip(known[upper][0], known[lower][1]):
-                found[number + below] = True
-        return self._told(sorted(found))
+            if upper not in uppers:
+                uppers[upper] = self._upper_parts(upper)
+            if lower not in lowers:
+                lowers[lower] = self._lower_parts(lower)
+            for (above, rows), (below, rows_below) in zip(uppers[upper], lowers[lower]):
+                text = above + below
+                if text not in found:
+                    found[text] = rows + rows_below
+        return [found[text] for text in sorted(found)]
 
-    def _told(self, numbers):
-        """The list of the patterns that are told by some integers."""
-        width = self._width
-        places = [width * row for row in reversed(range(self._many))]
-        mask = (1 << width) - 1
-        rows = {}
-        found = []
-        for number in numbers:
-            parts = [(number >> place) & mask for place in places]
-            for part in parts:
-                if part not in rows:
-                    rows[part] = tuple([(part >> place) & 3 for place in range(width - BITS, -1, -BITS)])
-            found.append(tuple([rows[part] for part in parts]))
-        return found
+    def _columns_of(self, half):
+        """For each column in which a pattern may begin in a half the text of its part of all rows of the half."""
+        if half not in self._known_columns:
+            rows = self._texts.rows_of(half)
+            many = self._columns
+            firsts = self._first_columns[0 if len(rows[0]) == len(rows) else 1]
+            self._known_columns[half] = ["".join([row[j:j + many] for row in rows]) for j in firsts]
+        return self._known_columns[half]
 
-    def _whole_numbers(self, half):
-        """All patterns that lie in the unfolding of a half alone, across its seam."""
-        found = []
-        rows = self._parts(half) if self._first_rows[0] else []
-        for i in self._first_rows[0]:
-            numbers = rows[i]
-            for row in rows[i + 1:i + self._many]:
-                numbers = [(above << self._width) + number for above, number in zip(numbers, row)]
-            found.extend(numbers)
-        return found
+    def _whole_parts(self, half):
+        """The tuples of a text and its rows of all patterns that lie in a half alone, across its seam."""
+        many = self._columns
+        told = [(many * i, many * (i + self._many)) for i in self._first_rows[0]]
+        return self._parts([column[first:behind] for column in self._columns_of(half) for first, behind in told])
 
-    def _half_numbers(self, half):
-        """What a half has of patterns that begin in it as the upper one, and of those as the lower one.
+    def _upper_parts(self, half):
+        """The like of the parts of patterns that begin in a half and go on in one below it, in all such places."""
+        firsts = [self._columns * i for i in self._first_rows[1]]
+        return self._parts([column[first:] for column in self._columns_of(half) for first in firsts])
 
-        Both lists have the same places, one behind the other, at which a pattern may begin; what
-        belongs to the upper half is moved to the front.
-        """
-        width = self._width
-        base = self._patches.base
-        rows = self._parts(half)
-        uppers, lowers = [], []
-        # A pattern that begins one row later has one row less in the upper half, and one more in the lower one.
-        below = [0] * len(rows[0])
-        for at in range(len(self._first_rows[1])):
-            below = [(number << width) + part for number, part in zip(below, rows[at])]
-            lowers.append(below)
-        above = [0] * len(rows[0])
-        for i in reversed(self._first_rows[1]):
-            above = [(part << (width * (base - 1 - i))) + number for number, part in zip(above, rows[i])]
-            uppers.append([number << (width * (i + self._many - base)) for number in above])
-        uppers.reverse()
-        return [[number for row in numbers for number in row] for numbers in (uppers, lowers)]
+    def _lower_parts(self, half):
+        """The like of those that begin in one above a half and go on in it, in the same sequence."""
+        behinds = [self._columns * (i + self._many - self._patches.base) for i in self._first_rows[1]]
+        return self._parts([column[:behind] for column in self._columns_of(half) for behind in behinds])
 
-    def _parts(self, half):
-        """For each row of the unfolding of a half its parts, by the columns in which a pattern may begin."""
-        letters = self._patches.letters_of(half)
-        numbers = self._numbers_of(letters[0])
-        if len(letters) == 2:
-            more = BITS * self._patches.base
-            numbers = [(left << more) + right for left, right in zip(numbers, self._numbers_of(letters[1]))]
-        mask = (1 << self._width) - 1
-        shifts = self._shifts[len(letters) - 1]
-        return [[(number >> shift) & mask for shift in shifts] for number in numbers]
+    def _parts(self, texts):
+        """For each of some texts the tuple of it and of its rows of shades."""
+        known = self._known_parts
+        for text in texts:
+            if text not in known:
+                known[text] = (text, self._rows_of(text))
+        return [known[text] for text in texts]
 
-    def _numbers_of(self, letter):
-        """The rows of the block of a letter, each as one number."""
-        if letter not in self._row_numbers:
-            shades = self._patches.shades
-            found = []
-            for row in self._patches.letter_blocks[letter]:
-                number = 0
-                for inner in row:
-                    number = (number << BITS) + shades[inner]
-                found.append(number)
-            self._row_numbers[letter] = found
-        return self._row_numbers[letter]
+    def _rows_of(self, text):
+        many = self._columns
+        rows = [text[first:first + many] for first in range(0, len(text), many)]
+        for row in rows:
+            if row not in self._row_tuples:
+                self._row_tuples[row] = tuple([SHADES[sign] for sign in row])
+        return tuple([self._row_tuples[row] for row in rows])
 
 
 class Finder:
     """The places at which a pattern begins in the unfoldings of patches.
 
-    A set of places (i, j) is an integer, with a bit for each: that with the number WIDTH * i + j. Rows
-    of shades are texts here, which are soon compared.
+    A set of places (i, j) is an integer, with a bit for each: that with the number WIDTH * i + j.
     """
 
     def __init__(self, patches, pattern):
-        base = patches.base
         self._patches = patches
+        self._half_texts = HalfTexts(patches)
+        self._base = patches.base
         self._texts = ["".join([SIGNS[shade] for shade in row]) for row in pattern]
-        self._signs = [SIGNS[shade] for shade in patches.shades]
-        self._rows = {}
-        self._told_letters = {}
-        self._begins = {}
-        self._first_rows = crossing_lines(base, len(pattern))
-        self._first_columns = crossing_lines(base, len(pattern[0]))
+        # The places in the rows in which the pattern may begin and not leave a half.
+        self._whole = (1 << (WIDTH * max(0, self._base - len(pattern) + 1))) - 1
+        # In two letters side by side the pattern is to lie across their seam.
+        self._least_column = max(0, self._base - len(pattern[0]) + 1)
+        self._known_places = {}
 
     def begins_in(self, patch):
         """Whether the pattern begins somewhere in a patch."""
         halves = self._patches.halves(patch)
-        found = self._upper_places(halves[0], len(halves))
-        if found and len(halves) == 2:
-            found = found & self._lower_places(halves[1])
-        return found > 0
+        whole, upper, _ = self._places_in(halves[0])
+        if len(halves) == 1:
+            return whole > 0
+        if upper == 0:
+            return False
+        _, _, lower = self._places_in(halves[1])
+        return upper & lower > 0
 
-    def all_places(self):
-        """For each node of the patches at which the pattern begins somewhere the list of the places."""
-        numbers = self._patches.node_numbers
-        singles, pairs = self._patches.one_row_patches()
+    def all_places(self, some, known):
+        """For each patch with halves among some patches in which the pattern begins somewhere the set of the places.
+
+        Only those that are keys of known are told, unless that is None.
+        """
         found = {}
-        for half in singles + pairs:
-            places = self._upper_places(half, 1)
-            if places:
-                found[numbers[half]] = places
-        if len(self._texts) > 1:
+        for told in self._patches.one_row_patches(some):
+            uppers, lowers = [], []
+            for half in told:
+                whole, upper, lower = self._places_in(half)
+                if whole > 0:
+                    found[half] = whole
+                if upper > 0:
+                    uppers.append((half, upper))
+                if lower > 0:
+                    lowers.append((half, lower))
             # What stands above one another has rows of as many letters.
-            for told in (singles, pairs):
-                lowers = [(half, self._lower_places(half)) for half in told]
-                for upper in told:
-                    places = self._upper_places(upper, 2)
-                    for lower in [half for half, below in lowers if places & below]:
-                        patch = self._patches.with_rows(upper, lower)
-                        if patch in numbers:
-                            found[numbers[patch]] = places & self._lower_places(lower)
-        return {node: [divmod(place, WIDTH) for place in nodes_in(places)] for node, places in found.items()}
+            for half, upper in uppers:
+                for below, lower in lowers:
+                    if upper & lower:
+                        patch = self._patches.with_rows(half, below)
+                        if known is None or patch in known:
+                            found[patch] = upper & lower
+        return found
 
-    def _upper_places(self, half, many):
-        """The places at which the pattern may begin, as far as the first of so many halves tells."""
-        key = (half, many)
-        if key not in self._begins:
-            rows, columns = self._text_rows(half)
-            found = 0
-            for i in self._first_rows[many - 1]:
-                if self._texts[0] in rows[i]:
-                    # Of two halves the first one has as many of the rows as are left in it.
-                    found = found | places_of(rows[i:], self._texts, columns, WIDTH * i)
-            self._begins[key] = found
-        return self._begins[key]
+    def _places_in(self, half):
+        """The places at which the pattern begins in a half, and at which it may as far as the upper half of two tells.
 
-    def _lower_places(self, half):
-        """The places at which the pattern may begin, as far as the lower half of two tells."""
-        key = (half, 0)
-        if key not in self._begins:
-            rows, columns = self._text_rows(half)
-            found = 0
-            for i in self._first_rows[1]:
-                if self._texts[len(rows) - i] in rows[0]:
-                    found = found | places_of(rows, self._texts[len(rows) - i:], columns, WIDTH * i)
-            self._begins[key] = found
-        return self._begins[key]
+        The third is the set of those at which it may as far as the lower half of two tells.
+        """
+        if half not in self._known_places:
+            rows = self._half_texts.rows_of(half)
+            begins = 0
+            for i, row in enumerate(rows):
+                if self._texts[0] in row:
+                    begins = begins | (self._columns_along(0, rows[i:]) << (WIDTH * i))
+            lower = 0
+            for first, text in enumerate(self._texts[1:], 1):
+                if text in rows[0]:
+                    lower = lower | (self._columns_along(first, rows) << (WIDTH * (self._base - first)))
+            self._known_places[half] = (begins & self._whole, begins & ~self._whole, lower)
+        return self._known_places[half]
 
-    def _text_rows(self, half):
-        """The list of the rows of the unfolding of a half, and that of the columns in which the pattern may begin."""
-        if half not in self._rows:
-            letters = self._patches.letters_of(half)
-            rows = self._letter_rows(letters[0])
-            if len(letters) == 2:
-                rows = [row + other for row, other in zip(rows, self._letter_rows(letters[1]))]
-            self._rows[half] = (rows, self._first_columns[len(letters) - 1])
-        return self._rows[half]
-
-    def _letter_rows(self, letter):
-        if letter not in self._told_letters:
-            signs = self._signs
-            block = self._patches.letter_blocks[letter]
-            self._told_letters[letter] = ["".join([signs[inner] for inner in row]) for row in block]
-        return self._told_letters[letter]
+    def _columns_along(self, first, rows):
+        """The columns in which the rows of the pattern, from one on, begin in some rows, as far as these go."""
+        columns = -1
+        for text, row in zip(self._texts[first:], rows):
+            columns = columns & columns_of(text, row, self._base, self._least_column)
+            if columns == 0:
+                break
+        return columns
 
 
-def places_of(rows, texts, columns, first):
-    """The places, from the first one of a row on, in some columns at which texts begin in rows, one in each."""
+def columns_of(text, row, base, first):
+    """The set of the columns of a block in which a text begins in a row, of two blocks from a first column on."""
     found = 0
-    for j in columns:
-        if rows[0].startswith(texts[0], j):
-            told = [row.startswith(text, j) for row, text in zip(rows, texts)]
-            if all(told):
-                found = found | (1 << (first + j))
+    at = row.find(text) if len(row) == base else row.find(text, first)
+    while 0 <= at < base:
+        found = found | (1 << at)
+        at = row.find(text, at + 1)
     return found
+
+
+def places_in(places):
+    """The list of the places (i, j) of a set."""
+    return [divmod(place, WIDTH) for place in nodes_in(places)]
