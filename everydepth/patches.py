@@ -266,12 +266,16 @@ class Patches:
         return [self.shades[letter] for half in self.halves(patch) for letter in self.letters_of(half)]
 
     def by_rows(self, some):
-        """The list of those of some patches that have one row of letters, and that of the tuples of two rows."""
-        above, four, many, pairs, beside = self._above, self._four, self._many, self._pairs, self._beside
-        found = [divmod(patch - above, many) for patch in some if above <= patch < four]
+        """The list of those of some patches that have one row of letters, and what tells those that have two rows.
+
+        That are two tuples, for rows of one letter and of two: the first patch of such a row, and the
+        list of the tuples of how much further on the patches of both rows are.
+        """
+        above, four, many, pairs = self._above, self._four, self._many, self._pairs
+        small = [patch for patch in some if patch < four]
+        aboves = [divmod(patch - above, many) for patch in small if patch >= above]
         fours = [divmod(patch - four, pairs) for patch in some if patch >= four]
-        found.extend([(beside + upper, beside + lower) for upper, lower in fours])
-        return [patch for patch in some if patch < above], found
+        return [patch for patch in small if patch < above], ((0, aboves), (self._beside, fours))
 
     def one_row_patches(self, some):
         """The list of those of some patches that have one letter, and of those that have two beside one another."""

@@ -68,17 +68,22 @@ class Windows:
         for half in halves if self._first_rows[0] else []:
             for text, pattern in self._whole_parts(half):
                 found[text] = pattern
+        for first, told in doubles:
+            self._add_crossing(found, first, told)
+        return [found[text] for text in sorted(found)]
+
+    def _add_crossing(self, found, first, doubles):
+        """Adds all patterns that lie across two halves, which are so much further on than a first one."""
         uppers, lowers = {}, {}
         for upper, lower in doubles:
             if upper not in uppers:
-                uppers[upper] = self._upper_parts(upper)
+                uppers[upper] = self._upper_parts(first + upper)
             if lower not in lowers:
-                lowers[lower] = self._lower_parts(lower)
+                lowers[lower] = self._lower_parts(first + lower)
             for (above, rows), (below, rows_below) in zip(uppers[upper], lowers[lower]):
                 text = above + below
                 if text not in found:
                     found[text] = rows + rows_below
-        return [found[text] for text in sorted(found)]
 
     def _columns_of(self, half):
         """For each column in which a pattern may begin in a half the text of its part of all rows of the half."""
