@@ -90,8 +90,15 @@ class Windows:
         if half not in self._known_columns:
             rows = self._texts.rows_of(half)
             many = self._columns
-            firsts = self._first_columns[0 if len(rows[0]) == len(rows) else 1]
-            self._known_columns[half] = ["".join([row[j:j + many] for row in rows]) for j in firsts]
+            tuples = self._row_tuples
+            found = []
+            for j in self._first_columns[0 if len(rows[0]) == len(rows) else 1]:
+                parts = [row[j:j + many] for row in rows]
+                for part in parts:
+                    if part not in tuples:
+                        tuples[part] = tuple([SHADES[sign] for sign in part])
+                found.append("".join(parts))
+            self._known_columns[half] = found
         return self._known_columns[half]
 
     def _whole_parts(self, half):
@@ -113,18 +120,13 @@ class Windows:
     def _parts(self, texts):
         """For each of some texts the tuple of it and of its rows of shades."""
         known = self._known_parts
+        many = self._columns
+        tuples = self._row_tuples
         for text in texts:
             if text not in known:
-                known[text] = (text, self._rows_of(text))
+                rows = [tuples[text[first:first + many]] for first in range(0, len(text), many)]
+                known[text] = (text, tuple(rows))
         return [known[text] for text in texts]
-
-    def _rows_of(self, text):
-        many = self._columns
-        rows = [text[first:first + many] for first in range(0, len(text), many)]
-        for row in rows:
-            if row not in self._row_tuples:
-                self._row_tuples[row] = tuple([SHADES[sign] for sign in row])
-        return tuple([self._row_tuples[row] for row in rows])
 
 
 class Finder:
